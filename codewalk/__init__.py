@@ -1,0 +1,1 @@
+"""Codewalk: a compiler to bytecode, and the frame machine that runs it."""

@@ -1,0 +1,64 @@
+"""Names, places and arguments of the interface, and some of the rules that the code keeps."""
+
+import ast
+import inspect
+import pathlib
+import unittest
+
+from codewalk import errors, scopes, trees
+
+ROOT = pathlib.Path(__file__).resolve().parent.parent
+FILES = sorted((ROOT / "codewalk").glob("**/*.py"))
+
+INTERFACE = {
+    "errors.py": ["CodeError", "NoTree", "NoProgram", "NoCode", "NoTable", "NoBytes", "NoNumber", "NoName", "NoRows"],
+    "trees.py": ["check"],
+    "scopes.py": ["scopes"],
+}
+
+
+class InterfaceTests(unittest.TestCase):
+    def test_each_name_is_defined_in_its_file(self):
+        for file, names in INTERFACE.items():
+            body = ast.parse((ROOT / "codewalk" / file).read_text()).body
+            defined = [node.name for node in body if isinstance(node, (ast.FunctionDef, ast.ClassDef))]
+            for name in names:
+                self.assertIn(name, defined, file)
+
+    def test_arguments_have_the_names_told(self):
+        self.assertEqual(list(inspect.signature(trees.check).parameters), ["tree"])
+        self.assertEqual(list(inspect.signature(scopes.scopes).parameters), ["tree"])
+        self.assertEqual(list(inspect.signature(errors.NoProgram).parameters), ["line", "why"])
+
+
+class LanguageTests(unittest.TestCase):
+    def test_files_and_lines_are_short_and_plain(self):
+        for path in FILES:
+            text = path.read_text()
+            self.assertLessEqual(len(text.split("\n")), 399, path.name)
+            for line in text.split("\n"):
+                self.assertLessEqual(len(line), 120, path.name)
+            self.assertEqual([c for c in text if c != "\n" and not " " <= c <= "~"], [], path.name)
+
+    def test_functions_are_short(self):
+        for path in FILES:
+            for node in ast.walk(ast.parse(path.read_text())):
+                if isinstance(node, ast.FunctionDef):
+                    self.assertLessEqual(node.end_lineno - node.lineno + 1, 40, node.name)
+
+    def test_imports_are_of_the_package_alone(self):
+        for path in FILES:
+            for node in ast.walk(ast.parse(path.read_text())):
+                self.assertNotIsInstance(node, (ast.Import, ast.Global))
+                if isinstance(node, ast.ImportFrom):
+                    self.assertTrue(node.module.startswith("codewalk."), path.name)
+
+    def test_strings_have_plain_characters(self):
+        for path in FILES:
+            for node in ast.walk(ast.parse(path.read_text())):
+                if isinstance(node, ast.Constant) and isinstance(node.value, str):
+                    self.assertNotIn("%", node.value, path.name)
+
+
+if __name__ == "__main__":
+    unittest.main()
