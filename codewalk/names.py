@@ -2,20 +2,20 @@
 
 LONGEST = 20
 
-KEYWORDS = (
-    "False", "None", "True", "and", "as", "assert", "async", "await", "break", "class", "continue", "def",
-    "del", "elif", "else", "except", "finally", "for", "from", "global", "if", "import", "in", "is",
-    "lambda", "nonlocal", "not", "or", "pass", "raise", "return", "try", "while", "with", "yield",
-)
+KEYWORDS = {
+    "False": True, "None": True, "True": True, "and": True, "as": True, "assert": True, "async": True, "await": True,
+    "break": True, "class": True, "continue": True, "def": True, "del": True, "elif": True, "else": True,
+    "except": True, "finally": True, "for": True, "from": True, "global": True, "if": True, "import": True,
+    "in": True, "is": True, "lambda": True, "nonlocal": True, "not": True, "or": True, "pass": True, "raise": True,
+    "return": True, "try": True, "while": True, "with": True, "yield": True,
+}
 
 
 def is_name(name):
     """Whether an object, of whatever kind, is a name."""
-    if not isinstance(name, str) or len(name) > LONGEST:
+    if not isinstance(name, str) or not name.isidentifier() or len(name) > LONGEST:
         return False
-    if not name.isascii() or not name.isidentifier() or name in KEYWORDS:
-        return False
-    return not is_private(name)
+    return name.isascii() and name not in KEYWORDS and (name[0] != "_" or not is_private(name))
 
 
 def is_private(name):
