@@ -29,6 +29,8 @@ class Scope:
         self.frees = {}
         # Whether a Yield or a YieldFrom is its own.
         self.yields = False
+        # What it runs, made ready for writing rows.
+        self.content = None
 
     def is_function(self):
         return self.word in FUNCTION_WORDS

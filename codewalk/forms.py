@@ -43,6 +43,10 @@ def is_row(part):
     return isinstance(part, (list, tuple))
 
 
+def is_named(part):
+    return is_name(part)
+
+
 def is_name_or_none(part):
     return part is None or is_name(part)
 
@@ -217,10 +221,10 @@ STATEMENTS = {
     ),
     "With": (4, 1, ((2, are_couples),), None, ((3, 1, as_statement), (2, 1, as_item))),
     "Function": (
-        6, 1, ((2, is_name), (3, are_parameters)), None,
+        6, 1, ((2, is_named), (3, are_parameters)), None,
         ((5, 0, as_expression), (4, 1, as_statement), (3, None, as_parameters)),
     ),
-    "Class": (6, 1, ((2, is_name),), None, ((5, 0, as_expression), (4, 1, as_statement), (3, 0, as_expression))),
+    "Class": (6, 1, ((2, is_named),), None, ((5, 0, as_expression), (4, 1, as_statement), (3, 0, as_expression))),
 }
 
 EXPRESSIONS = {
@@ -235,10 +239,10 @@ EXPRESSIONS = {
     ),
     "IfExp": (4, None, (), None, ((3, None, as_expression), (2, None, as_expression), (1, None, as_expression))),
     "Call": (4, None, ((3, are_couples),), None, ((3, 0, as_keyword), (2, 0, as_member), (1, None, as_expression))),
-    "Attribute": (3, None, ((2, is_name),), None, ((1, None, as_expression),)),
+    "Attribute": (3, None, ((2, is_named),), None, ((1, None, as_expression),)),
     "Subscript": (3, None, (), None, ((2, None, as_index), (1, None, as_expression))),
     "Lambda": (3, None, ((1, are_parameters),), None, ((2, None, as_expression), (1, None, as_parameters))),
-    "NamedExpr": (3, None, ((1, is_name),), None, ((2, None, as_expression),)),
+    "NamedExpr": (3, None, ((1, is_named),), None, ((2, None, as_expression),)),
     "ListComp": (3, None, ((2, are_clauses),), None, ((2, 1, as_clause), (1, None, as_expression))),
     "GeneratorExp": (3, None, ((2, are_clauses),), None, ((2, 1, as_clause), (1, None, as_expression))),
     "DictComp": (
@@ -249,7 +253,7 @@ EXPRESSIONS = {
 }
 
 TARGETS = {
-    "Attribute": (3, None, ((2, is_name),), None, ((1, None, as_expression),)),
+    "Attribute": (3, None, ((2, is_named),), None, ((1, None, as_expression),)),
     "Subscript": (3, None, (), None, ((2, None, as_index), (1, None, as_expression))),
     "Tuple": (2, None, (), has_one_star, ((1, 0, as_piece),)),
     "List": (2, None, (), has_one_star, ((1, 0, as_piece),)),

@@ -114,9 +114,10 @@ def visit_slice(walk, node):
 
 
 def visit_yield(walk, node):
-    if walk.scope.is_comprehension():
+    scope = walk.scope
+    if scope.is_comprehension():
         raise NoProgram(walk.line, "inside")
-    walk.scope.yields = True
+    scope.yields = True
     visit_optional(walk, node[1])
 
 
@@ -138,11 +139,12 @@ def visit_comprehension(walk, node):
     clauses = node[-1]
     visit_iterable(walk, clauses[0][1])
     walk.enter(word, name)
-    walk.scope.parameters[".0"] = True
-    walk.scope.bound[".0"] = True
+    scope = walk.scope
+    scope.parameters[".0"] = True
+    scope.bound[".0"] = True
     for clause in clauses:
         for turned in names_of(clause[0]):
-            walk.scope.turned[turned] = True
+            scope.turned[turned] = True
     for at, clause in enumerate(clauses):
         visit_target(walk, clause[0])
         if at > 0:

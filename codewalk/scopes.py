@@ -7,13 +7,18 @@ from codewalk.trees import check
 
 def scopes(tree):
     """All scopes of a program, as tuples (word, name, path, parent, kinds, frees). Raises NoTree, NoProgram."""
+    return [told(scope) for scope in settled(tree)]
+
+
+def settled(tree):
+    """The scopes of a program with the kinds of their names. Raises NoTree, NoProgram."""
     check(tree)
     found = gathered(tree)
     for scope in found:
         set_kinds(scope)
     for scope in found:
         pass_frees(scope)
-    return [told(scope) for scope in found]
+    return found
 
 
 def told(scope):

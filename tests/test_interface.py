@@ -5,7 +5,7 @@ import inspect
 import pathlib
 import unittest
 
-from codewalk import errors, scopes, trees
+from codewalk import codes, errors, flow, generate, scopes, tables, trees
 
 ROOT = pathlib.Path(__file__).resolve().parent.parent
 FILES = sorted((ROOT / "codewalk").glob("**/*.py"))
@@ -14,6 +14,10 @@ INTERFACE = {
     "errors.py": ["CodeError", "NoTree", "NoProgram", "NoCode", "NoTable", "NoBytes", "NoNumber", "NoName", "NoRows"],
     "trees.py": ["check"],
     "scopes.py": ["scopes"],
+    "generate.py": ["generated"],
+    "flow.py": ["flowed"],
+    "tables.py": ["exception_rows", "line_rows", "exception_bytes", "line_bytes"],
+    "codes.py": ["Code"],
 }
 
 
@@ -26,9 +30,18 @@ class InterfaceTests(unittest.TestCase):
                 self.assertIn(name, defined, file)
 
     def test_arguments_have_the_names_told(self):
-        self.assertEqual(list(inspect.signature(trees.check).parameters), ["tree"])
-        self.assertEqual(list(inspect.signature(scopes.scopes).parameters), ["tree"])
-        self.assertEqual(list(inspect.signature(errors.NoProgram).parameters), ["line", "why"])
+        for thing, names in (
+            (trees.check, "tree"), (scopes.scopes, "tree"), (generate.generated, "tree"),
+            (flow.flowed, "rows head passes"), (tables.exception_rows, "code"), (tables.line_rows, "code"),
+            (tables.exception_bytes, "rows"), (tables.line_bytes, "rows line"), (errors.NoProgram, "line why"),
+            (codes.Code, "argcount onlycount stacksize flags code constants names slots kinds name path line lines "
+             "handlers"),
+        ):
+            self.assertEqual(list(inspect.signature(thing).parameters), names.split(), thing)
+        self.assertIs(inspect.signature(flow.flowed).parameters["passes"].default, True)
+
+    def test_codes_are_compared_by_their_class(self):
+        self.assertIn("__eq__", vars(codes.Code))
 
 
 class LanguageTests(unittest.TestCase):

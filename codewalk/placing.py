@@ -1,0 +1,95 @@
+"""Steps of the flow: lines for artificial rows, and cold rows at the end."""
+
+from codewalk.rounds import cleared
+from codewalk.ways import places_of, reached
+from codewalk.words import LEADING, LEAVING
+
+
+def with_lines(rows):
+    """The rows, the artificial ones with the line of the only row that leads to them, if that has one."""
+    sources = sources_of(rows)
+    if not sources:
+        return rows
+    lines = {}
+    for at in sources:
+        path = {}
+        source = at
+        while source in sources and source not in lines and source not in path:
+            path[source] = True
+            source = sources[source]
+        line = lines[source] if source in lines else rows[source][2]
+        for passed in path:
+            lines[passed] = line
+    return [(row[0], row[1], lines[at], row[3]) if at in lines else row for at, row in enumerate(rows)]
+
+
+def sources_of(rows):
+    """For artificial rows the index of the only row that leads to them, where there is just one."""
+    sources = {}
+    behind = {}
+    ahead = None
+    labels = []
+    for at, row in enumerate(rows):
+        if row[0] == "LABEL":
+            labels.append(row[1])
+            continue
+        if row[2] is None:
+            goes_on = ahead is None or rows[ahead][0] not in LEAVING
+            if labels:
+                # The begin is a way, too, although it has no line.
+                behind[at] = (labels, [ahead] if goes_on else [])
+            elif goes_on and ahead is not None:
+                sources[at] = ahead
+        ahead = at
+        if labels:
+            labels = []
+    if behind:
+        leads = leads_of(rows)
+        caught = {row[3][0]: True for row in rows if row[3] is not None}
+        for at, (labels, ways) in behind.items():
+            ways = ways + [source for label in labels for source in leads.get(label, ())]
+            if len(ways) == 1 and ways[0] is not None and not any([label in caught for label in labels]):
+                sources[at] = ways[0]
+    return sources
+
+
+def leads_of(rows):
+    """For each label the indexes of the rows that lead to it by a jump, FOR_ITER or SEND."""
+    leads = {}
+    for at, row in enumerate(rows):
+        if row[0] in LEADING:
+            leads.setdefault(row[1], []).append(at)
+    return leads
+
+
+def with_cold_last(rows):
+    """The rows, those that are reached by exceptions alone at the end."""
+    warm = warm_rows(rows)
+    if all(warm):
+        found, _ = cleared(rows)
+        return found
+    places = places_of(rows)
+    kept = []
+    cold = []
+    for at, row in enumerate(rows):
+        if warm[at]:
+            kept.append(row)
+            continue
+        word, argument, line, handler = row
+        if word == "JUMP" and warm[places[argument]]:
+            word = "JUMP_NO_INTERRUPT"
+        cold.append((word, argument, line, handler))
+        # A warm row that follows a cold one is reached by a jump, so it has a label.
+        if word not in LEAVING and warm[at + 1]:
+            cold.append(("JUMP_NO_INTERRUPT", rows[at + 1][1], line, handler))
+    found, _ = cleared(kept + cold)
+    return found
+
+
+def warm_rows(rows):
+    """For each row whether it is reached without exceptions; a label is what the row behind it is."""
+    warm = reached(rows, False)
+    for at in range(len(rows) - 2, -1, -1):
+        if rows[at][0] == "LABEL":
+            warm[at] = warm[at + 1]
+    return warm

@@ -1,0 +1,152 @@
+"""The two tables of a code: its exception handlers, and its lines. All numbers in them are in pieces of six bits."""
+
+from codewalk.codes import Code
+from codewalk.errors import NoCode, NoTable
+
+# In a byte: an entry begins, or a number goes on.
+BEGINS = 128
+GOES_ON = 64
+
+# The first byte of an entry, less the units: with a line, and without one.
+WITH_LINE = 232
+WITHOUT_LINE = 248
+MOST_UNITS = 8
+
+
+def exception_rows(code):
+    """The rows (begin, end, target, depth, bool) of a code's exception table. Raises NoCode, NoTable."""
+    if not isinstance(code, Code):
+        raise NoCode("code")
+    table = code.handlers
+    found = []
+    at = 0
+    while at < len(table):
+        begin, at = number_ahead(table, at, True)
+        size, at = number_ahead(table, at, False)
+        target, at = number_ahead(table, at, False)
+        last, at = number_ahead(table, at, False)
+        found.append((2 * begin, 2 * (begin + size), 2 * target, last >> 1, last & 1 == 1))
+    return found
+
+
+def number_ahead(table, at, begins):
+    """The number that begins at a byte, the highest piece first, and the byte behind it. Raises NoTable."""
+    first = at
+    found = 0
+    goes_on = True
+    while goes_on:
+        if at == len(table) or (table[at] >= BEGINS) != (begins and at == first):
+            raise NoTable(at)
+        goes_on = table[at] & GOES_ON != 0
+        if at == first and goes_on and table[at] & 63 == 0:
+            raise NoTable(at)
+        found = found << 6 | table[at] & 63
+        at += 1
+    return (found, at)
+
+
+def line_rows(code):
+    """The rows (begin, end, line) of a code's line table, neighbours of one line as one. Raises NoCode, NoTable."""
+    if not isinstance(code, Code):
+        raise NoCode("code")
+    table = code.lines
+    found = []
+    line = code.line
+    begin = 0
+    at = 0
+    while at < len(table):
+        units = (table[at] & 7) + 1
+        told = None
+        if table[at] >= WITHOUT_LINE:
+            at += 1
+        elif WITH_LINE <= table[at] < WITH_LINE + MOST_UNITS:
+            more, at = signed_number(table, at + 1)
+            line += more
+            told = line
+        else:
+            raise NoTable(at)
+        found.append((begin, begin + 2 * units, told))
+        begin += 2 * units
+    return joined(found)
+
+
+def signed_number(table, at):
+    """The signed number that begins at a byte, the lowest piece first, and the byte behind it. Raises NoTable."""
+    first = at
+    found = 0
+    goes_on = True
+    while goes_on:
+        if at == len(table) or table[at] >= BEGINS:
+            raise NoTable(at)
+        goes_on = table[at] & GOES_ON != 0
+        if not goes_on and table[at] == 0 and at > first:
+            raise NoTable(at)
+        found |= (table[at] & 63) << 6 * (at - first)
+        at += 1
+    if found == 1:
+        # There is no zero below zero.
+        raise NoTable(first)
+    return (-(found >> 1) if found & 1 else found >> 1, at)
+
+
+def joined(rows):
+    """Rows of lines, one behind the other, with neighbours of one line as one."""
+    found = []
+    for begin, end, line in rows:
+        if found and found[-1][2] == line:
+            found[-1] = (found[-1][0], end, line)
+        else:
+            found.append((begin, end, line))
+    return found
+
+
+def exception_bytes(rows):
+    """The exception table with these rows."""
+    found = []
+    for begin, end, target, depth, wanted in rows:
+        number = pieces_of(begin // 2)
+        found.append(number[0] | BEGINS)
+        found.extend(number[1:])
+        found.extend(pieces_of((end - begin) // 2))
+        found.extend(pieces_of(target // 2))
+        found.extend(pieces_of(2 * depth + (1 if wanted else 0)))
+    return tuple(found)
+
+
+def pieces_of(number):
+    """The bytes of a number, the highest piece first."""
+    found = [number & 63]
+    number >>= 6
+    while number > 0:
+        found.append(number & 63 | GOES_ON)
+        number >>= 6
+    found.reverse()
+    return found
+
+
+def line_bytes(rows, line):
+    """The line table with these rows, of a code with this first line."""
+    found = []
+    for begin, end, told in joined(rows):
+        units = (end - begin) // 2
+        while units > 0:
+            part = min(units, MOST_UNITS)
+            units -= part
+            if told is None:
+                found.append(WITHOUT_LINE + part - 1)
+            else:
+                found.append(WITH_LINE + part - 1)
+                found.extend(signed_pieces(told - line))
+                line = told
+    return tuple(found)
+
+
+def signed_pieces(number):
+    """The bytes of a signed number, the lowest piece first."""
+    rest = 2 * number if number >= 0 else -2 * number + 1
+    found = []
+    while rest > 63:
+        found.append(rest & 63 | GOES_ON)
+        rest >>= 6
+    found.append(rest)
+    return found
