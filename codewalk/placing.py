@@ -26,6 +26,7 @@ def with_lines(rows):
 def sources_of(rows):
     """For artificial rows the index of the only row that leads to them, where there is just one."""
     sources = {}
+    # The artificial rows behind labels: these, and the row ahead if it goes on.
     behind = {}
     ahead = None
     labels = []
@@ -43,13 +44,18 @@ def sources_of(rows):
         ahead = at
         if labels:
             labels = []
-    if behind:
-        leads = leads_of(rows)
-        caught = {row[3][0]: True for row in rows if row[3] is not None}
-        for at, (labels, ways) in behind.items():
-            ways = ways + [source for label in labels for source in leads.get(label, ())]
-            if len(ways) == 1 and ways[0] is not None and not any([label in caught for label in labels]):
-                sources[at] = ways[0]
+    return {**sources, **sources_at_labels(rows, behind)} if behind else sources
+
+
+def sources_at_labels(rows, behind):
+    """The same for rows behind labels, to which jumps may lead, and exceptions must not."""
+    leads = leads_of(rows)
+    caught = {row[3][0]: True for row in rows if row[3] is not None}
+    sources = {}
+    for at, (labels, ways) in behind.items():
+        ways = ways + [source for label in labels for source in leads.get(label, ())]
+        if len(ways) == 1 and ways[0] is not None and not any([label in caught for label in labels]):
+            sources[at] = ways[0]
     return sources
 
 

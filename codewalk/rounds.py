@@ -154,9 +154,9 @@ def last_labels(onward):
         while at in onward and at not in last and at not in path:
             path[at] = True
             at = onward[at]
-        end = None if at in path else last.get(at) if at in last else at
+        end = last[at] if at in last else at
         for passed in path:
-            last[passed] = end
+            last[passed] = None if at in path else end
     return last
 
 

@@ -3,6 +3,7 @@
 import unittest
 
 from codewalk.flow import flowed
+from codewalk.slots import numbers_of
 from tests.rows import PLAIN_HEAD, flow_rows, rows_of
 
 # Step 1 and 3 alone; NOPs stay.
@@ -218,6 +219,15 @@ class HandlerTests(StepTests):
             RETURN_VALUE | 1
             LABEL 0
             RERAISE 0 | 1""", NEEDED)
+
+    def test_what_opens_and_closes_is_no_row_under_a_handler_where_it_is_artificial(self):
+        self.flow("""
+            1: SETUP_FINALLY 0; !SETUP_FINALLY 1; !POP_BLOCK; POP_BLOCK; LOAD_CONST 1; RETURN_VALUE
+            LABEL 0; RERAISE 0; LABEL 1; RERAISE 0""", """
+            NOP | 1
+            NOP | 1
+            LOAD_CONST 1 | 1
+            RETURN_VALUE | 1""", NEEDED)
 
     def test_several_labels_at_one_row(self):
         self.flow("""
@@ -686,6 +696,13 @@ class PairTests(StepTests):
         found = flowed(rows_of(f"""2: DELETE_FAST w; {stores}; 3: LOAD_FAST v14; LOAD_FAST p; BUILD_TUPLE 2
             RETURN_VALUE"""), head)
         self.assertNotIn("LOAD_FAST_LOAD_FAST", [row[0] for row in found])
+
+    def test_numbers_by_themselves(self):
+        head = ("function", "f", "f", 1, (("b",), ("a",), None, "m"), ("a", "z"), ("y",), 11)
+        rows = [("MAKE_CELL", "a", None, None), ("LOAD_CLOSURE", "z", 1, None), ("LOAD_NAME", "n", 1, None),
+                ("STORE_FAST_LOAD_FAST", ("x", "b"), 1, None), ("LOAD_DEREF", "y", 1, None),
+                ("DELETE_FAST", "w", 1, None)]
+        self.assertEqual(numbers_of(rows, head), {"b": 0, "a": 1, "m": 2, "x": 3, "w": 4, "z": 5, "y": 6})
 
     def test_numbers_of_rest_and_more(self):
         names = tuple(f"p{at}" for at in range(14))
