@@ -16,7 +16,8 @@ class Scope:
         self.around = around
         self.line = line
         self.path = path_of(name, around)
-        # In the order names, only, rest, more.
+        # The parameters: names, only, rest and more by themselves, and all in this order.
+        self.taken = ((), (), None, None)
         self.parameters = {}
         self.bound = {}
         self.used = {}
@@ -71,6 +72,7 @@ def take_parameters(walk, parameters):
     """Bind the parameters of the scope that has just been entered."""
     scope = walk.scope
     names, _, rest, only, _, more = parameters
+    scope.taken = (tuple(names), tuple(only), rest, more)
     for name in [*names, *only, rest, more]:
         if name in scope.parameters:
             raise NoProgram(walk.line, "again")

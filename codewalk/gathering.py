@@ -140,6 +140,7 @@ def visit_comprehension(walk, node):
     visit_iterable(walk, clauses[0][1])
     walk.enter(word, name)
     scope = walk.scope
+    scope.taken = ((".0",), (), None, None)
     scope.parameters[".0"] = True
     scope.bound[".0"] = True
     for clause in clauses:

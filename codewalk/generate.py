@@ -1,6 +1,7 @@
 """The rows of all codes of a program."""
 
 from codewalk.expressions import write, write_target, write_test
+from codewalk.names import special
 from codewalk.preparing import prepare
 from codewalk.scopes import settled
 from codewalk.statements import write_body
@@ -18,7 +19,7 @@ def rows_of(scope, scopes):
     out = Writer(scope, scopes)
     if scope.word != "program":
         out.line = scope.line
-    generator = scope.word == "generator" or scope.yields
+    generator = is_generator(scope)
     write_begin(out, generator)
     if scope.word == "lambda":
         write(out, scope.content)
@@ -37,6 +38,10 @@ def rows_of(scope, scopes):
         out.put_bare("CALL_INTRINSIC_1", 3)
         out.put_bare("RERAISE", 1)
     return out.rows
+
+
+def is_generator(scope):
+    return scope.word == "generator" or scope.yields
 
 
 def write_begin(out, generator):
@@ -64,12 +69,6 @@ def write_class_names(out):
     out.put("STORE_NAME", special("module"))
     out.put("LOAD_CONST", out.scope.path)
     out.put("STORE_NAME", special("qualname"))
-
-
-def special(word):
-    """The name between double underscores."""
-    edge = "_" * 2
-    return f"{edge}{word}{edge}"
 
 
 def write_comprehension(out):

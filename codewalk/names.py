@@ -21,3 +21,9 @@ def is_name(name):
 def is_private(name):
     """Whether a name begins with two underscores and does not end with two."""
     return name[:2].count("_") == 2 and name[-2:].count("_") < 2
+
+
+def special(word):
+    """The name between double underscores."""
+    edge = "_" * 2
+    return f"{edge}{word}{edge}"

@@ -5,7 +5,7 @@ import inspect
 import pathlib
 import unittest
 
-from codewalk import codes, errors, flow, generate, scopes, tables, trees
+from codewalk import assembly, codes, errors, flow, generate, judging, marshalled, scopes, tables, trees
 
 ROOT = pathlib.Path(__file__).resolve().parent.parent
 FILES = sorted((ROOT / "codewalk").glob("**/*.py"))
@@ -18,6 +18,9 @@ INTERFACE = {
     "flow.py": ["flowed"],
     "tables.py": ["exception_rows", "line_rows", "exception_bytes", "line_bytes"],
     "codes.py": ["Code"],
+    "assembly.py": ["assembled", "compiled"],
+    "marshalled.py": ["written", "read"],
+    "judging.py": ["judged"],
 }
 
 
@@ -34,11 +37,15 @@ class InterfaceTests(unittest.TestCase):
             (trees.check, "tree"), (scopes.scopes, "tree"), (generate.generated, "tree"),
             (flow.flowed, "rows head passes"), (tables.exception_rows, "code"), (tables.line_rows, "code"),
             (tables.exception_bytes, "rows"), (tables.line_bytes, "rows line"), (errors.NoProgram, "line why"),
+            (assembly.assembled, "rows head codes"), (assembly.compiled, "tree passes"), (marshalled.written, "code"),
+            (marshalled.read, "data"), (judging.judged, "code"),
             (codes.Code, "argcount onlycount stacksize flags code constants names slots kinds name path line lines "
              "handlers"),
         ):
             self.assertEqual(list(inspect.signature(thing).parameters), names.split(), thing)
-        self.assertIs(inspect.signature(flow.flowed).parameters["passes"].default, True)
+        for thing in (flow.flowed, assembly.compiled):
+            self.assertIs(inspect.signature(thing).parameters["passes"].default, True)
+        self.assertEqual(inspect.signature(assembly.assembled).parameters["codes"].default, ())
 
     def test_codes_are_compared_by_their_class(self):
         self.assertIn("__eq__", vars(codes.Code))
@@ -64,7 +71,7 @@ class LanguageTests(unittest.TestCase):
             for node in ast.walk(ast.parse(path.read_text())):
                 self.assertNotIsInstance(node, (ast.Import, ast.Global))
                 if isinstance(node, ast.ImportFrom):
-                    self.assertTrue(node.module.startswith("codewalk."), path.name)
+                    self.assertTrue(node.module.startswith("codewalk.") or node.module == "heapq", path.name)
 
     def test_strings_have_plain_characters(self):
         for path in FILES:

@@ -1,0 +1,71 @@
+"""A code that is judged: its instructions, one list for each part of them, and where they lead."""
+
+from codewalk.encoding import (
+    CELL, FREE, FUNCTION, GENERATOR, NESTED, PARAMETER_CELL, PLAIN, WITH_MORE, WITH_REST,
+)
+from codewalk.words import LEADING
+
+BACKWARD = {"JUMP_BACKWARD": True, "JUMP_BACKWARD_NO_INTERRUPT": True}
+
+
+class Case:
+    """A code whose bytes could be cut into instructions."""
+
+    def __init__(self, code, instructions):
+        self.code = code
+        self.begins = [begin for begin, _, _, _ in instructions]
+        self.words = [word for _, word, _, _ in instructions]
+        self.arguments = [argument for _, _, argument, _ in instructions]
+        # The number of the instruction that begins at each offset.
+        self.places = {begin: at for at, begin in enumerate(self.begins)}
+        # Where jumps lead, in bytes.
+        self.targets = [
+            target_of(word, argument, end) if word in LEADING else None for _, word, argument, end in instructions
+        ]
+        # The rows of the exception table, and the one of each instruction, when it is known to be a table.
+        self.rows = []
+        self.handlers = [None] * len(instructions)
+
+    def word_at(self, at):
+        """The word of an instruction, or None where there is none."""
+        return self.words[at] if 0 <= at < len(self.words) else None
+
+    def led_to(self, at):
+        """The number of the instruction to which a jump leads, or -1 if it leads to no begin of one."""
+        return self.places.get(self.targets[at], -1)
+
+
+def target_of(word, argument, end):
+    return end - 2 * argument if word in BACKWARD else end + 2 * argument
+
+
+def spread(rows, begins):
+    """What rows (begin, end, ..) of a table, in their order, tell of instructions that begin so; None if nothing."""
+    found = []
+    at = 0
+    for begin in begins:
+        while at < len(rows) and rows[at][1] <= begin:
+            at += 1
+        found.append(rows[at][2] if at < len(rows) and rows[at][0] <= begin else None)
+    return found
+
+
+def parameters_in(code):
+    """How many locals of a code are parameters."""
+    return code.argcount + code.onlycount + (1 if code.flags & WITH_REST else 0) + (1 if code.flags & WITH_MORE else 0)
+
+
+def has_right_slots(code):
+    """Whether the flags of a code and its locals, with their kinds, go together."""
+    kinds = code.kinds
+    if len(set(code.slots)) < len(code.slots):
+        return False
+    if code.flags == 0:
+        return code.argcount == code.onlycount == 0 and kinds.count(FREE) == len(kinds)
+    if code.flags & FUNCTION != FUNCTION or code.flags > FUNCTION + WITH_REST + WITH_MORE + NESTED + GENERATOR:
+        return False
+    many = parameters_in(code)
+    if many > len(kinds) or kinds[:many].count(PLAIN) + kinds[:many].count(PARAMETER_CELL) < many:
+        return False
+    plain, cells, frees = kinds[many:].count(PLAIN), kinds[many:].count(CELL), kinds[many:].count(FREE)
+    return kinds[many:] == (PLAIN,) * plain + (CELL,) * cells + (FREE,) * frees

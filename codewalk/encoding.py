@@ -1,0 +1,84 @@
+"""The numbers in codes: of words, with the caches behind them, of operators, of kinds of locals, and of flags."""
+
+NUMBERS = {
+    "CACHE": 0, "BEFORE_WITH": 2, "BINARY_SLICE": 4, "BINARY_SUBSCR": 5, "CHECK_EXC_MATCH": 7, "CLEANUP_THROW": 8,
+    "DELETE_SUBSCR": 9, "END_FOR": 11, "END_SEND": 12, "GET_ITER": 19, "GET_YIELD_FROM_ITER": 21,
+    "LOAD_ASSERTION_ERROR": 23, "LOAD_BUILD_CLASS": 24, "LOAD_LOCALS": 25, "MAKE_FUNCTION": 26, "NOP": 30,
+    "POP_EXCEPT": 31, "POP_TOP": 32, "PUSH_EXC_INFO": 33, "PUSH_NULL": 34, "RETURN_GENERATOR": 35, "RETURN_VALUE": 36,
+    "STORE_SLICE": 38, "STORE_SUBSCR": 39, "TO_BOOL": 40, "UNARY_INVERT": 41, "UNARY_NEGATIVE": 42, "UNARY_NOT": 43,
+    "WITH_EXCEPT_START": 44, "BINARY_OP": 45, "BUILD_CONST_KEY_MAP": 46, "BUILD_LIST": 47, "BUILD_MAP": 48,
+    "BUILD_TUPLE": 52, "CALL": 53, "CALL_FUNCTION_EX": 54, "CALL_INTRINSIC_1": 55, "CALL_KW": 57, "COMPARE_OP": 58,
+    "CONTAINS_OP": 59, "COPY": 61, "COPY_FREE_VARS": 62, "DELETE_ATTR": 63, "DELETE_DEREF": 64, "DELETE_FAST": 65,
+    "DELETE_GLOBAL": 66, "DELETE_NAME": 67, "DICT_MERGE": 68, "EXTENDED_ARG": 71, "FOR_ITER": 72, "IS_OP": 76,
+    "JUMP_BACKWARD": 77, "JUMP_BACKWARD_NO_INTERRUPT": 78, "JUMP_FORWARD": 79, "LIST_APPEND": 80, "LIST_EXTEND": 81,
+    "LOAD_ATTR": 82, "LOAD_CONST": 83, "LOAD_DEREF": 84, "LOAD_FAST": 85, "LOAD_FAST_CHECK": 87,
+    "LOAD_FAST_LOAD_FAST": 88, "LOAD_FROM_DICT_OR_DEREF": 89, "LOAD_GLOBAL": 91, "LOAD_NAME": 92, "MAKE_CELL": 94,
+    "MAP_ADD": 95, "POP_JUMP_IF_FALSE": 97, "POP_JUMP_IF_NONE": 98, "POP_JUMP_IF_NOT_NONE": 99,
+    "POP_JUMP_IF_TRUE": 100, "RAISE_VARARGS": 101, "RERAISE": 102, "RETURN_CONST": 103, "SEND": 104,
+    "SET_FUNCTION_ATTRIBUTE": 106, "STORE_ATTR": 108, "STORE_DEREF": 109, "STORE_FAST": 110,
+    "STORE_FAST_LOAD_FAST": 111, "STORE_FAST_STORE_FAST": 112, "STORE_GLOBAL": 113, "STORE_NAME": 114, "SWAP": 115,
+    "UNPACK_EX": 116, "UNPACK_SEQUENCE": 117, "YIELD_VALUE": 118, "RESUME": 149,
+}
+
+WORDS = {
+    0: "CACHE", 2: "BEFORE_WITH", 4: "BINARY_SLICE", 5: "BINARY_SUBSCR", 7: "CHECK_EXC_MATCH", 8: "CLEANUP_THROW",
+    9: "DELETE_SUBSCR", 11: "END_FOR", 12: "END_SEND", 19: "GET_ITER", 21: "GET_YIELD_FROM_ITER",
+    23: "LOAD_ASSERTION_ERROR", 24: "LOAD_BUILD_CLASS", 25: "LOAD_LOCALS", 26: "MAKE_FUNCTION", 30: "NOP",
+    31: "POP_EXCEPT", 32: "POP_TOP", 33: "PUSH_EXC_INFO", 34: "PUSH_NULL", 35: "RETURN_GENERATOR", 36: "RETURN_VALUE",
+    38: "STORE_SLICE", 39: "STORE_SUBSCR", 40: "TO_BOOL", 41: "UNARY_INVERT", 42: "UNARY_NEGATIVE", 43: "UNARY_NOT",
+    44: "WITH_EXCEPT_START", 45: "BINARY_OP", 46: "BUILD_CONST_KEY_MAP", 47: "BUILD_LIST", 48: "BUILD_MAP",
+    52: "BUILD_TUPLE", 53: "CALL", 54: "CALL_FUNCTION_EX", 55: "CALL_INTRINSIC_1", 57: "CALL_KW", 58: "COMPARE_OP",
+    59: "CONTAINS_OP", 61: "COPY", 62: "COPY_FREE_VARS", 63: "DELETE_ATTR", 64: "DELETE_DEREF", 65: "DELETE_FAST",
+    66: "DELETE_GLOBAL", 67: "DELETE_NAME", 68: "DICT_MERGE", 71: "EXTENDED_ARG", 72: "FOR_ITER", 76: "IS_OP",
+    77: "JUMP_BACKWARD", 78: "JUMP_BACKWARD_NO_INTERRUPT", 79: "JUMP_FORWARD", 80: "LIST_APPEND", 81: "LIST_EXTEND",
+    82: "LOAD_ATTR", 83: "LOAD_CONST", 84: "LOAD_DEREF", 85: "LOAD_FAST", 87: "LOAD_FAST_CHECK",
+    88: "LOAD_FAST_LOAD_FAST", 89: "LOAD_FROM_DICT_OR_DEREF", 91: "LOAD_GLOBAL", 92: "LOAD_NAME", 94: "MAKE_CELL",
+    95: "MAP_ADD", 97: "POP_JUMP_IF_FALSE", 98: "POP_JUMP_IF_NONE", 99: "POP_JUMP_IF_NOT_NONE",
+    100: "POP_JUMP_IF_TRUE", 101: "RAISE_VARARGS", 102: "RERAISE", 103: "RETURN_CONST", 104: "SEND",
+    106: "SET_FUNCTION_ATTRIBUTE", 108: "STORE_ATTR", 109: "STORE_DEREF", 110: "STORE_FAST",
+    111: "STORE_FAST_LOAD_FAST", 112: "STORE_FAST_STORE_FAST", 113: "STORE_GLOBAL", 114: "STORE_NAME", 115: "SWAP",
+    116: "UNPACK_EX", 117: "UNPACK_SEQUENCE", 118: "YIELD_VALUE", 149: "RESUME",
+}
+
+# How many units of two bytes stand behind an instruction, where there are some.
+CACHES = {
+    "BINARY_OP": 1, "BINARY_SUBSCR": 1, "CALL": 3, "COMPARE_OP": 1, "CONTAINS_OP": 1, "FOR_ITER": 1,
+    "JUMP_BACKWARD": 1, "LOAD_ATTR": 9, "LOAD_GLOBAL": 4, "POP_JUMP_IF_FALSE": 1, "POP_JUMP_IF_NONE": 1,
+    "POP_JUMP_IF_NOT_NONE": 1, "POP_JUMP_IF_TRUE": 1, "SEND": 1, "STORE_ATTR": 4, "STORE_SUBSCR": 1, "TO_BOOL": 3,
+    "UNPACK_SEQUENCE": 1,
+}
+
+# The number of the word that stands behind others only.
+CACHE = 0
+
+EXTENDED_ARG = 71
+
+# The numbers below this one are those of words without an argument.
+FIRST_WITH_ARGUMENT = 45
+
+OPERATORS = {
+    "+": 0, "&": 1, "//": 2, "<<": 3, "*": 5, "mod": 6, "|": 7, "**": 8, ">>": 9, "-": 10, "^": 12, "+=": 13,
+    "&=": 14, "//=": 15, "<<=": 16, "*=": 18, "mod=": 19, "|=": 20, "**=": 21, ">>=": 22, "-=": 23, "^=": 25,
+}
+OPERATOR_SIGNS = {
+    0: "+", 1: "&", 2: "//", 3: "<<", 5: "*", 6: "mod", 7: "|", 8: "**", 9: ">>", 10: "-", 12: "^", 13: "+=",
+    14: "&=", 15: "//=", 16: "<<=", 18: "*=", 19: "mod=", 20: "|=", 21: "**=", 22: ">>=", 23: "-=", 25: "^=",
+}
+COMPARISONS = {"<": 2, "<=": 42, "==": 72, "!=": 103, ">": 132, ">=": 172}
+COMPARISON_SIGNS = {2: "<", 42: "<=", 72: "==", 103: "!=", 132: ">", 172: ">="}
+
+# What is added to the number of a comparison of which only the truth is wanted.
+TRUTH = 16
+
+# The kinds of locals: plain ones, cells, cells that are parameters, and free names.
+PLAIN = 32
+CELL = 64
+PARAMETER_CELL = 96
+FREE = 128
+
+# The flags of functions, and what is added for some.
+FUNCTION = 3
+WITH_REST = 4
+WITH_MORE = 8
+NESTED = 16
+GENERATOR = 32
