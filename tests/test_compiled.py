@@ -126,14 +126,14 @@ def lines_of_scopes(tree):
 
 
 def parts_compiled(tree, passes):
-    """The code of a program made of its parts, from the innermost out."""
+    """The codes of a program made of its parts, from the innermost out, by the numbers of scopes."""
     rows, given, nodes, lines = generated(tree), heads(tree), all_opened(tree), lines_of_scopes(tree)
     codes = [None] * len(rows)
     for at in range(len(rows) - 1, -1, -1):
         given[at][3] = 1 if at == 0 else lines[id(nodes[at])]
         head = tuple(given[at])
         codes[at] = assembled(flowed(rows[at], head, passes), head, codes)
-    return codes[0]
+    return codes
 
 
 class CompiledTests(unittest.TestCase):
@@ -155,7 +155,7 @@ class CompiledTests(unittest.TestCase):
                 continue
             told += 1
             for passes in (True, False):
-                self.assertEqual(compiled(tree, passes), parts_compiled(tree, passes))
+                self.assertEqual(compiled(tree, passes), parts_compiled(tree, passes)[0])
         self.assertGreater(told, 150)
 
     def test_arguments_by_place_and_by_name(self):

@@ -5,7 +5,9 @@ import inspect
 import pathlib
 import unittest
 
-from codewalk import assembly, codes, errors, flow, generate, judging, marshalled, scopes, tables, trees
+from codewalk import (
+    assembly, changes, codes, errors, flow, generate, judging, machine, marshalled, scopes, tables, telling, trees, walker,
+)
 
 ROOT = pathlib.Path(__file__).resolve().parent.parent
 FILES = sorted((ROOT / "codewalk").glob("**/*.py"))
@@ -21,6 +23,10 @@ INTERFACE = {
     "assembly.py": ["assembled", "compiled"],
     "marshalled.py": ["written", "read"],
     "judging.py": ["judged"],
+    "machine.py": ["run"],
+    "walker.py": ["walk"],
+    "changes.py": ["changed", "moved", "renamed"],
+    "telling.py": ["instructions", "bytes_of"],
 }
 
 
@@ -38,7 +44,9 @@ class InterfaceTests(unittest.TestCase):
             (flow.flowed, "rows head passes"), (tables.exception_rows, "code"), (tables.line_rows, "code"),
             (tables.exception_bytes, "rows"), (tables.line_bytes, "rows line"), (errors.NoProgram, "line why"),
             (assembly.assembled, "rows head codes"), (assembly.compiled, "tree passes"), (marshalled.written, "code"),
-            (marshalled.read, "data"), (judging.judged, "code"),
+            (marshalled.read, "data"), (judging.judged, "code"), (machine.run, "code most"), (walker.walk, "tree most"),
+            (changes.changed, "one other"), (changes.moved, "tree line more"), (changes.renamed, "tree number name other"),
+            (telling.instructions, "code"), (telling.bytes_of, "rows"),
             (codes.Code, "argcount onlycount stacksize flags code constants names slots kinds name path line lines "
              "handlers"),
         ):

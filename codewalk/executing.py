@@ -1,0 +1,233 @@
+"""How the walker executes statements."""
+
+from codewalk.assigning import assign, assign_in_place, remove
+from codewalk.blocks import Context, Final, Guarded, Loop, end_block, fail, leave
+from codewalk.calling import make_class
+from codewalk.evaluating import all_of, function_of, test, to
+from codewalk.going import next_of
+from codewalk.outlines import push, store
+from codewalk.results import call_on_top, copy_top, cut_off, drop, get_iterator, make_function, store_name
+from codewalk.shapes import is_constant
+
+
+def body_of(row):
+    """The tasks that execute statements."""
+    return [(STATEMENTS[node[0]], node) for node in row]
+
+
+def execute_expr(walker, frame, node):
+    walker.tell(frame, node[1])
+    if not is_constant(node[2]):
+        push(frame, [to(node[2]), (drop, None)])
+
+
+def execute_assign(walker, frame, node):
+    _, line, targets, value = node
+    walker.tell(frame, line)
+    tasks = [to(value)]
+    for target in targets[:-1]:
+        tasks.extend([(copy_top, None), (assign, target)])
+    push(frame, [*tasks, (assign, targets[-1])])
+
+
+def execute_in_place(walker, frame, node):
+    walker.tell(frame, node[1])
+    assign_in_place(walker, frame, node)
+
+
+def execute_delete(walker, frame, node):
+    walker.tell(frame, node[1])
+    push(frame, [(remove, target) for target in node[2]])
+
+
+def execute_nothing(walker, frame, node):
+    walker.tell(frame, node[1])
+
+
+def execute_return(walker, frame, node):
+    _, line, value = node
+    walker.tell(frame, line)
+    if is_constant(value):
+        leave(walker, frame, ("return", value[1]))
+    else:
+        push(frame, [to(value), (give_back, None)])
+
+
+def give_back(walker, frame, part):
+    leave(walker, frame, ("return", frame.stack.pop()))
+
+
+def execute_break(walker, frame, node):
+    walker.tell(frame, node[1])
+    leave(walker, frame, ("break", None))
+
+
+def execute_continue(walker, frame, node):
+    walker.tell(frame, node[1])
+    leave(walker, frame, ("continue", None))
+
+
+def execute_raise(walker, frame, node):
+    walker.tell(frame, node[1])
+    given = [value for value in node[2:] if value is not None]
+    if given:
+        push(frame, [*all_of(given), (throw, len(given))])
+    else:
+        # What is raised again leaves no trace here.
+        fail(walker, frame, walker.fault_again())
+
+
+def throw(walker, frame, many):
+    """Raise what is given, with a cause on top of it if there are two values."""
+    given = [frame.stack.pop() for _ in range(many)]
+    walker.throw_given(given[-1], given[:-1])
+
+
+def execute_assert(walker, frame, node):
+    walker.tell(frame, node[1])
+    push(frame, [test(node[2]), (claim, node[3])])
+
+
+def claim(walker, frame, message):
+    if frame.stack.pop():
+        return
+    frame.stack.append(walker.named["AssertionError"])
+    push(frame, [(throw, 1)] if message is None else [to(message), (call_on_top, None), (throw, 1)])
+
+
+def execute_if(walker, frame, node):
+    walker.tell(frame, node[1])
+    push(frame, [test(node[2]), (branch, node)])
+
+
+def branch(walker, frame, node):
+    push(frame, body_of(node[3] if frame.stack.pop() else node[4]))
+
+
+def execute_while(walker, frame, node):
+    walker.tell(frame, node[1])
+    push(frame, [test(node[2]), (repeat, node)])
+
+
+def repeat(walker, frame, node):
+    if frame.stack.pop():
+        push(frame, [*body_of(node[3]), (end_block, Loop(frame, (execute_while, node), 0))])
+    else:
+        push(frame, body_of(node[4]))
+
+
+def execute_for(walker, frame, node):
+    walker.tell(frame, node[1])
+    push(frame, [to(node[3]), (get_iterator, None), (turn, node)])
+
+
+def turn(walker, frame, node):
+    """Begin a turn of a For, whose iterator is on top."""
+    _, line, target, _, body, orelse = node
+    walker.tell(frame, line)
+    found = next_of(walker, frame.stack[-1])
+    if not found:
+        frame.stack.pop()
+        push(frame, body_of(orelse))
+        return
+    push(frame, [(assign, target), *body_of(body), (end_block, Loop(frame, (turn, node), 1))])
+    frame.stack.append(found[0])
+
+
+def execute_try(walker, frame, node):
+    _, line, body, handlers, orelse, finalbody = node
+    walker.tell(frame, line)
+    tasks = body_of(body)
+    if handlers:
+        tasks.append((end_block, Guarded(frame, body_of(orelse), (look_at_handler, (handlers, 0)))))
+    if finalbody:
+        tasks.append((end_block, Final(frame, body_of(finalbody))))
+    push(frame, tasks)
+
+
+def look_at_handler(walker, frame, part):
+    """Look whether a handler is for the exception that is handled."""
+    handlers, at = part
+    if at == len(handlers):
+        fail(walker, frame, walker.handled.fault)
+        return
+    line, kind, _, _ = handlers[at]
+    walker.tell(frame, line)
+    if kind is None:
+        enter_handler(walker, frame, handlers[at])
+    else:
+        push(frame, [to(kind), (match, part)])
+
+
+def match(walker, frame, part):
+    handlers, at = part
+    if walker.is_caught(walker.handled.fault, frame.stack.pop()):
+        enter_handler(walker, frame, handlers[at])
+    else:
+        push(frame, [(look_at_handler, (handlers, at + 1))])
+
+
+def enter_handler(walker, frame, handler):
+    _, _, name, body = handler
+    if name is not None:
+        store(walker, frame, name, walker.handled.fault)
+        # The next task is the end of what handles the exception.
+        _, handling = frame.tasks[-1]
+        handling.name = name
+    push(frame, body_of(body))
+
+
+def execute_with(walker, frame, node):
+    _, line, items, body = node
+    walker.tell(frame, line)
+    push(frame, [to(items[0][0]), (enter, (items, 0, line, body))])
+
+
+def enter(walker, frame, part):
+    """Enter the context on top, and go on with the next item or the body."""
+    items, at, line, body = part
+    leave_method, value = walker.entered(frame.stack.pop())
+    frame.stack.append(leave_method)
+    block = Context(frame, line)
+    frame.stack.append(value)
+    target = items[at][1]
+    tasks = [(drop, None) if target is None else (assign, target)]
+    if at + 1 < len(items):
+        tasks.extend([to(items[at + 1][0]), (enter, (items, at + 1, line, body))])
+    else:
+        tasks.extend(body_of(body))
+    push(frame, [*tasks, (end_block, block)])
+
+
+def execute_function(walker, frame, node):
+    _, line, name, parameters, decorators, number = node
+    walker.tell(frame, line)
+    push(frame, [*all_of(decorators), *function_of(parameters, number), *stored(name, decorators)])
+
+
+def stored(name, decorators):
+    """The tasks that call decorators below what they decorate, and store it."""
+    return [*[(call_on_top, None)] * len(decorators), (store_name, name)]
+
+
+def execute_class(walker, frame, node):
+    _, line, name, bases, decorators, number = node
+    walker.tell(frame, line)
+    made = [(make_function, (number, 0, ())), *all_of(bases), (build, (name, len(bases)))]
+    push(frame, [*all_of(decorators), *made, *stored(name, decorators)])
+
+
+def build(walker, frame, part):
+    """Make a class of the function of its body, which lies below its bases."""
+    name, many = part
+    body, *bases = cut_off(frame, many + 1)
+    frame.stack.append(make_class(walker, None, [body, name, *bases]))
+
+
+STATEMENTS = {
+    "Expr": execute_expr, "Assign": execute_assign, "AugAssign": execute_in_place, "Delete": execute_delete,
+    "Pass": execute_nothing, "Break": execute_break, "Continue": execute_continue, "Return": execute_return,
+    "Raise": execute_raise, "Assert": execute_assert, "Global": execute_nothing, "Nonlocal": execute_nothing,
+    "If": execute_if, "While": execute_while, "For": execute_for, "Try": execute_try, "With": execute_with,
+    "Function": execute_function, "Class": execute_class,
+}

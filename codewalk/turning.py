@@ -1,0 +1,106 @@
+"""How the walker runs the frame of a scope from its begin: of comprehensions, clause by clause."""
+
+from codewalk.assigning import assign
+from codewalk.blocks import Block, end_block
+from codewalk.comparing import put_pair
+from codewalk.encoding import GENERATOR
+from codewalk.evaluating import all_of, test, to
+from codewalk.executing import body_of, give_back
+from codewalk.going import iterator_of, next_of
+from codewalk.names import special
+from codewalk.outlines import load_name, push
+from codewalk.results import cut_off, drop, give, put_value
+from codewalk.values import Dict, List
+
+
+class Clause(Block):
+    """The further turns of a clause of a comprehension."""
+
+    def __init__(self, frame, at):
+        Block.__init__(self, frame)
+        self.at = at
+
+    def ended(self, walker, frame):
+        # A further turn tells the line, whether another one has been told or not.
+        frame.told = None
+        walker.tell(frame, frame.line)
+        turn_clause(walker, frame, self.at)
+
+
+def begin(walker, frame):
+    """Put the tasks of the scope of a frame there."""
+    scope = frame.plan.scope
+    tasks = []
+    if frame.plan.flags & GENERATOR:
+        # What is sent first.
+        tasks.append((drop, None))
+    if scope.word == "lambda":
+        tasks.extend([(tell_begin, None), to(scope.content), (give_back, None)])
+    elif scope.is_comprehension():
+        tasks.extend([(tell_begin, None), (begin_comprehension, scope.word), (give_back, None)])
+    else:
+        if scope.word == "class":
+            tasks.extend([(tell_begin, None), (store_class_names, None)])
+        tasks.extend([*body_of(scope.content), (put_value, None), (give_back, None)])
+    push(frame, tasks)
+
+
+def tell_begin(walker, frame, part):
+    walker.tell(frame, frame.line)
+
+
+def store_class_names(walker, frame, part):
+    frame.names[special("module")] = load_name(walker, frame, special("name"))
+    frame.names[special("qualname")] = frame.path
+
+
+def begin_comprehension(walker, frame, word):
+    """Put what is made onto the stack, or None for a generator, and begin with the first clause."""
+    made = {"list": List([]), "dict": Dict(), "generator": None}
+    frame.stack.append(made[word])
+    frame.stack.append(frame.locals[".0"])
+    push(frame, [(begin_clause, 0)])
+
+
+def begin_clause(walker, frame, at):
+    """Begin to go through the value on top."""
+    frame.stack.append(iterator_of(walker, frame.stack.pop()))
+    turn_clause(walker, frame, at)
+
+
+def turn_clause(walker, frame, at):
+    """Take the next value of a clause, whose iterator is on top."""
+    values, clauses = frame.plan.scope.content
+    found = next_of(walker, frame.stack[-1])
+    if not found:
+        frame.stack.pop()
+        return
+    target, _, tests = clauses[at]
+    tasks = [(assign, target)]
+    for node in tests:
+        tasks.extend([test(node), (look_further, None)])
+    if at + 1 < len(clauses):
+        tasks.extend([to(clauses[at + 1][1]), (begin_clause, at + 1)])
+    else:
+        tasks.extend([*all_of(values), (add, frame.plan.scope.word)])
+    push(frame, [*tasks, (end_block, Clause(frame, at))])
+    frame.stack.append(found[0])
+
+
+def look_further(walker, frame, part):
+    """Leave out what is still to be done in this turn of a clause, if a test has failed."""
+    if frame.stack.pop():
+        return
+    while not isinstance(frame.tasks[-1][1], Clause):
+        frame.tasks.pop()
+
+
+def add(walker, frame, word):
+    """Add to what the comprehension makes, at the bottom of the stack, or yield."""
+    if word == "list":
+        frame.stack[0].row.append(frame.stack.pop())
+    elif word == "dict":
+        key, value = cut_off(frame, 2)
+        put_pair(walker, frame.stack[0], key, value)
+    else:
+        push(frame, [(give, None), (drop, None)])
