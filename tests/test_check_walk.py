@@ -85,6 +85,79 @@ class DeepTests(PlaceTests):
         self.wrong(tree, (0,) + (3, 0) * 299)
 
 
+    def test_a_fault_at_each_depth(self):
+        value, place, stack = BAD, (), []
+        for depth in range(130):
+            around, step = DEEP_EXPRESSIONS[depth % len(DEEP_EXPRESSIONS)]
+            value, place = around(value), step + place
+            self.wrong([("Expr", 1, value)], (0, 2, *place))
+            # What is wrong behind it is not told, what is wrong ahead of it is.
+            self.wrong([("Assign", 1, [A], ("Tuple", [value, BAD]))], (0, 3, 1, 0, *place))
+            self.wrong([("Assign", 1, [A], ("Tuple", [BAD, value]))], (0, 3, 1, 0))
+        right = A
+        for depth in range(130):
+            around, step = DEEP_EXPRESSIONS[depth % len(DEEP_EXPRESSIONS)]
+            right = around(right)
+            self.assertIsNone(check([("Expr", 1, right)]))
+            self.wrong([("Expr", 1, ("List", [right, right, BAD]))], (0, 2, 1, 2))
+            self.wrong([("Expr", 1, ("List", [right, value, right]))], (0, 2, 1, 1, *place))
+            self.wrong([("Expr", 1, right), ("Pass", 1)], (1,))
+
+    def test_lines_behind_deep_bodies(self):
+        for depth in (10, 38, 39, 40, 41, 42, 80, 81, 82, 170):
+            for more in (0, 1):
+                tree = [("Pass", depth + 1)]
+                for line in range(depth, 0, -1):
+                    tree = [("If", line, A, tree, [])]
+                self.assertIsNone(check(tree + [("Pass", depth + 2)]))
+                self.wrong(tree + [("Pass", depth + 1)], (1,))
+                # Within the body, behind what is deeper there.
+                inner, line = [("Pass", 3 * depth)], 3 * depth + more
+                for at in range(depth):
+                    inner = [("While", 3 * depth - at - 1, A, inner, [("Pass", line + at)])]
+                if more:
+                    self.assertIsNone(check(inner))
+                else:
+                    self.wrong(inner, (0,) + (3, 0) * (depth - 1) + (4, 0))
+
+    def test_deep_targets_with_two_stars(self):
+        for depth in (1, 38, 39, 40, 41, 80, 120):
+            target = A
+            for _ in range(depth):
+                target = ("Tuple", [A, target])
+            self.assertIsNone(check([("Assign", 1, [target], A)]))
+            stars = ("List", [("Starred", target), A])
+            self.assertIsNone(check([("Assign", 1, [stars], A)]))
+            for pieces in ([target, ("Starred", A), ("Starred", A)], [("Starred", target), ("Starred", target)], [("Starred", A), target, ("Starred", BAD)]):
+                self.wrong([("Assign", 1, [A, ("Tuple", pieces)], A)], (0, 2, 1))
+            self.wrong([("Assign", 1, [("Tuple", [target, ("Starred", BAD)])], A)], (0, 2, 0, 1, 1, 1))
+
+    def test_calls_are_not_nested_as_deep_as_trees(self):
+        def deepest(tree):
+            found, now = [0], [0]
+            def note(frame, event, _):
+                now[0] += {"call": 1, "return": -1}.get(event, 0)
+                found[0] = max(found[0], now[0])
+            sys.setprofile(note)
+            try:
+                check(tree)
+            finally:
+                sys.setprofile(None)
+            return found[0]
+        self.assertLess(deepest(nested(1000)), 150)
+        self.assertEqual(deepest(nested(300)), deepest(nested(1000)))
+
+
+# What may be around an expression, and the step from it to this.
+DEEP_EXPRESSIONS = (
+    (lambda x: ("UnaryOp", "-", x), (2,)), (lambda x: ("BinOp", A, "+", x), (3,)), (lambda x: ("Call", A, [A, x], []), (2, 1)),
+    (lambda x: ("Call", A, [], [("k", x)]), (3, 0, 1)), (lambda x: ("Subscript", A, ("Slice", None, x)), (2, 2)), (lambda x: ("List", [("Starred", x)]), (1, 0, 1)),
+    (lambda x: ("Dict", [A, x], [A, A]), (1, 1)), (lambda x: ("Lambda", ([], [], None, ["k"], [x], None), A), (1, 4, 0)),
+    (lambda x: ("ListComp", A, [(A, A, []), (A, x, [])]), (2, 1, 1)), (lambda x: ("DictComp", A, A, [(("Attribute", x, "y"), A, [])]), (3, 0, 0, 1)),
+    (lambda x: ("IfExp", A, x, A), (2,)), (lambda x: ("Attribute", x, "y"), (1,)),
+)
+
+
 class LongTests(PlaceTests):
     def test_a_fault_in_each_statement(self):
         tree = [("Pass", line) for line in range(1, 401)]
@@ -116,8 +189,8 @@ class TimeTests(unittest.TestCase):
     def test_few_calls_for_each_node(self):
         tree = many_small_nodes(24)
         nodes = len([place for place in places(tree) if place and isinstance(at_place(tree, place), tuple)])
-        self.assertLess(calls_of(check, tree), 14 * nodes)
-        self.assertLess(calls_of(scopes, tree), 18 * nodes)
+        self.assertLess(calls_of(check, tree), 8 * nodes)
+        self.assertLess(calls_of(scopes, tree), 11 * nodes)
 
     def test_calls_grow_as_the_tree_does(self):
         few, many = (calls_of(check, many_small_nodes(times)) for times in (10, 100))
@@ -134,7 +207,7 @@ class TimeTests(unittest.TestCase):
         self.assertLess(calls_of(check, tree), 200)
 
     def test_the_showcase(self):
-        self.assertLess(calls_of(check, showcase()), 6 * len(places(showcase())))
+        self.assertLess(calls_of(check, showcase()), 3 * len(places(showcase())))
 
 
 if __name__ == "__main__":
