@@ -27,9 +27,7 @@ def operate_on_rows(world, op, left, right):
         return repeated(world, left, right)
     if op != "|" or not isinstance(left, Dict) or not isinstance(right, Dict):
         world.fail("TypeError")
-    found = Dict()
-    found.pairs.update(left.pairs)
-    return merged(world, found, right)
+    return merged(world, merged(world, Dict(), left), right)
 
 
 def joined(world, left, right):

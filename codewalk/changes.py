@@ -4,6 +4,7 @@ from codewalk.assembly import codes_of
 from codewalk.codes import Code, told_constants
 from codewalk.errors import NoName, NoNumber
 from codewalk.names import is_name
+from codewalk.preparing import prepare
 from codewalk.rebuilding import Moving, Renaming, rebuilt_row
 from codewalk.scopes import settled
 from codewalk.trees import check
@@ -62,6 +63,7 @@ def moved(tree, line, more):
 def renamed(tree, number, name, other):
     """The tree with another name for a local of a scope. Raises NoTree, NoProgram, NoNumber, NoName."""
     scopes = settled(tree)
+    prepare(tree, scopes)
     if not isinstance(number, int) or isinstance(number, bool) or not 0 <= number < len(scopes):
         raise NoNumber(number)
     scope = scopes[number]

@@ -4,12 +4,16 @@ from codewalk.blocks import delegate
 from codewalk.comparing import comparison, identical, truth
 from codewalk.going import contains
 from codewalk.outlines import load, push
-from codewalk.results import (
-    append_to_list, call, call_on_top, call_with_rows, copy_top, cut_off, extend_list, flip, get_attribute,
-    get_element, get_iterator, get_slice, get_source, give, make_dict, make_dict_by_keys, make_function, make_list,
-    make_tuple, make_tuple_of_list, merge, operate_on_one, operate_on_two, put_value, store_name, to_bool,
-)
+from codewalk.results import call, call_on_top, call_with_rows, get_attribute, give, make_function, store_name
 from codewalk.shapes import are_constants, constants_of, has_slice, has_stars
+from codewalk.stacks import (
+    append_to_list, build_dict, build_dict_by_keys, build_list, build_tuple, change_kind, copy_entry, cut_off,
+    extend_list, get_element, get_iterator, get_slice, get_source, invert, invert_bool, merge, negate, operate_on_two,
+    put_value, to_bool,
+)
+
+# What makes a tuple of a list.
+TO_TUPLE = 6
 
 
 def to(node):
@@ -33,14 +37,14 @@ def evaluate_name(walker, frame, node):
 def evaluate_tuple(walker, frame, node):
     row = node[1]
     if has_stars(row):
-        push(frame, [*tasks_with_stars(row), (make_tuple_of_list, None)])
+        push(frame, [*tasks_with_stars(row), (change_kind, TO_TUPLE)])
     else:
-        push(frame, [*all_of(row), (make_tuple, len(row))])
+        push(frame, [*all_of(row), (build_tuple, len(row))])
 
 
 def evaluate_list(walker, frame, node):
     row = node[1]
-    push(frame, tasks_with_stars(row) if has_stars(row) else [*all_of(row), (make_list, len(row))])
+    push(frame, tasks_with_stars(row) if has_stars(row) else [*all_of(row), (build_list, len(row))])
 
 
 def tasks_with_stars(row):
@@ -48,24 +52,24 @@ def tasks_with_stars(row):
     ahead = 0
     while row[ahead][0] != "Starred":
         ahead += 1
-    tasks = [*all_of(row[:ahead]), (make_list, ahead)]
+    tasks = [*all_of(row[:ahead]), (build_list, ahead)]
     for node in row[ahead:]:
         if node[0] == "Starred":
-            tasks.extend([to(node[1]), (extend_list, None)])
+            tasks.extend([to(node[1]), (extend_list, 1)])
         else:
-            tasks.extend([to(node), (append_to_list, None)])
+            tasks.extend([to(node), (append_to_list, 1)])
     return tasks
 
 
 def evaluate_dict(walker, frame, node):
     _, keys, values = node
     if len(keys) > 1 and are_constants(keys):
-        push(frame, [*all_of(values), (make_dict_by_keys, constants_of(keys))])
+        push(frame, [*all_of(values), (put_value, constants_of(keys)), (build_dict_by_keys, len(keys))])
         return
     tasks = []
     for key, value in zip(keys, values):
         tasks.extend([to(key), to(value)])
-    push(frame, [*tasks, (make_dict, len(keys))])
+    push(frame, [*tasks, (build_dict, len(keys))])
 
 
 def evaluate_binary(walker, frame, node):
@@ -73,7 +77,11 @@ def evaluate_binary(walker, frame, node):
 
 
 def evaluate_unary(walker, frame, node):
-    push(frame, [to(node[2]), (operate_on_one, node[1])])
+    _, op, value = node
+    if op == "not":
+        push(frame, [to(value), (to_bool, None), (invert_bool, None)])
+    else:
+        push(frame, [to(value), (negate if op == "-" else invert, None)])
 
 
 def evaluate_junction(walker, frame, node):
@@ -101,7 +109,7 @@ def compare(walker, frame, part):
     """Compare two values, and the second one with the next one if that holds."""
     node, at = part
     _, _, ops, values = node
-    left, right = cut_off(frame, 2)
+    left, right = cut_off(frame.stack, 2)
     found = compared(walker, ops[at], left, right)
     if at == len(ops) - 1 or not found:
         frame.stack.append(found)
@@ -140,7 +148,7 @@ def place_of(node):
 
 
 def evaluate_named(walker, frame, node):
-    push(frame, [to(node[2]), (copy_top, None), (store_name, node[1])])
+    push(frame, [to(node[2]), (copy_entry, 1), (store_name, node[1])])
 
 
 def evaluate_lambda(walker, frame, node):
@@ -177,7 +185,7 @@ def evaluate_call(walker, frame, node):
         row = to(arguments[0][1])
     else:
         row = (evaluate_tuple, ("Tuple", arguments))
-    push(frame, [to(function), row, (make_dict, 0), *tasks_of_keywords(keywords), (call_with_rows, None)])
+    push(frame, [to(function), row, (build_dict, 0), *tasks_of_keywords(keywords), (call_with_rows, None)])
 
 
 def tasks_of_keywords(keywords):
@@ -193,8 +201,9 @@ def tasks_of_keywords(keywords):
             end = at + 1
         else:
             tasks.extend(all_of([value for _, value in keywords[at:end]]))
-            tasks.append((make_dict_by_keys, tuple([name for name, _ in keywords[at:end]])))
-        tasks.append((merge, None))
+            names = tuple([name for name, _ in keywords[at:end]])
+            tasks.extend([(put_value, names), (build_dict_by_keys, len(names))])
+        tasks.append((merge, 1))
         at = end
     return tasks
 
@@ -216,7 +225,7 @@ def test_value(walker, frame, node):
 
 
 def test_negation(walker, frame, node):
-    push(frame, [test(node[2]), (flip, None)])
+    push(frame, [test(node[2]), (invert_bool, None)])
 
 
 def test_junction(walker, frame, part):

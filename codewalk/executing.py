@@ -6,8 +6,9 @@ from codewalk.calling import make_class
 from codewalk.evaluating import all_of, function_of, test, to
 from codewalk.going import next_of
 from codewalk.outlines import push, store
-from codewalk.results import call_on_top, copy_top, cut_off, drop, get_iterator, make_function, store_name
+from codewalk.results import call_on_top, make_function, store_name
 from codewalk.shapes import is_constant
+from codewalk.stacks import copy_entry, cut_off, get_iterator, pop_top
 
 
 def body_of(row):
@@ -18,7 +19,7 @@ def body_of(row):
 def execute_expr(walker, frame, node):
     walker.tell(frame, node[1])
     if not is_constant(node[2]):
-        push(frame, [to(node[2]), (drop, None)])
+        push(frame, [to(node[2]), (pop_top, None)])
 
 
 def execute_assign(walker, frame, node):
@@ -26,7 +27,7 @@ def execute_assign(walker, frame, node):
     walker.tell(frame, line)
     tasks = [to(value)]
     for target in targets[:-1]:
-        tasks.extend([(copy_top, None), (assign, target)])
+        tasks.extend([(copy_entry, 1), (assign, target)])
     push(frame, [*tasks, (assign, targets[-1])])
 
 
@@ -191,7 +192,7 @@ def enter(walker, frame, part):
     block = Context(frame, line)
     frame.stack.append(value)
     target = items[at][1]
-    tasks = [(drop, None) if target is None else (assign, target)]
+    tasks = [(pop_top, None) if target is None else (assign, target)]
     if at + 1 < len(items):
         tasks.extend([to(items[at + 1][0]), (enter, (items, at + 1, line, body))])
     else:
@@ -207,7 +208,7 @@ def execute_function(walker, frame, node):
 
 def stored(name, decorators):
     """The tasks that call decorators below what they decorate, and store it."""
-    return [*[(call_on_top, None)] * len(decorators), (store_name, name)]
+    return [(call_on_top, None)] * len(decorators) + [(store_name, name)]
 
 
 def execute_class(walker, frame, node):
@@ -220,7 +221,7 @@ def execute_class(walker, frame, node):
 def build(walker, frame, part):
     """Make a class of the function of its body, which lies below its bases."""
     name, many = part
-    body, *bases = cut_off(frame, many + 1)
+    body, *bases = cut_off(frame.stack, many + 1)
     frame.stack.append(make_class(walker, None, [body, name, *bases]))
 
 

@@ -4,9 +4,10 @@ An ACTION takes the machine, the frame and the argument made ready; the frame st
 """
 
 from codewalk.effects import Null
-from codewalk.going import iterator_of, next_of, sent
+from codewalk.going import next_of, sent
 from codewalk.plain import plain
-from codewalk.values import Cell, ENDED, Function, Generator, NEW, Nothing, RESTS, Raised
+from codewalk.stacks import get_iterator, get_source
+from codewalk.values import Cell, ENDED, Function, NEW, Nothing, RESTS, Raised
 
 
 def load_fast(machine, frame, argument):
@@ -161,16 +162,6 @@ def jump_if_none(machine, frame, argument):
 def jump_if_not_none(machine, frame, argument):
     if frame.stack.pop() is not None:
         frame.at = argument
-
-
-def get_iterator(machine, frame, argument):
-    frame.stack.append(iterator_of(machine, frame.stack.pop()))
-
-
-def get_source(machine, frame, argument):
-    """Take a generator as it is, and an iterator of all else."""
-    if not isinstance(frame.stack[-1], Generator):
-        get_iterator(machine, frame, argument)
 
 
 def turn(machine, frame, argument):

@@ -28,10 +28,12 @@ def make_range(world, owner, values):
     for value in values:
         if not isinstance(value, int):
             world.fail("TypeError")
-    first, end, step = (0, values[0], 1) if len(values) == 1 else (*values, 1)[:3]
+    first = int(values[0]) if len(values) > 1 else 0
+    end = int(values[1]) if len(values) > 1 else int(values[0])
+    step = int(values[2]) if len(values) > 2 else 1
     if step == 0:
         world.fail("ValueError")
-    return Range(int(first), int(end), int(step))
+    return Range(first, end, step)
 
 
 def make_iterator(world, owner, values):

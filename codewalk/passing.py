@@ -94,7 +94,8 @@ class Passing:
             _, _, target, depth, wanted = handler
             if kept < depth:
                 return "depth"
-            if not self.lead(case.places[target], [*entries[:depth], *(("offset",) if wanted else ()), "exception"]):
+            caught = entries[:depth] + (["offset", "exception"] if wanted else ["exception"])
+            if not self.lead(case.places[target], caught):
                 return "meet"
         if at + 1 < len(case.words) and self.meeting[at + 1] and word not in LEAVING and not self.lead(at + 1, entries):
             return "meet"

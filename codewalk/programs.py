@@ -119,7 +119,7 @@ class Frame:
         self.stack = []
         # The number of the next instruction.
         self.at = 0
-        self.locals = [*values, *[Nothing()] * (len(plan.code.slots) - len(values))]
+        self.locals = list(values) + [Nothing()] * (len(plan.code.slots) - len(values))
         self.names = names
         self.cells = cells
         self.told = None

@@ -9,7 +9,8 @@ from codewalk.executing import body_of, give_back
 from codewalk.going import iterator_of, next_of
 from codewalk.names import special
 from codewalk.outlines import load_name, push
-from codewalk.results import cut_off, drop, give, put_value
+from codewalk.results import give
+from codewalk.stacks import cut_off, pop_top, put_value
 from codewalk.values import Dict, List
 
 
@@ -33,7 +34,7 @@ def begin(walker, frame):
     tasks = []
     if frame.plan.flags & GENERATOR:
         # What is sent first.
-        tasks.append((drop, None))
+        tasks.append((pop_top, None))
     if scope.word == "lambda":
         tasks.extend([(tell_begin, None), to(scope.content), (give_back, None)])
     elif scope.is_comprehension():
@@ -100,7 +101,7 @@ def add(walker, frame, word):
     if word == "list":
         frame.stack[0].row.append(frame.stack.pop())
     elif word == "dict":
-        key, value = cut_off(frame, 2)
+        key, value = cut_off(frame.stack, 2)
         put_pair(walker, frame.stack[0], key, value)
     else:
-        push(frame, [(give, None), (drop, None)])
+        push(frame, [(give, None), (pop_top, None)])

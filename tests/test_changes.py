@@ -383,9 +383,10 @@ class RenamedTests(unittest.TestCase):
         for thing in [None, [], [("Pass", 0)], 5]:
             with self.assertRaises(NoTree):
                 renamed(thing, None, None, None)
-        with self.assertRaises(NoProgram) as caught:
-            renamed(tree_of("nonlocal x"), None, None, None)
-        self.assertEqual((caught.exception.line, caught.exception.why), (1, "outside"))
+        for source, word in (("nonlocal x", "outside"), ("break", "break"), ("return", "return"), ("def f():\n    continue", "continue")):
+            with self.assertRaises(NoProgram) as caught:
+                renamed(tree_of(source), None, None, None)
+            self.assertEqual(caught.exception.why, word)
 
     def test_random_programs(self):
         pick, told, back = numbers(104), 0, 0
