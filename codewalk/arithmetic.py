@@ -43,10 +43,15 @@ def repeated(world, left, right):
     if not isinstance(many, int):
         world.fail("TypeError")
     if isinstance(row, List):
-        return List(row.row * many)
+        return List(row.row * times_of(row.row, many))
     if not isinstance(row, (str, tuple)):
         world.fail("TypeError")
-    return row * many
+    return row * times_of(row, many)
+
+
+def times_of(row, many):
+    """How many times a row is repeated; Python refuses numbers that are too large, even where they do not matter."""
+    return many if many > 0 and len(row) > 0 else 0
 
 
 def merged(world, held, other):
@@ -68,7 +73,7 @@ def extended(world, held, other):
 def multiplied(world, held, other):
     if not isinstance(other, int):
         world.fail("TypeError")
-    held.row[:] = held.row * other
+    held.row[:] = held.row * times_of(held.row, other)
     return held
 
 

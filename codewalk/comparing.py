@@ -30,13 +30,13 @@ def equal(one, other):
     waiting = [(one, other)]
     while waiting:
         one, other = waiting.pop()
+        # Objects are equal to themselves here, so what is one object, or made of such alone, need not be gone into.
+        if one == other:
+            continue
         if isinstance(one, (tuple, List)):
             if not are_rows_alike(one, other, waiting):
                 return False
-        elif isinstance(one, Dict):
-            if not isinstance(other, Dict) or not are_dicts_alike(one, other, waiting):
-                return False
-        elif one != other:
+        elif not isinstance(one, Dict) or not isinstance(other, Dict) or not are_dicts_alike(one, other, waiting):
             return False
     return True
 
@@ -67,17 +67,8 @@ def are_dicts_alike(one, other, waiting):
 
 
 def identical(one, other):
-    """Whether two values are one object; of integers, strings and tuples, equal ones of one kind are."""
-    waiting = [(one, other)]
-    while waiting:
-        one, other = waiting.pop()
-        if isinstance(one, tuple):
-            if not isinstance(other, tuple) or len(one) != len(other):
-                return False
-            waiting.extend(list(zip(one, other)))
-        elif isinstance(one, bool) != isinstance(other, bool) or one != other:
-            return False
-    return True
+    """Whether two values are one object; of integers, strings and tuples of one object each, equal ones are."""
+    return isinstance(one, bool) == isinstance(other, bool) and one == other
 
 
 def ordered(world, op, one, other):

@@ -157,10 +157,10 @@ def look_at_handler(walker, frame, part):
     if kind is None:
         enter_handler(walker, frame, handlers[at])
     else:
-        push(frame, [to(kind), (match, part)])
+        push(frame, [to(kind), (look_whether_caught, part)])
 
 
-def match(walker, frame, part):
+def look_whether_caught(walker, frame, part):
     handlers, at = part
     if walker.is_caught(walker.handled.fault, frame.stack.pop()):
         enter_handler(walker, frame, handlers[at])

@@ -137,6 +137,18 @@ class EqualityTests(ValuesTests):
         """
         self.tells(source, (True, True, False, 5))
 
+    def test_values_that_are_many_times_in_themselves(self):
+        source = """
+            def many(x):
+                for k in range(60):
+                    x = {}
+                return x
+            x = many(1)
+            tell(x == x, [x] == [x], x != x, x in [0, x], (x, 1) < (x, 2), x is x, {{0: x}} == {{0: x}})
+        """
+        for more in ("[x, x]", "(x, x)", "{{0: x, 1: x}}", "[(x,), {{1: x}}]"):
+            self.tells(source.format(more.replace("{{", "{").replace("}}", "}")), (True, True, False, True, True, True, True))
+
     def test_identity(self):
         for held in ("None", "True", "False", "xs", "d", "a", "len", "Plain", "f"):
             self.is_value(f"[{held} is {held}, {held} is not {held}]", ("list", True, False),
@@ -265,6 +277,7 @@ class ArithmeticTests(ValuesTests):
         for expression, due in (
             ('"ab" + "c"', "abc"), ("(1,) + (2, 3)", ("tuple", 1, 2, 3)), ("[1] + [[]]", ("list", 1, ("list",))),
             ('"ab" * 2', "abab"), ('2 * "ab"', "abab"), ('"ab" * 0', ""), ('"ab" * -1', ""), ('"ab" * True', "ab"),
+            ("[] * 10 ** 30", ("list",)), ('"" * 10 ** 30', ""), ("10 ** 30 * ()", ("tuple",)), ("[1] * -10 ** 30", ("list",)), ("-10 ** 30 * (1,)", ("tuple",)),
             ("(1,) * 2", ("tuple", 1, 1)), ("False * (1,)", ("tuple",)), ("[1, 2] * 2", ("list", 1, 2, 1, 2)),
             ("3 * []", ("list",)), ("{1: 2, 3: 4} | {5: 6, True: 0}", ("dict", (1, 0), (3, 4), (5, 6))), ("{} | {}", ("dict",)),
         ):
@@ -303,7 +316,7 @@ class InPlaceTests(ValuesTests):
             ("a += [2]", ("list", 1, 2)), ("a += (2, 3)", ("list", 1, 2, 3)), ('a += "xy"', ("list", 1, "x", "y")),
             ("a += {5: 6}", ("list", 1, 5)), ("a += range(2)", ("list", 1, 0, 1)), ("a += a", ("list", 1, 1)),
             ("a += Three()", ("list", 1, 1, 2, 3)), ("a += (x for x in [7])", ("list", 1, 7)), ("a *= 2", ("list", 1, 1)),
-            ("a *= 0", ("list",)), ("a *= -1", ("list",)), ("a *= True", ("list", 1)),
+            ("a *= 0", ("list",)), ("a *= -1", ("list",)), ("a *= True", ("list", 1)), ("a *= -10 ** 30", ("list",)),
         ):
             self.tells(CLASSES + f"a = [1]\nb = a\n{change}\ntell(a is b, b)", (True, due))
 
