@@ -20,7 +20,7 @@ class Look:
         # What has been put off, as a tuple of a look function and a node, or None.
         self.deep = None
         # The lines behind the nodes that lie too deep and are known to be right; how many of these have been passed.
-        self.lines = []
+        self.lines = ()
         self.passed = 0
 
     def put_off(self, look_at, node):
@@ -78,13 +78,14 @@ def look_from(begin, look):
 
 def is_named(name, look):
     """Whether an object is a name."""
-    if not isinstance(name, str):
+    return isinstance(name, str) and name in look.names or is_new_name(name, look)
+
+
+def is_new_name(name, look):
+    """Whether an object that has not been met yet is a name; names come again and again."""
+    if not is_name(name):
         return False
-    if name not in look.names:
-        if not is_name(name):
-            return False
-        # Names come again and again.
-        look.names[name] = True
+    look.names[name] = True
     return True
 
 

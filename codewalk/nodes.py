@@ -1,6 +1,6 @@
 """Which expressions and targets are right. What a LOOK function is, `looking.py` tells."""
 
-from codewalk.looking import are_tuples, has_names, is_named
+from codewalk.looking import are_tuples, has_names, is_named, is_new_name
 
 OPERATORS = {
     "+": True, "-": True, "*": True, "//": True, "mod": True, "**": True, "<<": True, ">>": True, "&": True,
@@ -20,8 +20,8 @@ def look_at_expression(node, look, room):
     if word == "Name":
         if len(node) == 2:
             name = node[1]
-            # A dict knows the names that have been looked at sooner than a call.
-            if isinstance(name, str) and name in look.names or is_named(name, look):
+            # This is `is_named`, without a call where there are most names.
+            if isinstance(name, str) and name in look.names or is_new_name(name, look):
                 return None
         return []
     if word == "Constant":
@@ -303,7 +303,7 @@ def look_at_target(node, look, room):
     if word == "Name":
         if len(node) == 2:
             name = node[1]
-            if isinstance(name, str) and name in look.names or is_named(name, look):
+            if isinstance(name, str) and name in look.names or is_new_name(name, look):
                 return None
         return []
     if not isinstance(word, str) or word not in TARGETS:
