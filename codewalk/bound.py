@@ -1,38 +1,39 @@
 """The checks of the flow: which locals may have no value where they are loaded.
 
 A set of names is an integer with a bit for each of them. The rows are gone through from the begin to the end, again and
-again, as long as there are some at which fewer names are bound than they were the last time.
+again, as long as there are labels at which fewer names are bound than they were when they were passed.
 """
 
 from codewalk.slots import parameters_of
-from codewalk.ways import places_of
-from codewalk.words import LEADING, LEAVING, QUIET
+from codewalk.words import LEADING, LEAVING, QUIET, TURNING
 
 # The words behind which a local is bound that was not, or the other way round.
 CHANGING = {"DELETE_FAST": True, "LOAD_FAST": True, "LOAD_FAST_CHECK": True, "STORE_FAST": True}
 
 
-def with_checks(rows, head):
-    """The rows with LOAD_FAST_CHECK for each LOAD_FAST of a name that is not surely bound there."""
-    bits = bits_of(rows, head)
+def with_checks(rows, head, words):
+    """The rows, which have these words, with LOAD_FAST_CHECK for each LOAD_FAST of a name not surely bound there."""
+    if "LOAD_FAST" not in words:
+        return rows
+    bits = bits_of(rows, head, words)
     if not bits:
         return rows
-    bound = Bound(rows, bits)
-    bound.tell(0, sum([bits[name] for name in parameters_of(head) if name in bits]))
-    while bound.sweep():
-        pass
-    found = []
-    for at, row in enumerate(rows):
-        if row[0] == "LOAD_FAST" and bound.lacks(at, row[1]):
-            row = ("LOAD_FAST_CHECK", row[1], row[2], row[3])
-        found.append(row)
+    bound = Bound(bits)
+    first = sum([bits[name] for name in parameters_of(head) if name in bits])
+    bound.sweep(rows, first)
+    while bound.is_stale():
+        bound.sweep(rows, first)
+    found = list(rows)
+    for at in bound.lacking:
+        _, name, line, handler = rows[at]
+        found[at] = ("LOAD_FAST_CHECK", name, line, handler)
     return found
 
 
-def bits_of(rows, head):
+def bits_of(rows, head, words):
     """A bit for each name that is loaded, but for cells and free names, and parameters that are never deleted."""
     passed = {name: True for name in [*head[5], *head[6]]}
-    deleted = {row[1]: True for row in rows if row[0] == "DELETE_FAST"}
+    deleted = {row[1]: True for row in rows if row[0] == "DELETE_FAST"} if "DELETE_FAST" in words else {}
     for name in parameters_of(head):
         if name not in deleted:
             passed[name] = True
@@ -44,54 +45,53 @@ def bits_of(rows, head):
 
 
 class Bound:
-    """The names that are bound at each row, as far as the ways are known: None where no way has led yet."""
+    """The names that are bound at each label, as far as the ways are known."""
 
-    def __init__(self, rows, bits):
-        self.rows = rows
+    def __init__(self, bits):
         self.bits = bits
-        self.places = places_of(rows)
-        self.names = [None] * len(rows)
-        # The rows that are to be gone through again.
-        self.waiting = [False] * len(rows)
+        # Those that are bound on all ways that are known to lead to a label.
+        self.names = {}
+        # Those that were, when the label was passed last.
+        self.passed = {}
+        # The indexes of the rows that load what is not surely bound.
+        self.lacking = []
 
-    def tell(self, at, names):
-        """Tell that a way leads to a row with just these names bound; whether that is news."""
-        before = self.names[at]
-        if before is not None:
-            names &= before
-            if names == before:
-                return False
-        self.names[at] = names
-        self.waiting[at] = True
-        return True
+    def is_stale(self):
+        """Whether there is news for labels that have been passed by now."""
+        return any([names != self.passed[label] for label, names in self.names.items()])
 
-    def sweep(self):
-        """Go once through the rows; whether there is news for rows that have been passed by then."""
-        again = False
-        for at, row in enumerate(self.rows):
-            if not self.waiting[at]:
-                continue
-            self.waiting[at] = False
-            names = self.names[at]
+    def sweep(self, rows, names):
+        """Go once through the rows, with these names bound at the begin; they are None where no way has led yet."""
+        self.lacking = []
+        for at, row in enumerate(rows):
             word, argument, _, handler = row
-            if handler is not None and (word not in QUIET or (word == "LOAD_FAST" and self.lacks(at, argument))):
-                again = self.lead_to(handler[0], names, at) or again
+            if word == "LABEL":
+                names = self.pass_label(argument, names)
+            if names is None or word == "LABEL":
+                continue
+            ahead = names
             if word in CHANGING and argument in self.bits:
                 bit = self.bits[argument]
+                if word == "LOAD_FAST" and not names & bit:
+                    self.lacking.append(at)
+                    # It may raise an exception.
+                    word = "LOAD_FAST_CHECK"
                 names = names & ~bit if word == "DELETE_FAST" else names | bit
-            if word in LEADING:
-                again = self.lead_to(argument, names, at) or again
-            if word not in LEAVING:
-                self.tell(at + 1, names)
-        return again
+            if handler is not None and word not in QUIET:
+                self.lead_to(handler[0], ahead)
+            if word in TURNING:
+                if word in LEADING:
+                    self.lead_to(argument, names)
+                if word in LEAVING:
+                    names = None
 
-    def lead_to(self, label, names, source):
-        """Tell the row at a label what is bound; whether that is news, and the row has been passed."""
-        at = self.places[label]
-        return self.tell(at, names) and at <= source
+    def pass_label(self, label, names):
+        """What is bound behind a label, with these names bound ahead of it."""
+        if names is not None:
+            self.lead_to(label, names)
+        self.passed[label] = self.names.get(label)
+        return self.passed[label]
 
-    def lacks(self, at, name):
-        """Whether a name is not surely bound at a row."""
-        if name not in self.bits or self.names[at] is None:
-            return False
-        return self.names[at] & self.bits[name] == 0
+    def lead_to(self, label, names):
+        """Tell that a way leads to a label with just these names bound."""
+        self.names[label] = self.names[label] & names if label in self.names else names

@@ -5,7 +5,7 @@ from codewalk.handlers import with_handlers
 from codewalk.placing import with_cold_last, with_lines
 from codewalk.rounds import rounds
 from codewalk.slots import numbers_of
-from codewalk.ways import places_of
+from codewalk.ways import words_in
 
 MOST_IN_PAIRS = 16
 
@@ -21,60 +21,74 @@ OPPOSITES = {
 
 def flowed(rows, head, passes=True):
     """The rows of a code as tuples (word, argument, line, handler), in their final form."""
-    found = with_handlers(rows)
+    words = words_in(rows)
+    found = with_handlers(rows, words)
     if passes:
-        found = rounds(found)
-    found = with_lines(found)
+        found = rounds(found, words)
+        # A word may have come or gone.
+        words = words_in(found)
+    found = with_lines(found, words)
     if passes:
-        found = with_cold_last(found)
-    found = with_checks(found, head)
+        found = with_cold_last(found, words)
+    found = with_checks(found, head, words)
     if passes:
-        found = with_pairs(found, head)
-    return with_directions(found)
+        found = with_pairs(found, head, words)
+    return with_directions(found) if "LABEL" in words else found
 
 
-def with_pairs(rows, head):
-    """The rows, with loads and stores of locals taken together two by two."""
-    numbers = numbers_of(rows, head)
+def with_pairs(rows, head, words):
+    """The rows, which have these words, with loads and stores of locals taken together two by two."""
+    if "LOAD_FAST" not in words and "STORE_FAST" not in words:
+        return rows
+    numbers = {}
     found = []
     for row in rows:
-        if found and (row[0] == "LOAD_FAST" or row[0] == "STORE_FAST"):
-            pair = pair_of(found[-1], row, numbers)
-            if pair is not None:
-                found[-1] = pair
+        word = row[0]
+        if (word == "LOAD_FAST" or word == "STORE_FAST") and found and are_alike(found[-1], row):
+            numbers = numbers or numbers_of(rows, head)
+            first, name, line, handler = found[-1]
+            if numbers[name] < MOST_IN_PAIRS and numbers[row[1]] < MOST_IN_PAIRS:
+                found[-1] = (f"{first}_{word}", (name, row[1]), line, handler)
                 continue
         found.append(row)
     return found
 
 
-def pair_of(ahead, row, numbers):
-    """The row that does what a row and the load or the store behind it do, or None."""
-    first, name, line, handler = ahead
-    second, other, _, _ = row
-    if first != "STORE_FAST" and (first != "LOAD_FAST" or second != "LOAD_FAST"):
-        return None
-    if row[2] != line or row[3] != handler or max(numbers[name], numbers[other]) >= MOST_IN_PAIRS:
-        return None
-    return (f"{first}_{second}", (name, other), line, handler)
+def are_alike(ahead, row):
+    """Whether a load or store may be taken together with the row ahead of it, if their numbers are small enough."""
+    word = ahead[0]
+    if word != "STORE_FAST" and (word != "LOAD_FAST" or row[0] != "LOAD_FAST"):
+        return False
+    return ahead[2] == row[2] and ahead[3] == row[3]
 
 
 def with_directions(rows):
     """The rows, with jumps that tell whether they lead forward or backward."""
-    places = places_of(rows)
-    free = 0
-    found = []
+    places = {}
+    jumps = []
     for at, row in enumerate(rows):
-        word, label, line, handler = row
+        word = row[0]
+        if word == "LABEL":
+            places[row[1]] = at
+        elif word in DIRECTIONS or word in OPPOSITES:
+            jumps.append(at)
+    found = []
+    done = 0
+    free = 0
+    for at in jumps:
+        word, label, line, handler = rows[at]
+        found.extend(rows[done:at])
+        done = at + 1
         if word in DIRECTIONS:
             forward, backward = DIRECTIONS[word]
             found.append((forward if places[label] > at else backward, label, line, handler))
-        elif word in OPPOSITES and places[label] < at:
+        elif places[label] > at:
+            found.append(rows[at])
+        else:
             while free in places:
                 free += 1
             found.append((OPPOSITES[word], free, line, handler))
             found.append(("JUMP_BACKWARD", label, line, handler))
             found.append(("LABEL", free, None, None))
             free += 1
-        else:
-            found.append(row)
-    return found
+    return found + rows[done:]

@@ -1,13 +1,14 @@
-"""Steps of the flow: lines for artificial rows, and cold rows at the end."""
+"""Steps of the flow: lines for artificial rows, and cold rows at the end. The words passed are those of the rows."""
 
-from codewalk.rounds import cleared
+from codewalk.rounds import cleared, without_nops
 from codewalk.ways import places_of, reached
 from codewalk.words import LEADING, LEAVING
 
 
-def with_lines(rows):
+def with_lines(rows, words):
     """The rows, the artificial ones with the line of the only row that leads to them, if that has one."""
-    sources = sources_of(rows)
+    bare = [at for at, row in enumerate(rows) if row[2] is None and at > 0 and row[0] != "LABEL"]
+    sources = sources_of(rows, bare) if "LABEL" in words else {at: at - 1 for at in bare}
     if not sources:
         return rows
     lines = {}
@@ -20,30 +21,30 @@ def with_lines(rows):
         line = lines[source] if source in lines else rows[source][2]
         for passed in path:
             lines[passed] = line
-    return [(row[0], row[1], lines[at], row[3]) if at in lines else row for at, row in enumerate(rows)]
+    found = list(rows)
+    for at, line in lines.items():
+        word, argument, _, handler = rows[at]
+        found[at] = (word, argument, line, handler)
+    return found
 
 
-def sources_of(rows):
-    """For artificial rows the index of the only row that leads to them, where there is just one."""
+def sources_of(rows, bare):
+    """For artificial rows, of which all are given but a first one, the row that leads to each, where it is just one."""
     sources = {}
-    # The artificial rows behind labels: these, and the row ahead if it goes on.
+    # Those behind labels: these, and the row ahead if it goes on.
     behind = {}
-    ahead = None
-    labels = []
-    for at, row in enumerate(rows):
-        if row[0] == "LABEL":
-            labels.append(row[1])
-            continue
-        if row[2] is None:
-            goes_on = ahead is None or rows[ahead][0] not in LEAVING
-            if labels:
-                # The begin is a way, too, although it has no line.
-                behind[at] = (labels, [ahead] if goes_on else [])
-            elif goes_on and ahead is not None:
-                sources[at] = ahead
-        ahead = at
+    for at in bare:
+        labels = []
+        ahead = at - 1
+        while ahead >= 0 and rows[ahead][0] == "LABEL":
+            labels.append(rows[ahead][1])
+            ahead -= 1
+        goes_on = ahead < 0 or rows[ahead][0] not in LEAVING
         if labels:
-            labels = []
+            # The begin is a way, too, although it has no line.
+            behind[at] = (labels, [ahead] if goes_on else [])
+        elif goes_on:
+            sources[at] = ahead
     return {**sources, **sources_at_labels(rows, behind)} if behind else sources
 
 
@@ -54,7 +55,7 @@ def sources_at_labels(rows, behind):
     sources = {}
     for at, (labels, ways) in behind.items():
         ways = ways + [source for label in labels for source in leads.get(label, ())]
-        if len(ways) == 1 and ways[0] is not None and not any([label in caught for label in labels]):
+        if len(ways) == 1 and ways[0] >= 0 and not any([label in caught for label in labels]):
             sources[at] = ways[0]
     return sources
 
@@ -68,12 +69,20 @@ def leads_of(rows):
     return leads
 
 
-def with_cold_last(rows):
+def with_cold_last(rows, words):
     """The rows, those that are reached by exceptions alone at the end."""
-    warm = warm_rows(rows)
-    if all(warm):
-        found, _ = cleared(rows)
-        return found
+    guarded = "LABEL" in words and any([row[3] is not None for row in rows])
+    warm = warm_rows(rows) if guarded else []
+    if not all(warm):
+        return cleared(moved_back(rows, warm))
+    if "NOP" not in words:
+        return rows
+    found, _ = without_nops(rows)
+    return found
+
+
+def moved_back(rows, warm):
+    """The rows, the cold ones behind the warm ones."""
     places = places_of(rows)
     kept = []
     cold = []
@@ -88,13 +97,12 @@ def with_cold_last(rows):
         # A warm row that follows a cold one is reached by a jump, so it has a label.
         if word not in LEAVING and warm[at + 1]:
             cold.append(("JUMP_NO_INTERRUPT", rows[at + 1][1], line, handler))
-    found, _ = cleared(kept + cold)
-    return found
+    return kept + cold
 
 
 def warm_rows(rows):
     """For each row whether it is reached without exceptions; a label is what the row behind it is."""
-    warm = reached(rows, False)
+    warm = reached(rows, {}, False)
     for at in range(len(rows) - 2, -1, -1):
         if rows[at][0] == "LABEL":
             warm[at] = warm[at + 1]

@@ -1,10 +1,15 @@
 """The rounds of the flow, which make rows fewer until one changes nothing.
 
-The functions for single rules change the list of rows that they are given, and tell whether they have.
+The functions for single rules change the list of rows that they are given, and tell what they have changed.
 """
 
 from codewalk.ways import without_unreached
 from codewalk.words import LEAVING
+
+# What has been changed: nothing, rows that go on to the next one as before, or where rows lead.
+NOTHING = 0
+ROWS = 1
+WAYS = 2
 
 JUMPS = {"JUMP": True, "JUMP_NO_INTERRUPT": True}
 THREADED = {
@@ -13,35 +18,48 @@ THREADED = {
 }
 
 
-def rounds(rows):
-    """The rows behind the last of the rounds."""
+def rounds(rows, words):
+    """The rows behind the last of the rounds; the words are those that there were at first."""
+    if "LABEL" in words:
+        return rounds_with_labels(rows)
+    changes = combine(rows)
+    if "NOP" in words:
+        changes |= ROWS
+    while changes:
+        rows, _ = without_nops(rows)
+        changes = combine(rows)
+    return rows
+
+
+def rounds_with_labels(rows):
+    """The same for rows with labels, all of which are reached at first."""
+    loose = False
     changed = True
     while changed:
         before = len(rows)
-        rows = list(rows)
-        combined = combine(rows)
-        threaded = thread(rows)
-        rows, dropped = cleared(rows)
-        changed = combined or threaded or dropped or len(rows) < before
+        changes = combine(rows) | turn_jumps(rows)
+        if loose or changes & WAYS:
+            rows = without_unreached(rows)
+        rows, loose = without_nops(rows)
+        changed = changes != NOTHING or len(rows) < before
     return rows
 
 
 def cleared(rows):
-    """The rows without needless jumps, rows and NOPs, and whether a jump has become a NOP."""
-    rows = list(rows)
-    changed = drop_jumps(rows)
-    return (without_nops(without_unreached(rows)), changed)
+    """The rows without needless jumps, rows and NOPs."""
+    drop_jumps(rows, jumps_in(rows))
+    found, _ = without_nops(without_unreached(rows))
+    return found
 
 
 def combine(rows):
-    """At each row, take it together with the ones behind it as long as a rule fits."""
-    changed = False
-    for at in range(len(rows) - 1):
-        action = RULES.get(rows[at][0])
-        while action is not None and action(rows, at):
-            changed = True
-            action = RULES.get(rows[at][0])
-    return changed
+    """Take each row together with the one ahead of it where a rule fits."""
+    changes = NOTHING
+    for at, word in enumerate([row[0] for row in rows]):
+        if word in RULES and at > 0:
+            action = RULES[word]
+            changes |= action(rows, at)
+    return changes
 
 
 def blank(rows, at):
@@ -50,98 +68,113 @@ def blank(rows, at):
     rows[at] = ("NOP", None, line, handler)
 
 
-def combine_constant(rows, at):
-    constant = rows[at][1]
-    word, argument, line, handler = rows[at + 1]
-    if word == "TO_BOOL":
+def combine_truth(rows, at):
+    """Take TO_BOOL together with a constant, or with what is a bool anyway."""
+    word, argument, line, handler = rows[at - 1]
+    if word == "LOAD_CONST":
+        _, _, told, guard = rows[at]
+        blank(rows, at - 1)
+        rows[at] = ("LOAD_CONST", bool(argument), told, guard)
+    elif word == "COMPARE_OP":
+        rows[at - 1] = (word, (argument[0], True), line, handler)
         blank(rows, at)
-        rows[at + 1] = ("LOAD_CONST", bool(constant), line, handler)
-    elif word == "POP_JUMP_IF_FALSE" or word == "POP_JUMP_IF_TRUE":
+    elif word in BOOLS:
         blank(rows, at)
-        if bool(constant) == (word == "POP_JUMP_IF_TRUE"):
-            rows[at + 1] = ("JUMP", argument, line, handler)
-        else:
-            blank(rows, at + 1)
-    elif word == "RETURN_VALUE":
-        first = rows[at][2]
-        blank(rows, at)
-        rows[at + 1] = ("RETURN_CONST", constant, first if line is None else line, handler)
     else:
-        return constant is None and word == "IS_OP" and combine_none(rows, at)
-    return True
+        return NOTHING
+    return ROWS
+
+
+def combine_jump(rows, at):
+    """Take a jump by the truth of a constant together with this."""
+    if rows[at - 1][0] != "LOAD_CONST":
+        return NOTHING
+    word, argument, line, handler = rows[at]
+    jumps = bool(rows[at - 1][1]) == (word == "POP_JUMP_IF_TRUE")
+    blank(rows, at - 1)
+    rows[at] = ("JUMP", argument, line, handler) if jumps else ("NOP", None, line, handler)
+    return WAYS
 
 
 def combine_none(rows, at):
-    """Take None, a comparison with it and a jump by the result together."""
-    if at + 2 >= len(rows):
-        return False
-    word, label, line, handler = rows[at + 2]
+    """Take None, a comparison with it by IS_OP and a jump by the result together."""
+    if at + 1 == len(rows) or rows[at - 1][0] != "LOAD_CONST" or rows[at - 1][1] is not None:
+        return NOTHING
+    word, label, line, handler = rows[at + 1]
     if word != "POP_JUMP_IF_FALSE" and word != "POP_JUMP_IF_TRUE":
-        return False
-    jumps = (rows[at + 1][1] == 0) == (word == "POP_JUMP_IF_TRUE")
+        return NOTHING
+    jumps = (rows[at][1] == 0) == (word == "POP_JUMP_IF_TRUE")
+    blank(rows, at - 1)
     blank(rows, at)
-    blank(rows, at + 1)
-    rows[at + 2] = ("POP_JUMP_IF_NONE" if jumps else "POP_JUMP_IF_NOT_NONE", label, line, handler)
-    return True
+    rows[at + 1] = ("POP_JUMP_IF_NONE" if jumps else "POP_JUMP_IF_NOT_NONE", label, line, handler)
+    return ROWS
 
 
-def combine_comparison(rows, at):
-    if rows[at + 1][0] != "TO_BOOL":
-        return False
-    word, argument, line, handler = rows[at]
-    rows[at] = (word, (argument[0], True), line, handler)
-    blank(rows, at + 1)
-    return True
+def combine_null(rows, at):
+    """Take PUSH_NULL together with the global that is loaded ahead of it."""
+    word, argument, line, handler = rows[at - 1]
+    if word != "LOAD_GLOBAL" or argument[1]:
+        return NOTHING
+    rows[at - 1] = (word, (argument[0], True), line, handler)
+    blank(rows, at)
+    return ROWS
 
 
-def combine_bool(rows, at):
-    if rows[at + 1][0] != "TO_BOOL":
-        return False
-    blank(rows, at + 1)
-    return True
+def combine_return(rows, at):
+    """Take RETURN_VALUE together with a constant."""
+    word, constant, first, _ = rows[at - 1]
+    if word != "LOAD_CONST":
+        return NOTHING
+    _, _, line, handler = rows[at]
+    blank(rows, at - 1)
+    rows[at] = ("RETURN_CONST", constant, first if line is None else line, handler)
+    return ROWS
 
 
-def combine_global(rows, at):
-    word, argument, line, handler = rows[at]
-    if argument[1] or rows[at + 1][0] != "PUSH_NULL":
-        return False
-    rows[at] = (word, (argument[0], True), line, handler)
-    blank(rows, at + 1)
-    return True
-
-
-# What takes a row with this word together with the ones behind it; a LABEL behind it is no word that any of them knows.
+# What takes a row with this word together with the one ahead of it; a LABEL there is no word that any of them knows.
 RULES = {
-    "LOAD_CONST": combine_constant, "COMPARE_OP": combine_comparison, "CONTAINS_OP": combine_bool,
-    "IS_OP": combine_bool, "UNARY_NOT": combine_bool, "CHECK_EXC_MATCH": combine_bool, "TO_BOOL": combine_bool,
-    "LOAD_GLOBAL": combine_global,
+    "TO_BOOL": combine_truth, "POP_JUMP_IF_FALSE": combine_jump, "POP_JUMP_IF_TRUE": combine_jump,
+    "IS_OP": combine_none, "PUSH_NULL": combine_null, "RETURN_VALUE": combine_return,
 }
 
+# The words that leave a bool.
+BOOLS = {"CHECK_EXC_MATCH": True, "CONTAINS_OP": True, "IS_OP": True, "TO_BOOL": True, "UNARY_NOT": True}
 
-def thread(rows):
+
+def turn_jumps(rows):
+    """Let jumps lead to where artificial jumps lead at last, and blank those to what follows anyway."""
+    jumps = jumps_in(rows)
+    return thread(rows, jumps) | drop_jumps(rows, jumps) if jumps else NOTHING
+
+
+def jumps_in(rows):
+    """The indexes of jumps that are made in any case."""
+    return [at for at, row in enumerate(rows) if row[0] in JUMPS]
+
+
+def thread(rows, jumps):
     """Let jumps to artificial jumps lead to where those lead at last."""
-    onward = last_labels(onward_labels(rows))
+    onward = last_labels(onward_labels(rows, jumps))
     if not onward:
-        return False
-    changed = False
+        return NOTHING
+    changes = NOTHING
     for at, row in enumerate(list(rows)):
         word, label, line, handler = row
         if word in THREADED and onward.get(label) is not None:
             rows[at] = (word, onward[label], line, handler)
-            changed = True
-    return changed
+            changes = WAYS
+    return changes
 
 
-def onward_labels(rows):
+def onward_labels(rows, jumps):
     """For each label behind which an artificial jump stands, the label of this jump."""
     onward = {}
-    leads = None
-    for at in range(len(rows) - 1, -1, -1):
-        word, argument, line, _ = rows[at]
-        if word != "LABEL":
-            leads = argument if word == "JUMP" and line is None else None
-        elif leads is not None:
-            onward[argument] = leads
+    for at in jumps:
+        word, leads, line, _ = rows[at]
+        if word == "JUMP" and line is None:
+            while at > 0 and rows[at - 1][0] == "LABEL":
+                at -= 1
+                onward[rows[at][1]] = leads
     return onward
 
 
@@ -160,14 +193,14 @@ def last_labels(onward):
     return last
 
 
-def drop_jumps(rows):
+def drop_jumps(rows, jumps):
     """Blank the jumps to what follows them anyway."""
-    changed = False
-    for at in range(len(rows)):
-        if rows[at][0] in JUMPS and leads_on(rows, at):
+    changes = NOTHING
+    for at in jumps:
+        if leads_on(rows, at):
             blank(rows, at)
-            changed = True
-    return changed
+            changes = WAYS
+    return changes
 
 
 def leads_on(rows, at):
@@ -182,8 +215,10 @@ def leads_on(rows, at):
 
 
 def without_nops(rows):
-    """The rows without the NOPs that tell no line of their own."""
+    """The rows without the NOPs that tell no line of their own, and whether one of these had a handler."""
     found = []
+    loose = False
+    # The line that a NOP leaves to the row behind it.
     kept = None
     for at, row in enumerate(rows):
         if kept is not None:
@@ -191,15 +226,17 @@ def without_nops(rows):
             kept = None
         if row[0] != "NOP":
             found.append(row)
-        elif row[2] is not None and not tells_line_ahead(found, row[2]):
+            continue
+        line = row[2]
+        if line is not None and not tells_line_ahead(found, line):
             behind = rows[at + 1]
-            if behind[0] == "LABEL":
+            if behind[0] == "LABEL" or (behind[2] is not None and behind[2] != line):
                 found.append(row)
-            elif behind[2] is None:
-                kept = row[2]
-            elif behind[2] != row[2]:
-                found.append(row)
-    return found
+                continue
+            if behind[2] is None:
+                kept = line
+        loose = loose or row[3] is not None
+    return (found, loose)
 
 
 def tells_line_ahead(found, line):

@@ -38,6 +38,14 @@ LEAVING = {
     "JUMP_NO_INTERRUPT": True, "RAISE_VARARGS": True, "RERAISE": True, "RETURN_CONST": True, "RETURN_VALUE": True,
 }
 
+# The words behind which control does not just go on to the next row, and the one to which others lead.
+TURNING = {
+    "FOR_ITER": True, "JUMP": True, "JUMP_BACKWARD": True, "JUMP_BACKWARD_NO_INTERRUPT": True, "JUMP_FORWARD": True,
+    "JUMP_NO_INTERRUPT": True, "LABEL": True, "POP_JUMP_IF_FALSE": True, "POP_JUMP_IF_NONE": True,
+    "POP_JUMP_IF_NOT_NONE": True, "POP_JUMP_IF_TRUE": True, "RAISE_VARARGS": True, "RERAISE": True,
+    "RETURN_CONST": True, "RETURN_VALUE": True, "SEND": True,
+}
+
 # The words from which no exception comes.
 QUIET = {
     "BUILD_LIST": True, "BUILD_TUPLE": True, "CALL_INTRINSIC_1": True, "COPY": True, "COPY_FREE_VARS": True,
