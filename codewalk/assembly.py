@@ -1,18 +1,18 @@
 """Code objects made of flowed rows, and of whole programs."""
 
-from codewalk.arguments import ACTIONS, Pool
-from codewalk.codes import Code
+from codewalk.arguments import Draft, FORMS, of_constant
+from codewalk.codes import Code, Known
 from codewalk.encoding import (
-    CACHES, CELL, FREE, FUNCTION, GENERATOR, NESTED, NUMBERS, PARAMETER_CELL, PLAIN, WITH_MORE, WITH_REST,
+    CELL, FREE, FUNCTION, GENERATOR, NESTED, PARAMETER_CELL, PLAIN, WITH_MORE, WITH_REST,
 )
 from codewalk.flow import flowed
 from codewalk.generate import cells_of, is_generator, rows_of
-from codewalk.layout import Layout
+from codewalk.layout import Layout, extension_of
 from codewalk.preparing import prepare
 from codewalk.scopes import settled
 from codewalk.slots import numbers_of, parameters_of
 from codewalk.stack import stack_size
-from codewalk.tables import exception_bytes, line_bytes
+from codewalk.tables import exception_bytes, line_entries
 
 
 def compiled(tree, passes=True):
@@ -24,17 +24,19 @@ def codes_of(tree, passes=True):
     """The codes of a program, by the numbers of their scopes. Raises NoTree, NoProgram."""
     scopes = settled(tree)
     prepare(tree, scopes)
+    heads = [head_of(scope) for scope in scopes]
+    written = [rows_of(scope, scopes) for scope in scopes]
+    flows = [flowed(rows, head, passes) for rows, head in zip(written, heads)]
     codes = [None] * len(scopes)
     # The scopes inside of one have greater numbers.
-    for scope in reversed(scopes):
-        head = head_of(scope)
-        codes[scope.number] = assembled(flowed(rows_of(scope, scopes), head, passes), head, codes)
+    for number in range(len(scopes) - 1, -1, -1):
+        codes[number] = assembled(flows[number], heads[number], codes)
     return codes
 
 
 def head_of(scope):
     """The head of the code of a scope."""
-    cells = tuple(sorted(cells_of(scope)))
+    cells = tuple(sorted(scope.cells))
     frees = tuple(sorted(scope.frees))
     return (scope.word, scope.name, scope.path, scope.line, scope.taken, cells, frees, flags_of(scope))
 
@@ -58,76 +60,72 @@ def flags_of(scope):
 def assembled(rows, head, codes=()):
     """The Code of flowed rows; LOAD_CODE loads one of the codes."""
     word, name, path, line, parameters, _, _, flags = head
-    slots = numbers_of(rows, head)
-    pool = Pool(slots, codes)
+    # Only those of cells and free names are not known before all rows are.
+    slots = numbers_of(rows if head[5] or head[6] else (), head)
+    draft = Draft(slots, codes)
     if word == "function" or word == "lambda":
-        pool.constant(None)
-    labels = {}
-    layout = Layout(instructions_of(rows, pool, labels), labels)
+        of_constant(draft, None)
+    draw(draft, rows)
+    layout = Layout(draft)
+    lines = line_entries(layout.stretches(draft.lines), line)
+    handlers = exception_bytes(exception_rows_of(draft, layout))
     return Code(
-        len(parameters[0]), len(parameters[1]), stack_size(rows), flags, layout.code_bytes(), pool.constants,
-        list(pool.names), list(slots), kinds_of(slots, head), name, path, line, line_bytes(line_rows_of(layout), line),
-        exception_bytes(exception_rows_of(layout)),
+        len(parameters[0]), len(parameters[1]), stack_size(rows), flags, Known(layout.data), draft.constants,
+        list(draft.names), list(slots), Known(kinds_of(slots, head)), name, path, line, Known(lines), Known(handlers),
     )
 
 
-def instructions_of(rows, pool, labels):
-    """The instructions of rows, their arguments as numbers; puts into the labels which one each of them leads to."""
-    found = []
+def draw(draft, rows):
+    """Put the instructions of rows into a draft."""
+    data = draft.data
+    jumps = draft.jumps
+    # No row has this line.
+    told = ()
+    guard = None
     for word, argument, line, handler in rows:
         if word == "LABEL":
-            labels[argument] = len(found)
+            draft.labels[argument] = (len(data), len(jumps))
             continue
-        action = ACTIONS.get(word)
+        if line != told:
+            told = line
+            draft.lines.append((len(data), len(jumps), line))
+        if handler != guard:
+            guard = handler
+            draft.handlers.append((len(data), len(jumps), handler))
+        number, tail, action = FORMS[word]
         if action is not None:
-            argument = action(pool, argument)
-            if word == "LOAD_CODE":
-                word = "LOAD_CONST"
-            elif word == "LOAD_CLOSURE":
-                word = "LOAD_FAST"
+            argument = action(draft, argument)
         elif argument is None:
             argument = 0
-        found.append((word, NUMBERS[word], CACHES.get(word, 0), argument, line, handler))
-    return found
+        if argument > 255:
+            data.extend(extension_of(argument))
+        data.append(number)
+        data.append(argument & 255)
+        if tail:
+            data.extend(tail)
 
 
 def kinds_of(slots, head):
     """The kinds of locals."""
-    taken = {name: True for name in parameters_of(head)}
-    cells = {name: True for name in head[5]}
-    frees = {name: True for name in head[6]}
-    found = []
-    for name in slots:
-        if name in cells:
-            found.append(PARAMETER_CELL if name in taken else CELL)
-        else:
-            found.append(FREE if name in frees else PLAIN)
-    return found
+    cells, frees = head[5], head[6]
+    if not cells and not frees:
+        return [PLAIN] * len(slots)
+    kinds = {name: FREE for name in frees}
+    for name in cells:
+        kinds[name] = CELL
+    for name in parameters_of(head):
+        if kinds.get(name) == CELL:
+            kinds[name] = PARAMETER_CELL
+    return [kinds.get(name, PLAIN) for name in slots]
 
 
-def line_rows_of(layout):
-    """The rows (begin, end, line) of the line table, in bytes; those of each instruction by itself."""
-    found = []
-    begin = 0
-    for number, instruction in enumerate(layout.instructions):
-        end = 2 * layout.begin(number + 1)
-        found.append((begin, end, instruction[4]))
-        begin = end
-    return found
-
-
-def exception_rows_of(layout):
+def exception_rows_of(draft, layout):
     """The rows (begin, end, target, depth, bool) of the exception table, in bytes, one for each stretch."""
     found = []
-    before = None
-    for number, instruction in enumerate([*layout.instructions, (None, None, None, None, None, None)]):
-        handler = instruction[5]
-        if handler == before:
-            continue
-        end = 2 * layout.begin(number)
-        if before is not None:
-            label, depth, wanted = before
-            found.append((begin, end, 2 * layout.begin(layout.labels[label]), depth, wanted))
-        begin = end
-        before = handler
+    if not draft.handlers:
+        return found
+    for begin, end, handler in layout.stretches(draft.handlers):
+        if handler is not None:
+            label, depth, wanted = handler
+            found.append((begin, end, layout.target(label), depth, wanted))
     return found

@@ -28,6 +28,7 @@ class Scope:
         self.turned = {}
         self.kinds = {}
         self.frees = {}
+        self.cells = {}
         # Whether a Yield or a YieldFrom is its own.
         self.yields = False
         # What it runs, made ready for writing rows.

@@ -15,19 +15,45 @@ def with_checks(rows, head, words):
     """The rows, which have these words, with LOAD_FAST_CHECK for each LOAD_FAST of a name not surely bound there."""
     if "LOAD_FAST" not in words:
         return rows
+    lacking = lacking_on_ways(rows, head, words) if "LABEL" in words else lacking_in_order(rows, head)
+    if not lacking:
+        return rows
+    found = list(rows)
+    for at in lacking:
+        _, name, line, handler = rows[at]
+        found[at] = ("LOAD_FAST_CHECK", name, line, handler)
+    return found
+
+
+def lacking_in_order(rows, head):
+    """The indexes of the rows that load what is not surely bound, where no row leads elsewhere than to the next one."""
+    shared = [*head[5], *head[6]]
+    bound = {name: True for name in parameters_of(head)}
+    lacking = []
+    for at, row in enumerate(rows):
+        word = row[0]
+        if word in CHANGING:
+            name = row[1]
+            if word == "DELETE_FAST":
+                bound[name] = False
+            elif not bound.get(name):
+                bound[name] = True
+                if word == "LOAD_FAST" and name not in shared:
+                    lacking.append(at)
+    return lacking
+
+
+def lacking_on_ways(rows, head, words):
+    """The same where rows lead to labels."""
     bits = bits_of(rows, head, words)
     if not bits:
-        return rows
+        return []
     bound = Bound(bits)
     first = sum([bits[name] for name in parameters_of(head) if name in bits])
     bound.sweep(rows, first)
     while bound.is_stale():
         bound.sweep(rows, first)
-    found = list(rows)
-    for at in bound.lacking:
-        _, name, line, handler = rows[at]
-        found[at] = ("LOAD_FAST_CHECK", name, line, handler)
-    return found
+    return bound.lacking
 
 
 def bits_of(rows, head, words):

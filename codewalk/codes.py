@@ -9,6 +9,17 @@ DEEPEST = 100
 BARRED = 37
 
 
+class Known:
+    """A row of bytes that is known to be right, since this package has made it: it is not looked through once more."""
+
+    def __init__(self, row):
+        self.row = row
+
+
+class Mark:
+    """What an object has that is no other object's."""
+
+
 class Code:
     """What the machine runs: instructions, what they name, and the tables of handlers and lines."""
 
@@ -32,23 +43,46 @@ class Code:
         self.line = number_of(line, "line")
         self.lines = bytes_of(lines, "lines")
         self.handlers = bytes_of(handlers, "handlers")
-        # What two codes have alike that are equal.
-        self.told = (
-            self.argcount, self.onlycount, self.stacksize, self.flags, self.code, told_constants(self.constants),
-            self.names, self.slots, self.kinds, self.name, self.path, self.line, self.lines, self.handlers,
-        )
+        self.mark = Mark()
 
     def __eq__(self, other):
-        return isinstance(other, Code) and self.told == other.told
+        return isinstance(other, Code) and are_equal(self, other)
+
+    def parts(self):
+        """What two codes have alike that are equal, but for their constants."""
+        return (
+            self.argcount, self.onlycount, self.stacksize, self.flags, self.code, self.names, self.slots, self.kinds,
+            self.name, self.path, self.line, self.lines, self.handlers,
+        )
+
+
+def are_equal(one, other):
+    """Whether two codes are equal; those among their constants may be nested deeper than calls."""
+    waiting = [(one, other)]
+    while waiting:
+        one, other = waiting.pop()
+        # One object is equal to itself.
+        if one.mark == other.mark:
+            continue
+        if one.parts() != other.parts() or len(one.constants) != len(other.constants):
+            return False
+        for mine, its in zip(one.constants, other.constants):
+            if isinstance(mine, Code) and isinstance(its, Code):
+                waiting.append((mine, its))
+            elif isinstance(mine, Code) or isinstance(its, Code) or told_constants((mine,)) != told_constants((its,)):
+                return False
+    return True
 
 
 def number_of(value, field):
-    if not isinstance(value, int) or isinstance(value, bool) or not 0 <= value <= GREATEST:
+    if not isinstance(value, int) or value is True or value is False or not 0 <= value <= GREATEST:
         raise NoCode(field)
     return value
 
 
 def bytes_of(row, field):
+    if isinstance(row, Known):
+        return tuple(row.row)
     if not isinstance(row, (list, tuple)):
         raise NoCode(field)
     for value in row:
@@ -74,7 +108,10 @@ def strings_of(row, field):
 
 def is_string(value):
     """Whether an object is a string of the characters that strings of programs have."""
-    return isinstance(value, str) and value.isascii() and value.isprintable() and BARRED not in value.encode()
+    if not isinstance(value, str) or not value.isascii():
+        return False
+    # Most are names, which have no other characters.
+    return value.isidentifier() or (value.isprintable() and BARRED not in value.encode())
 
 
 def depth_of(constants):
@@ -82,22 +119,31 @@ def depth_of(constants):
     if not isinstance(constants, (list, tuple)):
         raise NoCode("constants")
     depth = 1
-    # What is still to be looked at, with the number of tuples around it.
-    waiting = []
     for value in constants:
         if isinstance(value, Code):
             depth = max(depth, value.depth + 1)
-        else:
-            waiting.append((value, 0))
+        elif not is_constant(value):
+            raise NoCode("constants")
+    if depth > DEEPEST:
+        raise NoCode("constants")
+    return depth
+
+
+def is_constant(value):
+    """Whether an object is a constant of trees, or a tuple of such."""
+    if value is None or isinstance(value, int):
+        return True
+    if not isinstance(value, tuple):
+        return is_string(value)
+    # What is still to be looked at, with the number of tuples around it.
+    waiting = [(value, 0)]
     while waiting:
         value, around = waiting.pop()
         if isinstance(value, tuple) and around < DEEPEST:
             waiting.extend([(inner, around + 1) for inner in value])
         elif value is not None and not isinstance(value, int) and not is_string(value):
-            raise NoCode("constants")
-    if depth > DEEPEST:
-        raise NoCode("constants")
-    return depth
+            return False
+    return True
 
 
 def told_constants(constants):
@@ -109,8 +155,6 @@ def told_constants(constants):
         if isinstance(value, tuple):
             found.extend(["tuple", len(value)])
             waiting.extend(list(reversed(value)))
-        elif isinstance(value, Code):
-            found.extend(["code", value.told])
         elif value is None or isinstance(value, bool):
             found.extend(["bool", value])
         else:

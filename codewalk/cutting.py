@@ -1,6 +1,6 @@
 """Bytes of codes cut into instructions."""
 
-from codewalk.encoding import CACHE, CACHES, EXTENDED_ARG, WORDS
+from codewalk.encoding import EXTENDED_ARG, WORDS
 
 MOST_EXTENDED = 3
 
@@ -21,14 +21,12 @@ def cut(data):
             at += 2
         if at + 1 >= size or at > begin + 2 * MOST_EXTENDED or (at > begin and data[begin + 1] == 0):
             return (found, begin)
-        word = WORDS.get(data[at])
-        if word is None or data[at] == CACHE:
+        if data[at] not in WORDS:
             return (found, begin)
-        end = at + 2
-        if word in CACHES:
-            end += 2 * CACHES[word]
-            if end > size or any(data[at + 2:end]):
-                return (found, begin)
+        word, units = WORDS[data[at]]
+        end = at + 2 * units
+        if end > size or (units > 1 and any(data[at + 2:end])):
+            return (found, begin)
         found.append((begin, word, argument << 8 | data[at + 1], end))
         begin = end
     return (found, None if found else 0)

@@ -6,6 +6,7 @@ from codewalk.placing import with_cold_last, with_lines
 from codewalk.rounds import rounds
 from codewalk.slots import numbers_of
 from codewalk.ways import words_in
+from codewalk.words import TURNING
 
 MOST_IN_PAIRS = 16
 
@@ -68,10 +69,11 @@ def with_directions(rows):
     jumps = []
     for at, row in enumerate(rows):
         word = row[0]
-        if word == "LABEL":
-            places[row[1]] = at
-        elif word in DIRECTIONS or word in OPPOSITES:
-            jumps.append(at)
+        if word in TURNING:
+            if word == "LABEL":
+                places[row[1]] = at
+            elif word in DIRECTIONS or word in OPPOSITES:
+                jumps.append(at)
     found = []
     done = 0
     free = 0

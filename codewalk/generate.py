@@ -59,9 +59,8 @@ def write_begin(out, generator):
 
 def cells_of(scope):
     """The cells of a scope: the parameters first, in their order."""
-    cells = [name for name, kind in scope.kinds.items() if kind == "cell"]
-    taken = [name for name in scope.parameters if scope.kinds[name] == "cell"]
-    return taken + sorted([name for name in cells if name not in scope.parameters])
+    taken = [name for name in scope.parameters if name in scope.cells]
+    return taken + sorted([name for name in scope.cells if name not in scope.parameters])
 
 
 def write_class_names(out):

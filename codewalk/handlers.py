@@ -19,7 +19,11 @@ def with_handlers(rows, words):
 
     The words are those of the rows.
     """
-    return reached_rows(rows) if "LABEL" in words else first_rows(rows)
+    if "LABEL" not in words:
+        return first_rows(rows)
+    if "SETUP_FINALLY" in words or "SETUP_CLEANUP" in words or "SETUP_WITH" in words:
+        return reached_rows(rows, reached_with)
+    return reached_rows(rows, reached_without)
 
 
 def first_rows(rows):
@@ -32,16 +36,37 @@ def first_rows(rows):
     return found
 
 
-def reached_rows(rows):
+def reached_rows(rows, go_through):
     """The same for rows with labels, those that nothing names left out."""
     # What is known of labels to which a row that is reached leads: the entries on the stack, and what is open.
     told = {}
-    found, unknown = reached_with(rows, told)
+    found, unknown = go_through(rows, told)
     while any([label in told and not live for label, live in unknown.items()]):
-        found, unknown = reached_with(rows, told)
+        found, unknown = go_through(rows, told)
     if all([label in told for label in unknown]):
         return found
     return [row for row in found if row[0] != "LABEL" or row[1] in told]
+
+
+def reached_without(rows, told):
+    """What `reached_with` gives, for rows that open no handler."""
+    found = []
+    unknown = {}
+    live = True
+    for word, argument, line in rows:
+        if word == "LABEL":
+            if argument not in told:
+                unknown[argument] = live
+            else:
+                live = True
+            found.append((word, argument, None, None))
+        elif live:
+            found.append((word, argument, line, None))
+            if word in TURNING:
+                if word in LEADING:
+                    told[argument] = NOTHING
+                live = word not in LEAVING
+    return (found, unknown)
 
 
 def reached_with(rows, told):

@@ -1,6 +1,6 @@
 """Steps of the flow: lines for artificial rows, and cold rows at the end. The words passed are those of the rows."""
 
-from codewalk.rounds import cleared, without_nops
+from codewalk.rounds import cleared, only_telling
 from codewalk.ways import places_of, reached
 from codewalk.words import LEADING, LEAVING
 
@@ -8,9 +8,26 @@ from codewalk.words import LEADING, LEAVING
 def with_lines(rows, words):
     """The rows, the artificial ones with the line of the only row that leads to them, if that has one."""
     bare = [at for at, row in enumerate(rows) if row[2] is None and at > 0 and row[0] != "LABEL"]
-    sources = sources_of(rows, bare) if "LABEL" in words else {at: at - 1 for at in bare}
-    if not sources:
-        return rows
+    if "LABEL" in words:
+        return with_lines_on_ways(rows, bare)
+    found = list(rows)
+    for at in bare:
+        word, argument, _, handler = rows[at]
+        found[at] = (word, argument, found[at - 1][2], handler)
+    return found
+
+
+def with_lines_on_ways(rows, bare):
+    """The same for rows with labels, of which these are the artificial ones but for a first one."""
+    found = list(rows)
+    for at, line in lines_along(sources_of(rows, bare), rows).items():
+        word, argument, _, handler = rows[at]
+        found[at] = (word, argument, line, handler)
+    return found
+
+
+def lines_along(sources, rows):
+    """For each row with a source the line of the first row along the sources that has none."""
     lines = {}
     for at in sources:
         path = {}
@@ -21,11 +38,7 @@ def with_lines(rows, words):
         line = lines[source] if source in lines else rows[source][2]
         for passed in path:
             lines[passed] = line
-    found = list(rows)
-    for at, line in lines.items():
-        word, argument, _, handler = rows[at]
-        found[at] = (word, argument, line, handler)
-    return found
+    return lines
 
 
 def sources_of(rows, bare):
@@ -51,12 +64,16 @@ def sources_of(rows, bare):
 def sources_at_labels(rows, behind):
     """The same for rows behind labels, to which jumps may lead, and exceptions must not."""
     leads = leads_of(rows)
-    caught = {row[3][0]: True for row in rows if row[3] is not None}
     sources = {}
     for at, (labels, ways) in behind.items():
-        ways = ways + [source for label in labels for source in leads.get(label, ())]
-        if len(ways) == 1 and ways[0] >= 0 and not any([label in caught for label in labels]):
+        for label in labels:
+            if label in leads:
+                ways.extend(leads[label])
+        if len(ways) == 1 and ways[0] >= 0:
             sources[at] = ways[0]
+    if sources:
+        caught = {row[3][0]: True for row in rows if row[3] is not None}
+        return {at: source for at, source in sources.items() if not any([label in caught for label in behind[at][0]])}
     return sources
 
 
@@ -75,10 +92,7 @@ def with_cold_last(rows, words):
     warm = warm_rows(rows) if guarded else []
     if not all(warm):
         return cleared(moved_back(rows, warm))
-    if "NOP" not in words:
-        return rows
-    found, _ = without_nops(rows)
-    return found
+    return only_telling(rows) if "NOP" in words else rows
 
 
 def moved_back(rows, warm):

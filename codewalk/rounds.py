@@ -21,26 +21,32 @@ THREADED = {
 def rounds(rows, words):
     """The rows behind the last of the rounds; the words are those that there were at first."""
     if "LABEL" in words:
-        return rounds_with_labels(rows)
-    changes = combine(rows)
-    if "NOP" in words:
-        changes |= ROWS
-    while changes:
-        rows, _ = without_nops(rows)
-        changes = combine(rows)
+        return rounds_with_labels(rows, words)
+    stale = combine(rows) != NOTHING or "NOP" in words
+    while stale:
+        rows, _, met = without_nops(rows)
+        stale = met and combine(rows) != NOTHING
     return rows
 
 
-def rounds_with_labels(rows):
+def rounds_with_labels(rows, words):
     """The same for rows with labels, all of which are reached at first."""
+    jumps = "JUMP" in words or "JUMP_NO_INTERRUPT" in words
     loose = False
+    met = True
     changed = True
     while changed:
         before = len(rows)
-        changes = combine(rows) | turn_jumps(rows)
+        changes = combine(rows) if met else NOTHING
+        if jumps or changes & WAYS:
+            jumps = True
+            changes |= turn_jumps(rows)
         if loose or changes & WAYS:
             rows = without_unreached(rows)
-        rows, loose = without_nops(rows)
+        unlike = len(rows) < before
+        rows, loose, met = without_nops(rows)
+        # Where a label is gone, rows have met as well.
+        met = met or unlike
         changed = changes != NOTHING or len(rows) < before
     return rows
 
@@ -48,7 +54,12 @@ def rounds_with_labels(rows):
 def cleared(rows):
     """The rows without needless jumps, rows and NOPs."""
     drop_jumps(rows, jumps_in(rows))
-    found, _ = without_nops(without_unreached(rows))
+    return only_telling(without_unreached(rows))
+
+
+def only_telling(rows):
+    """The rows without the NOPs that tell no line of their own."""
+    found, _, _ = without_nops(rows)
     return found
 
 
@@ -137,6 +148,15 @@ RULES = {
     "IS_OP": combine_none, "PUSH_NULL": combine_null, "RETURN_VALUE": combine_return,
 }
 
+# The words that must stand ahead of these words, or of one that goes together with them.
+MEETING = {
+    "TO_BOOL": (
+        "LOAD_CONST", "COMPARE_OP", "CHECK_EXC_MATCH", "CONTAINS_OP", "IS_OP", "TO_BOOL", "UNARY_NOT",
+    ),
+    "POP_JUMP_IF_FALSE": ("LOAD_CONST", "IS_OP"), "POP_JUMP_IF_TRUE": ("LOAD_CONST", "IS_OP"),
+    "IS_OP": ("LOAD_CONST",), "PUSH_NULL": ("LOAD_GLOBAL",), "RETURN_VALUE": ("LOAD_CONST",),
+}
+
 # The words that leave a bool.
 BOOLS = {"CHECK_EXC_MATCH": True, "CONTAINS_OP": True, "IS_OP": True, "TO_BOOL": True, "UNARY_NOT": True}
 
@@ -215,9 +235,11 @@ def leads_on(rows, at):
 
 
 def without_nops(rows):
-    """The rows without the NOPs that tell no line of their own, and whether one of these had a handler."""
+    """The rows without the NOPs that tell no line of their own; and whether one of these had a handler, and whether
+    rows have met where one of them was that may be taken together."""
     found = []
     loose = False
+    met = False
     # The line that a NOP leaves to the row behind it.
     kept = None
     for at, row in enumerate(rows):
@@ -228,17 +250,23 @@ def without_nops(rows):
             found.append(row)
             continue
         line = row[2]
+        behind = rows[at + 1]
         if line is not None and not tells_line_ahead(found, line):
-            behind = rows[at + 1]
             if behind[0] == "LABEL" or (behind[2] is not None and behind[2] != line):
                 found.append(row)
                 continue
             if behind[2] is None:
                 kept = line
         loose = loose or row[3] is not None
-    return (found, loose)
+        met = met or may_meet(found, behind[0])
+    return (found, loose, met)
 
 
 def tells_line_ahead(found, line):
     """Whether the last row goes on and has this line; a LABEL has none."""
     return len(found) > 0 and found[-1][2] == line and found[-1][0] not in LEAVING
+
+
+def may_meet(found, word):
+    """Whether a rule may take the last row together with one with this word."""
+    return word in MEETING and len(found) > 0 and found[-1][0] in MEETING[word]

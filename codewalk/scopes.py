@@ -77,3 +77,4 @@ def pass_free(name, scope):
             around.kinds[name] = "free"
         around = around.around
     around.kinds[name] = "cell"
+    around.cells[name] = True

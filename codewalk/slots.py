@@ -5,7 +5,12 @@ from codewalk.words import LOCAL, LOCAL_PAIRS
 
 def parameters_of(head):
     names, only, rest, more = head[4]
-    return [*names, *only, *[name for name in (rest, more) if name is not None]]
+    found = [*names, *only]
+    if rest is not None:
+        found.append(rest)
+    if more is not None:
+        found.append(more)
+    return found
 
 
 def numbers_of(rows, head):
@@ -18,7 +23,7 @@ def numbers_of(rows, head):
     for name in locals_in(rows):
         if name not in numbers and name not in shared:
             numbers[name] = len(numbers)
-    for name in [*cells, *frees]:
+    for name in shared:
         if name not in numbers:
             numbers[name] = len(numbers)
     return numbers

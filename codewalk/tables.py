@@ -12,6 +12,9 @@ WITH_LINE = 232
 WITHOUT_LINE = 248
 MOST_UNITS = 8
 
+# From so many on, units are not written one entry after the other.
+MANY_UNITS = 80
+
 
 def exception_rows(code):
     """The rows (begin, end, target, depth, bool) of a code's exception table. Raises NoCode, NoTable."""
@@ -126,24 +129,49 @@ def pieces_of(number):
 
 def line_bytes(rows, line):
     """The line table with these rows, of a code with this first line."""
+    return tuple(line_entries(joined(rows), line))
+
+
+def line_entries(rows, line):
+    """The bytes of the same, neighbours of one line being joined already."""
     found = []
-    for begin, end, told in joined(rows):
+    for begin, end, told in rows:
         units = (end - begin) // 2
-        while units > 0:
-            part = min(units, MOST_UNITS)
-            units -= part
-            if told is None:
-                found.append(WITHOUT_LINE + part - 1)
-            else:
-                found.append(WITH_LINE + part - 1)
-                found.extend(signed_pieces(told - line))
-                line = told
-    return tuple(found)
+        more = -1 if told is None else told - line
+        if 0 <= more < 32 and 0 < units < MANY_UNITS:
+            # As most are.
+            line = told
+            while units > MOST_UNITS:
+                found.append(WITH_LINE + MOST_UNITS - 1)
+                found.append(2 * more)
+                more = 0
+                units -= MOST_UNITS
+            found.append(WITH_LINE + units - 1)
+            found.append(2 * more)
+        elif units:
+            found.extend(entries_of(units, None if told is None else signed_pieces(more)))
+            line = line if told is None else told
+    return found
+
+
+def entries_of(units, pieces):
+    """The bytes of so many units, with the bytes of how much greater their line is, or with None for no line."""
+    # The entries ahead of the last one have as many units as there may be.
+    whole = (units - 1) // MOST_UNITS
+    last = units - MOST_UNITS * whole - 1
+    if pieces is None:
+        return [WITHOUT_LINE + MOST_UNITS - 1] * whole + [WITHOUT_LINE + last]
+    if whole == 0:
+        return [WITH_LINE + last, *pieces]
+    full = WITH_LINE + MOST_UNITS - 1
+    return [full, *pieces, *([full, 0] * (whole - 1)), WITH_LINE + last, 0]
 
 
 def signed_pieces(number):
     """The bytes of a signed number, the lowest piece first."""
     rest = 2 * number if number >= 0 else -2 * number + 1
+    if rest < 64:
+        return [rest]
     found = []
     while rest > 63:
         found.append(rest & 63 | GOES_ON)

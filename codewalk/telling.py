@@ -1,11 +1,12 @@
 """Instructions told one by one, and the bytes of such."""
 
+from codewalk.arguments import FORMS
 from codewalk.cases import spread, target_of
 from codewalk.codes import Code
 from codewalk.cutting import cut
-from codewalk.encoding import CACHE, CACHES, EXTENDED_ARG, FIRST_WITH_ARGUMENT, NUMBERS
+from codewalk.encoding import EXTENDED_ARG, FIRST_WITH_ARGUMENT
 from codewalk.errors import NoCode, NoRows, NoTable
-from codewalk.layout import instruction_bytes
+from codewalk.layout import extension_of
 from codewalk.meanings import MEANINGS
 from codewalk.tables import line_rows
 from codewalk.words import LEADING
@@ -40,7 +41,8 @@ def lines_of(code):
 
 
 def takes_argument(word):
-    return NUMBERS[word] >= FIRST_WITH_ARGUMENT
+    number, _, _ = FORMS[word]
+    return number >= FIRST_WITH_ARGUMENT
 
 
 def meaning_of(code, word, argument, end):
@@ -63,14 +65,15 @@ def bytes_of(rows):
     for at, row in enumerate(rows):
         if not isinstance(row, tuple) or len(row) != 2 or not is_instruction(row[0], row[1]):
             raise NoRows(at)
-        word, argument = row
-        found.extend(instruction_bytes(NUMBERS[word], 0 if argument is None else argument, CACHES.get(word, 0)))
+        number, tail, _ = FORMS[row[0]]
+        argument = 0 if row[1] is None else row[1]
+        found.extend([*extension_of(argument), number, argument & 255, *tail])
     return tuple(found)
 
 
 def is_instruction(word, argument):
     """Whether a word may stand in rows with this argument."""
-    if not isinstance(word, str) or NUMBERS.get(word, CACHE) in (CACHE, EXTENDED_ARG):
+    if not isinstance(word, str) or word not in FORMS or word == "LOAD_CODE" or word == "LOAD_CLOSURE":
         return False
     if not takes_argument(word):
         return argument is None

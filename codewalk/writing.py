@@ -10,6 +10,15 @@ COMPARISONS = {
 FUNCTION_ENDINGS = {"local": "FAST", "cell": "DEREF", "free": "DEREF", "global": "GLOBAL", "implicit": "GLOBAL"}
 OTHER_ENDINGS = {"local": "NAME", "free": "DEREF", "global": "GLOBAL", "implicit": "NAME"}
 
+# The words that load a name of each kind; what stands ahead of some is not told here.
+FUNCTION_LOADS = {
+    "local": "LOAD_FAST", "cell": "LOAD_DEREF", "free": "LOAD_DEREF", "global": "LOAD_GLOBAL",
+    "implicit": "LOAD_GLOBAL",
+}
+OTHER_LOADS = {
+    "local": "LOAD_NAME", "free": "LOAD_FROM_DICT_OR_DEREF", "global": "LOAD_GLOBAL", "implicit": "LOAD_NAME",
+}
+
 
 class Writer:
     """The rows of the code of a scope so far."""
@@ -51,14 +60,14 @@ class Writer:
         return FUNCTION_ENDINGS[kind] if self.function else OTHER_ENDINGS[kind]
 
     def load(self, name):
-        ending = self.ending(name)
-        if ending == "GLOBAL":
-            self.put("LOAD_GLOBAL", (name, False))
-        elif ending == "DEREF" and not self.function:
+        kind = self.scope.kinds[name]
+        word = FUNCTION_LOADS[kind] if self.function else OTHER_LOADS[kind]
+        if word == "LOAD_GLOBAL":
+            self.rows.append((word, (name, False), self.line))
+            return
+        if word == "LOAD_FROM_DICT_OR_DEREF":
             self.put("LOAD_LOCALS")
-            self.put("LOAD_FROM_DICT_OR_DEREF", name)
-        else:
-            self.put("LOAD_" + ending, name)
+        self.rows.append((word, name, self.line))
 
     def store(self, name):
         self.put("STORE_" + self.ending(name), name)
