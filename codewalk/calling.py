@@ -58,8 +58,9 @@ def bound(world, function, values, keywords):
 def take_keywords(world, plan, found, keywords):
     """Give values to the parameters that they name; the dict of all others."""
     more = Dict()
+    places = {name: at for at, name in enumerate(plan.taken)} if keywords else {}
     for name, value in keywords.items():
-        at = plan.places.get(name)
+        at = places.get(name)
         if at is None:
             put_pair(world, more, name, value)
         elif isinstance(found[at], Nothing):

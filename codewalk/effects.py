@@ -87,19 +87,3 @@ def call_with_rows(machine, frame, argument):
     called, _, row = cut_off(frame.stack, 3)
     values = items_of(machine, row)
     frame.stack.append(call_value(machine, called, values, keywords_of(machine, held)))
-
-
-VALUE_ACTIONS = {
-    "NOP": nothing, "RESUME": nothing, "POP_TOP": pop_top, "END_FOR": pop_top, "COPY": copy_entry, "SWAP": swap,
-    "PUSH_NULL": push_null, "LOAD_CONST": put_value, "LOAD_ASSERTION_ERROR": load_assertion_error,
-    "LOAD_BUILD_CLASS": load_builder, "BINARY_SUBSCR": get_element, "BINARY_SLICE": get_slice,
-    "STORE_SUBSCR": put_element, "STORE_SLICE": put_slice, "DELETE_SUBSCR": drop_element,
-    "LOAD_ATTR": get_attribute, "STORE_ATTR": put_attribute, "DELETE_ATTR": drop_attribute, "TO_BOOL": to_bool,
-    "UNARY_NOT": invert_bool, "UNARY_INVERT": invert, "UNARY_NEGATIVE": negate, "BINARY_OP": operate_on_two,
-    "COMPARE_OP": compare,
-    "CONTAINS_OP": look_inside, "IS_OP": look_whether_one, "BUILD_TUPLE": build_tuple, "BUILD_LIST": build_list,
-    "BUILD_MAP": build_dict, "BUILD_CONST_KEY_MAP": build_dict_by_keys, "LIST_APPEND": append_to_list,
-    "LIST_EXTEND": extend_list, "MAP_ADD": add_pair, "DICT_MERGE": merge, "CALL_INTRINSIC_1": change_kind,
-    "UNPACK_SEQUENCE": unpack, "UNPACK_EX": unpack_with_list, "CALL": call, "CALL_KW": call_by_names,
-    "CALL_FUNCTION_EX": call_with_rows,
-}

@@ -22,7 +22,8 @@ class Machine(World):
     """A run of a code."""
 
     def framed(self, program, values, names, cells):
-        program.prepare()
+        if not program.steps:
+            program.prepare()
         return Frame(program, values, names, cells)
 
     def frame_of(self, function, values, names):
@@ -45,11 +46,10 @@ class Machine(World):
         stops = False
         while not stops:
             at = frame.at
-            action, argument, line = steps[at]
+            action, argument, line, frame.at = steps[at]
             if line is not None and line != frame.told:
                 frame.told = line
                 self.put(("line", line))
-            frame.at = at + 1
             try:
                 stops = action(self, frame, argument)
             except Raised as raised:
@@ -59,9 +59,9 @@ class Machine(World):
     def settle(self, frame, at, fault, begun):
         """Let an exception that has come out of an instruction go to its handler, or out of the frame."""
         plan = frame.plan
-        if not plan.silent[at]:
+        if not plan.is_silent(at):
             fault.trace.append((frame.path, plan.lines[at]))
-        handler = plan.handlers[at] if begun else None
+        handler = plan.handlers[at] if begun and plan.handlers else None
         if handler is None:
             frame.state = ENDED
             self.put(("leave", fault.shape.name))

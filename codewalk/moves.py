@@ -6,7 +6,6 @@ An ACTION takes the machine, the frame and the argument made ready; the frame st
 from codewalk.effects import Null
 from codewalk.going import next_of, sent
 from codewalk.plain import plain
-from codewalk.stacks import get_iterator, get_source
 from codewalk.values import Cell, ENDED, Function, NEW, Nothing, RESTS, Raised
 
 
@@ -258,21 +257,3 @@ def enter_context(machine, frame, argument):
 def start_exit(machine, frame, argument):
     fault = frame.stack[-1]
     frame.stack.append(machine.call(frame.stack[-4], [fault.shape, fault, None]))
-
-
-FRAME_ACTIONS = {
-    "LOAD_FAST": load_fast, "LOAD_FAST_CHECK": load_fast_check, "STORE_FAST": store_fast, "DELETE_FAST": delete_fast,
-    "LOAD_FAST_LOAD_FAST": load_two, "STORE_FAST_LOAD_FAST": store_and_load, "STORE_FAST_STORE_FAST": store_two,
-    "MAKE_CELL": make_cell, "COPY_FREE_VARS": copy_cells, "LOAD_DEREF": load_deref, "STORE_DEREF": store_deref,
-    "DELETE_DEREF": delete_deref, "LOAD_LOCALS": load_locals, "LOAD_FROM_DICT_OR_DEREF": load_from_names,
-    "LOAD_NAME": load_name, "STORE_NAME": store_name, "DELETE_NAME": delete_name, "LOAD_GLOBAL": load_global,
-    "STORE_GLOBAL": store_global, "DELETE_GLOBAL": delete_global, "MAKE_FUNCTION": make_function,
-    "SET_FUNCTION_ATTRIBUTE": set_attribute, "JUMP_FORWARD": jump, "JUMP_BACKWARD": jump_backward,
-    "JUMP_BACKWARD_NO_INTERRUPT": jump, "POP_JUMP_IF_FALSE": jump_if_false, "POP_JUMP_IF_TRUE": jump_if_true,
-    "POP_JUMP_IF_NONE": jump_if_none, "POP_JUMP_IF_NOT_NONE": jump_if_not_none, "GET_ITER": get_iterator,
-    "GET_YIELD_FROM_ITER": get_source, "FOR_ITER": turn, "SEND": send, "END_SEND": end_send,
-    "RETURN_GENERATOR": make_generator, "YIELD_VALUE": give, "RETURN_CONST": give_back, "RETURN_VALUE": end,
-    "RAISE_VARARGS": throw, "RERAISE": throw_again, "CLEANUP_THROW": end_throw, "CHECK_EXC_MATCH": catch,
-    "PUSH_EXC_INFO": push_handled, "POP_EXCEPT": pop_handled, "BEFORE_WITH": enter_context,
-    "WITH_EXCEPT_START": start_exit,
-}

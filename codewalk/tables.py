@@ -73,6 +73,29 @@ def line_rows(code):
     return joined(found)
 
 
+def lines_of_units(code):
+    """The line, or None, of each unit of two bytes, as a line table that is right tells it."""
+    table = code.lines
+    line = code.line
+    found = []
+    at = 0
+    while at < len(table):
+        first = table[at]
+        at += 1
+        if first >= WITHOUT_LINE:
+            found.extend([None] * (first - WITHOUT_LINE + 1))
+            continue
+        more = table[at]
+        if more & (GOES_ON | 1):
+            more, at = signed_number(table, at)
+            line += more
+        else:
+            line += more >> 1
+            at += 1
+        found.extend([line] * (first - WITH_LINE + 1))
+    return found
+
+
 def signed_number(table, at):
     """The signed number that begins at a byte, the lowest piece first, and the byte behind it. Raises NoTable."""
     first = at

@@ -76,7 +76,6 @@ class Plan:
         # The names of parameters, and how many of them may be passed by position.
         self.taken = taken
         self.many = many
-        self.places = {parameter: at for at, parameter in enumerate(taken)}
 
 
 class Function:
