@@ -39,17 +39,6 @@ def target_of(word, argument, end):
     return end - 2 * argument if word in BACKWARD else end + 2 * argument
 
 
-def spread(rows, begins):
-    """What rows (begin, end, ..) of a table, in their order, tell of instructions that begin so; None if nothing."""
-    found = []
-    at = 0
-    for begin in begins:
-        while at < len(rows) and rows[at][1] <= begin:
-            at += 1
-        found.append(rows[at][2] if at < len(rows) and rows[at][0] <= begin else None)
-    return found
-
-
 def parameters_in(code):
     """How many locals of a code are parameters."""
     return code.argcount + code.onlycount + (1 if code.flags & WITH_REST else 0) + (1 if code.flags & WITH_MORE else 0)

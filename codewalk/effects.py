@@ -7,11 +7,7 @@ from codewalk.attributes import attribute_of, method_of
 from codewalk.calling import call_value, keywords_of
 from codewalk.comparing import comparison, identical
 from codewalk.going import contains, items_of
-from codewalk.stacks import (
-    add_pair, append_to_list, build_dict, build_dict_by_keys, build_list, build_tuple, change_kind, copy_entry, cut_off,
-    drop_attribute, drop_element, extend_list, get_element, get_slice, invert, invert_bool, merge, negate,
-    operate_on_two, pop_top, put_attribute, put_element, put_slice, put_value, swap, to_bool, unpack, unpack_with_list,
-)
+from codewalk.stacks import cut_off
 from codewalk.values import Dict
 
 
@@ -47,23 +43,32 @@ def get_attribute(machine, frame, argument):
 
 
 def compare(machine, frame, argument):
-    left, right = cut_off(frame.stack, 2)
+    right = frame.stack.pop()
+    left = frame.stack.pop()
     frame.stack.append(comparison(machine, argument, left, right))
 
 
 def look_inside(machine, frame, argument):
-    value, held = cut_off(frame.stack, 2)
+    held = frame.stack.pop()
+    value = frame.stack.pop()
     frame.stack.append(contains(machine, value, held) != (argument == 1))
 
 
 def look_whether_one(machine, frame, argument):
-    left, right = cut_off(frame.stack, 2)
+    right = frame.stack.pop()
+    left = frame.stack.pop()
     frame.stack.append(identical(left, right) != (argument == 1))
 
 
 def call(machine, frame, argument):
-    values = cut_off(frame.stack, argument)
-    frame.stack.append(call_below(machine, frame, values, {}))
+    stack = frame.stack
+    first = len(stack) - argument
+    values = stack[first:]
+    if not isinstance(stack[first - 1], Null):
+        values = stack[first - 1:]
+    called = stack[first - 2]
+    del stack[first - 2:]
+    stack.append(call_value(machine, called, values, {}))
 
 
 def call_by_names(machine, frame, argument):
@@ -71,15 +76,9 @@ def call_by_names(machine, frame, argument):
     values = cut_off(frame.stack, argument)
     split = argument - len(names)
     keywords = {name: value for name, value in zip(names, values[split:])}
-    frame.stack.append(call_below(machine, frame, values[:split], keywords))
-
-
-def call_below(machine, frame, values, keywords):
-    """Call what lies on the stack below what may be the first value of all."""
     called, first = cut_off(frame.stack, 2)
-    if not isinstance(first, Null):
-        values = [first, *values]
-    return call_value(machine, called, values, keywords)
+    values = values[:split] if isinstance(first, Null) else [first, *values[:split]]
+    frame.stack.append(call_value(machine, called, values, keywords))
 
 
 def call_with_rows(machine, frame, argument):

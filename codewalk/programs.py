@@ -61,9 +61,10 @@ class Program(Plan):
     def made_ready(self, numbers, arguments):
         """The steps of units with these bytes."""
         told = self.told
-        steps = [None] * len(numbers)
+        size = len(numbers)
+        steps = [None] * size
         at = 0
-        while at < len(numbers):
+        while at < size:
             begin = at
             argument = arguments[at]
             while numbers[at] == EXTENDED_ARG:

@@ -38,7 +38,8 @@ def put_value(world, frame, argument):
 
 
 def get_element(world, frame, argument):
-    value, index = cut_off(frame.stack, 2)
+    index = frame.stack.pop()
+    value = frame.stack.pop()
     frame.stack.append(element_of(world, value, index))
 
 
@@ -63,7 +64,8 @@ def drop_element(world, frame, argument):
 
 
 def put_attribute(world, frame, argument):
-    stored, value = cut_off(frame.stack, 2)
+    value = frame.stack.pop()
+    stored = frame.stack.pop()
     store_attribute(world, value, argument, stored)
 
 
@@ -88,7 +90,8 @@ def negate(world, frame, argument):
 
 
 def operate_on_two(world, frame, argument):
-    left, right = cut_off(frame.stack, 2)
+    right = frame.stack.pop()
+    left = frame.stack.pop()
     frame.stack.append(operate(world, argument, left, right))
 
 

@@ -52,29 +52,20 @@ def line_rows(code):
     """The rows (begin, end, line) of a code's line table, neighbours of one line as one. Raises NoCode, NoTable."""
     if not isinstance(code, Code):
         raise NoCode("code")
-    table = code.lines
+    lines = lines_of_units(code)
     found = []
-    line = code.line
     begin = 0
-    at = 0
-    while at < len(table):
-        units = (table[at] & 7) + 1
-        told = None
-        if table[at] >= WITHOUT_LINE:
-            at += 1
-        elif WITH_LINE <= table[at] < WITH_LINE + MOST_UNITS:
-            more, at = signed_number(table, at + 1)
-            line += more
-            told = line
-        else:
-            raise NoTable(at)
-        found.append((begin, begin + 2 * units, told))
-        begin += 2 * units
-    return joined(found)
+    for unit, line in enumerate(lines):
+        if line != lines[begin]:
+            found.append((2 * begin, 2 * unit, lines[begin]))
+            begin = unit
+    if lines:
+        found.append((2 * begin, 2 * len(lines), lines[begin]))
+    return found
 
 
 def lines_of_units(code):
-    """The line, or None, of each unit of two bytes, as a line table that is right tells it."""
+    """The line, or None, of each unit of two bytes, as the line table of a code tells it. Raises NoTable."""
     table = code.lines
     line = code.line
     found = []
@@ -85,13 +76,15 @@ def lines_of_units(code):
         if first >= WITHOUT_LINE:
             found.extend([None] * (first - WITHOUT_LINE + 1))
             continue
-        more = table[at]
-        if more & (GOES_ON | 1):
+        if not WITH_LINE <= first < WITH_LINE + MOST_UNITS:
+            raise NoTable(at - 1)
+        if at < len(table) and table[at] < GOES_ON and not table[at] & 1:
+            # As most numbers are.
+            line += table[at] >> 1
+            at += 1
+        else:
             more, at = signed_number(table, at)
             line += more
-        else:
-            line += more >> 1
-            at += 1
         found.extend([line] * (first - WITH_LINE + 1))
     return found
 

@@ -1,14 +1,14 @@
 """Instructions told one by one, and the bytes of such."""
 
 from codewalk.arguments import FORMS
-from codewalk.cases import spread, target_of
+from codewalk.cases import target_of
 from codewalk.codes import Code
 from codewalk.cutting import cut
 from codewalk.encoding import EXTENDED_ARG, FIRST_WITH_ARGUMENT
 from codewalk.errors import NoCode, NoRows, NoTable
 from codewalk.layout import extension_of
 from codewalk.meanings import MEANINGS
-from codewalk.tables import line_rows
+from codewalk.tables import lines_of_units
 from codewalk.words import LEADING
 
 GREATEST_ARGUMENT = 4294967295
@@ -21,23 +21,31 @@ def instructions(code):
     found, wrong = cut(code.code)
     if wrong is not None:
         raise NoCode("code")
+    data = code.code
+    lines = lines_of(code)
     told = []
     for begin, word, argument, end in found:
-        meaning = meaning_of(code, word, argument, end)
-        while code.code[begin] == EXTENDED_ARG:
-            told.append((begin, "EXTENDED_ARG", code.code[begin + 1], ""))
+        line = lines[begin // 2]
+        number = data[begin]
+        while number == EXTENDED_ARG:
+            told.append((begin, "EXTENDED_ARG", data[begin + 1], "", line))
             begin += 2
-        told.append((begin, word, argument if takes_argument(word) else None, meaning))
-    lines = spread(lines_of(code), [row[0] for row in told])
-    return [(*row, line) for row, line in zip(told, lines)]
+            number = data[begin]
+            line = lines[begin // 2]
+        if number < FIRST_WITH_ARGUMENT:
+            told.append((begin, word, None, "", line))
+        else:
+            told.append((begin, word, argument, meaning_of(code, word, argument, end), line))
+    return told
 
 
 def lines_of(code):
-    """The rows of a line table, or none if it is no table."""
+    """The line of each unit of a code, or None where its line table tells none, or is no table."""
     try:
-        return line_rows(code)
+        found = lines_of_units(code)
     except NoTable:
-        return []
+        found = []
+    return found + [None] * (len(code.code) // 2 - len(found))
 
 
 def takes_argument(word):

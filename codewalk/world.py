@@ -79,10 +79,9 @@ class World:
 
     def call_function(self, function, values):
         """Call a function with what its parameters get."""
-        frame = self.frame_of(function, values, None if function.plan.flags else {})
-        if function.plan.flags & GENERATOR:
-            return Generator(frame, function.plan.path)
-        return self.run_frame(frame)
+        plan = function.plan
+        frame = self.frame_of(function, values, None if plan.flags else {})
+        return Generator(frame, plan.path) if plan.flags & GENERATOR else self.run_frame(frame)
 
     def run_body(self, function, names):
         """Run the body of a class with the dict of its names."""
