@@ -11,20 +11,21 @@ BACKWARD = {"JUMP_BACKWARD": True, "JUMP_BACKWARD_NO_INTERRUPT": True}
 class Case:
     """A code whose bytes could be cut into instructions."""
 
-    def __init__(self, code, instructions):
+    def __init__(self, code, begins, words, arguments):
         self.code = code
-        self.begins = [begin for begin, _, _, _ in instructions]
-        self.words = [word for _, word, _, _ in instructions]
-        self.arguments = [argument for _, _, argument, _ in instructions]
+        self.begins = begins
+        self.words = words
+        self.arguments = arguments
         # The number of the instruction that begins at each offset.
-        self.places = {begin: at for at, begin in enumerate(self.begins)}
+        self.places = {begin: at for at, begin in enumerate(begins)}
         # Where jumps lead, in bytes.
         self.targets = [
-            target_of(word, argument, end) if word in LEADING else None for _, word, argument, end in instructions
+            target_of(word, argument, end) if word in LEADING else None
+            for word, argument, end in zip(words, arguments, [*begins[1:], len(code.code)])
         ]
         # The rows of the exception table, and the one of each instruction, when it is known to be a table.
         self.rows = []
-        self.handlers = [None] * len(instructions)
+        self.handlers = [None] * len(begins)
 
     def word_at(self, at):
         """The word of an instruction, or None where there is none."""

@@ -8,29 +8,31 @@ MOST_EXTENDED = 3
 def cut(data):
     """The instructions of bytes, and where they cannot be cut any further, or None if that is nowhere.
 
-    An instruction is a tuple (where it begins, its word, its whole argument, where it ends with its caches).
+    They are three lists: where each of them begins, their words, and their whole arguments. Each ends, with its caches,
+    where the next one begins.
     """
-    found = []
+    begins, words, arguments = [], [], []
     size = len(data)
     begin = 0
+    wrong = None if data else 0
     while begin < size:
         at = begin
         argument = 0
-        number = data[at]
-        if number not in WORDS:
+        if data[at] not in WORDS:
             at, argument = behind_extension(data, at)
-            if at == begin or at > begin + 2 * MOST_EXTENDED or data[begin + 1] == 0:
-                return (found, begin)
-            if at >= size or data[at] not in WORDS:
-                return (found, begin)
-            number = data[at]
-        word, units = WORDS[number]
+            if not 0 < at - begin <= 2 * MOST_EXTENDED or data[begin + 1] == 0 or at >= size or data[at] not in WORDS:
+                wrong = begin
+                break
+        word, units = WORDS[data[at]]
         end = at + 2 * units
         if end > size or (units > 1 and any(data[at + 2:end])):
-            return (found, begin)
-        found.append((begin, word, argument | data[at + 1], end))
+            wrong = begin
+            break
+        begins.append(begin)
+        words.append(word)
+        arguments.append(argument | data[at + 1])
         begin = end
-    return (found, None if found else 0)
+    return (begins, words, arguments, wrong)
 
 
 def behind_extension(data, at):

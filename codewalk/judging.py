@@ -19,10 +19,10 @@ def judged(code):
     """"right", or what is wrong first, as a tuple (word, offset). Raises NoCode."""
     if not isinstance(code, Code):
         raise NoCode("code")
-    instructions, wrong = cut(code.code)
+    begins, words, arguments, wrong = cut(code.code)
     if wrong is not None:
         return ("bytes", wrong)
-    case = Case(code, instructions)
+    case = Case(code, begins, words, arguments)
     for look in STEPS:
         fault = look(case)
         if fault is not None:

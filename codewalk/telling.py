@@ -18,13 +18,13 @@ def instructions(code):
     """The instructions of a code as tuples (offset, word, argument, meaning, line). Raises NoCode."""
     if not isinstance(code, Code):
         raise NoCode("code")
-    found, wrong = cut(code.code)
+    data = code.code
+    begins, words, arguments, wrong = cut(data)
     if wrong is not None:
         raise NoCode("code")
-    data = code.code
     lines = lines_of(code)
     told = []
-    for begin, word, argument, end in found:
+    for begin, word, argument, end in zip(begins, words, arguments, [*begins[1:], len(data)]):
         line = lines[begin // 2]
         number = data[begin]
         while number == EXTENDED_ARG:
