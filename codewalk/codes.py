@@ -69,9 +69,16 @@ def are_equal(one, other):
         for mine, its in zip(one.constants, other.constants):
             if isinstance(mine, Code) and isinstance(its, Code):
                 waiting.append((mine, its))
-            elif isinstance(mine, Code) or isinstance(its, Code) or told_constants((mine,)) != told_constants((its,)):
+            elif not is_same_constant(mine, its):
                 return False
     return True
+
+
+def is_same_constant(one, other):
+    """Whether two constants, not both of them codes, are of one kind and equal."""
+    if isinstance(one, tuple):
+        return isinstance(other, tuple) and told_constants(one) == told_constants(other)
+    return isinstance(one, bool) == isinstance(other, bool) and one == other
 
 
 def number_of(value, field):
