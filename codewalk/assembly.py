@@ -42,17 +42,15 @@ def head_of(scope):
 
 
 def flags_of(scope):
-    if not scope.is_function():
+    if not scope.function:
         return 0
+    _, _, rest, more = scope.taken
     flags = FUNCTION
-    if scope.taken[2] is not None:
+    if rest is not None:
         flags |= WITH_REST
-    if scope.taken[3] is not None:
+    if more is not None:
         flags |= WITH_MORE
-    around = scope.around
-    while around is not None and not around.is_function():
-        around = around.around
-    if around is not None:
+    if scope.nested:
         flags |= NESTED
     return flags | GENERATOR if is_generator(scope) else flags
 

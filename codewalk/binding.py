@@ -12,6 +12,9 @@ class Scope:
     def __init__(self, word, name, number, around, line):
         self.word = word
         self.name = name
+        # Whether it is a function scope, and whether one is around it.
+        self.function = word in FUNCTION_WORDS
+        self.nested = around is not None and (around.function or around.nested)
         self.number = number
         self.around = around
         self.line = line
@@ -35,7 +38,7 @@ class Scope:
         self.content = None
 
     def is_function(self):
-        return self.word in FUNCTION_WORDS
+        return self.function
 
     def is_comprehension(self):
         return self.word in COMPREHENSION_WORDS
@@ -64,7 +67,7 @@ def path_of(name, around):
     """The path of a scope that is opened in another one."""
     if around is None or around.word == "program" or name in around.shared:
         return name
-    if around.is_function():
+    if around.function:
         return f"{around.path}.<locals>.{name}"
     return f"{around.path}.{name}"
 
@@ -73,6 +76,8 @@ def take_parameters(walk, parameters):
     """Bind the parameters of the scope that has just been entered."""
     scope = walk.scope
     names, _, rest, only, _, more = parameters
+    if not names and not only and rest is None and more is None:
+        return
     scope.taken = (tuple(names), tuple(only), rest, more)
     for name in [*names, *only, rest, more]:
         if name in scope.parameters:

@@ -9,13 +9,13 @@ def call_value(world, called, values, keywords):
     """The result of a call."""
     if isinstance(called, Function):
         return world.call_function(called, bound(world, called, values, keywords))
-    if isinstance(called, Method):
-        return call_value(world, called.function, [called.owner, *values], keywords)
     if isinstance(called, Builtin):
         if keywords:
             world.fail("TypeError")
         action = called.action
         return action(world, called.owner, values)
+    if isinstance(called, Method):
+        return call_value(world, called.function, [called.owner, *values], keywords)
     if isinstance(called, Class):
         return make_instance(world, called, values, keywords)
     told = world.special(called, world.named_call) if isinstance(called, Instance) else None

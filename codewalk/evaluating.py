@@ -177,9 +177,12 @@ def evaluate_call(walker, frame, node):
     _, function, arguments, keywords = node
     names = tuple([name for name, _ in keywords])
     values = [value for _, value in keywords]
-    if not has_stars(arguments) and None not in names:
-        push(frame, [to(function), *all_of(arguments), *all_of(values), (call, (len(arguments) + len(values), names))])
-        return
+    push(frame, [to(function), *all_of(arguments), *all_of(values), (call, (len(arguments) + len(values), names))])
+
+
+def evaluate_spread_call(walker, frame, node):
+    """Evaluate a call with Starred arguments or `**`."""
+    _, function, arguments, keywords = node
     if len(arguments) == 1 and has_stars(arguments):
         # It is gone through at the call.
         row = to(arguments[0][1])
@@ -256,8 +259,8 @@ def choose_test(walker, frame, node):
 EXPRESSIONS = {
     "Constant": evaluate_constant, "Name": evaluate_name, "Tuple": evaluate_tuple, "List": evaluate_list,
     "Dict": evaluate_dict, "BinOp": evaluate_binary, "UnaryOp": evaluate_unary, "BoolOp": evaluate_junction,
-    "Compare": evaluate_comparison, "IfExp": evaluate_choice, "Call": evaluate_call, "Attribute": evaluate_attribute,
-    "Subscript": evaluate_subscript, "Lambda": evaluate_lambda, "NamedExpr": evaluate_named,
-    "ListComp": evaluate_comprehension, "DictComp": evaluate_comprehension, "GeneratorExp": evaluate_comprehension,
-    "Yield": evaluate_yield, "YieldFrom": evaluate_yield_from,
+    "Compare": evaluate_comparison, "IfExp": evaluate_choice, "Call": evaluate_call, "SpreadCall": evaluate_spread_call,
+    "Attribute": evaluate_attribute, "Subscript": evaluate_subscript, "Lambda": evaluate_lambda,
+    "NamedExpr": evaluate_named, "ListComp": evaluate_comprehension, "DictComp": evaluate_comprehension,
+    "GeneratorExp": evaluate_comprehension, "Yield": evaluate_yield, "YieldFrom": evaluate_yield_from,
 }

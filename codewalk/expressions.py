@@ -235,9 +235,6 @@ def write_yield_from(out, node):
 
 def write_call(out, node):
     _, function, arguments, keywords = node
-    if has_stars(arguments) or any([name is None for name, _ in keywords]):
-        write_call_of_rows(out, node)
-        return
     if function[0] == "Attribute":
         write(out, function[1])
         out.put("LOAD_ATTR", (function[2], True))
@@ -245,15 +242,15 @@ def write_call(out, node):
         write(out, function)
         out.put("PUSH_NULL")
     write_row(out, arguments)
-    write_row(out, [value for _, value in keywords])
     if keywords:
+        write_row(out, [value for _, value in keywords])
         out.put("LOAD_CONST", tuple([name for name, _ in keywords]))
         out.put("CALL_KW", len(arguments) + len(keywords))
     else:
         out.put("CALL", len(arguments))
 
 
-def write_call_of_rows(out, node):
+def write_spread_call(out, node):
     """Write a call with Starred arguments or `**`."""
     _, function, arguments, keywords = node
     write(out, function)
@@ -303,8 +300,8 @@ def write_piece(out, keywords):
 EXPRESSIONS = {
     "Constant": write_constant, "Name": write_name, "Tuple": write_tuple, "List": write_list, "Dict": write_dict,
     "BinOp": write_binary, "UnaryOp": write_unary, "BoolOp": write_junction, "Compare": write_comparison,
-    "IfExp": write_choice, "Call": write_call, "Attribute": write_attribute, "Subscript": write_subscript,
-    "Lambda": write_lambda, "NamedExpr": write_named, "ListComp": write_comprehension,
+    "IfExp": write_choice, "Call": write_call, "SpreadCall": write_spread_call, "Attribute": write_attribute,
+    "Subscript": write_subscript, "Lambda": write_lambda, "NamedExpr": write_named, "ListComp": write_comprehension,
     "DictComp": write_comprehension, "GeneratorExp": write_comprehension, "Yield": write_yield,
     "YieldFrom": write_yield_from,
 }

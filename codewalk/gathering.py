@@ -254,8 +254,10 @@ def visit_class(walk, node):
 
 
 def visit_defaults(walk, parameters):
-    visit_row(walk, parameters[1])
-    for value in parameters[4]:
+    _, defaults, _, _, onlydefaults, _ = parameters
+    if defaults:
+        visit_row(walk, defaults)
+    for value in onlydefaults:
         visit_optional(walk, value)
 
 

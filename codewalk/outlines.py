@@ -15,16 +15,14 @@ class Outline(Plan):
 
     def __init__(self, scope):
         names, only, _, _ = scope.taken
-        Plan.__init__(self, scope.name, scope.path, flags_of(scope), (*names, *only), len(names))
+        Plan.__init__(self, scope.name, scope.path, flags_of(scope), names + only, len(names))
         self.scope = scope
         # All parameters, with rest and more.
-        self.parameters = list(scope.parameters)
-        self.cells = cells_of(scope)
-        self.frees = sorted(scope.frees)
-        function = scope.is_function()
-        # How each name is looked for.
-        self.endings = {name: FUNCTION_ENDINGS[kind] if function else OTHER_ENDINGS[kind]
-                        for name, kind in scope.kinds.items()}
+        self.parameters = scope.parameters
+        self.cells = cells_of(scope) if scope.cells else ()
+        self.frees = sorted(scope.frees) if scope.frees else ()
+        # Whether it rests in the midst of expressions.
+        self.yields = scope.yields
 
 
 class Activation:
@@ -33,12 +31,15 @@ class Activation:
     def __init__(self, plan, values, names, cells):
         self.plan = plan
         self.path = plan.path
+        # The kinds of names.
+        self.kinds = plan.scope.kinds
         self.stack = []
         self.tasks = []
+        # None in a function.
         self.names = names
         # The locals that have a value, by name, and the cells.
-        self.locals = {name: value for name, value in zip(plan.parameters, values)}
-        self.cells = {name: cell for name, cell in zip(plan.frees, cells)}
+        self.locals = {name: value for name, value in zip(plan.parameters, values)} if values else {}
+        self.cells = {name: cell for name, cell in zip(plan.frees, cells)} if cells else {}
         for name in plan.cells:
             self.cells[name] = Cell(self.locals[name] if name in self.locals else Nothing())
         self.line = plan.scope.line
@@ -56,21 +57,18 @@ def push(frame, tasks):
 
 def load(walker, frame, name):
     """The value of a name."""
-    ending = frame.plan.endings[name]
-    if ending == "FAST":
-        if name not in frame.locals:
-            walker.fail("UnboundLocalError")
-        return frame.locals[name]
-    if ending == "DEREF":
-        # A class may have a name that is free in it by itself.
-        if frame.names is not None and name in frame.names:
-            return frame.names[name]
-        return content_of(walker, frame, name)
-    return load_name(walker, frame, name) if ending == "NAME" else walker.global_of(name)
-
-
-def load_name(walker, frame, name):
-    return frame.names[name] if name in frame.names else walker.global_of(name)
+    kind = frame.kinds[name]
+    names = frame.names
+    if names is None:
+        if kind == "local":
+            if name not in frame.locals:
+                walker.fail("UnboundLocalError")
+            return frame.locals[name]
+        return walker.global_of(name) if kind == "implicit" or kind == "global" else content_of(walker, frame, name)
+    # A class may have a name that is free in it by itself.
+    if kind != "global" and name in names:
+        return names[name]
+    return content_of(walker, frame, name) if kind == "free" else walker.global_of(name)
 
 
 def content_of(walker, frame, name):
@@ -81,8 +79,14 @@ def content_of(walker, frame, name):
     return value
 
 
+def ending_of(frame, name):
+    """How a name is stored and deleted."""
+    kind = frame.kinds[name]
+    return FUNCTION_ENDINGS[kind] if frame.names is None else OTHER_ENDINGS[kind]
+
+
 def store(walker, frame, name, value):
-    ending = frame.plan.endings[name]
+    ending = ending_of(frame, name)
     if ending == "FAST":
         frame.locals[name] = value
     elif ending == "DEREF":
@@ -95,7 +99,7 @@ def store(walker, frame, name, value):
 
 
 def delete(walker, frame, name):
-    ending = frame.plan.endings[name]
+    ending = ending_of(frame, name)
     if ending == "FAST":
         if name not in frame.locals:
             walker.fail("UnboundLocalError")

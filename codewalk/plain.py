@@ -7,7 +7,7 @@ DEEPEST = 10
 
 def plain(value, around=0):
     """What is shown of a value that lies within so many others."""
-    if value is None or isinstance(value, (int, str)):
+    if value is None or isinstance(value, int) or isinstance(value, str):
         return value
     if around == DEEPEST:
         return ("deep",)

@@ -2,6 +2,7 @@
 
 What comes out has the forms of trees, with tuples as constants, too, but for these:
 - what is missing in a Return, a Yield or a Slice is the constant None;
+- a Call with Starred arguments or `**` is a SpreadCall;
 - where a scope is opened, its number stands last; parameters are the defaults, the names of the onlydefaults that are
   given, and these; a comprehension is its word, the value of its first clause and the number;
 - what the scope itself runs is put into its `content`: statements, the value of a Lambda, or (values, clauses) of a
@@ -10,7 +11,7 @@ What comes out has the forms of trees, with tuples as constants, too, but for th
 
 from codewalk.errors import NoProgram
 from codewalk.folding import folded_binary, folded_unary
-from codewalk.shapes import are_constants, constants_of, is_constant
+from codewalk.shapes import are_constants, constants_of, has_stars, is_constant
 
 NONE = ("Constant", None)
 
@@ -145,11 +146,14 @@ def choice_of(state, node):
 def call_of(state, node):
     called = value_of(state, node[1])
     arguments = values_of(state, node[2])
+    word = "SpreadCall" if has_stars(arguments) else "Call"
+    if not node[3]:
+        return (word, called, arguments, [])
     keywords = [(name, value_of(state, value)) for name, value in node[3]]
     names = [name for name, _ in keywords if name is not None]
     if len(set(names)) < len(names):
         state.refuse("twice")
-    return ("Call", called, arguments, keywords)
+    return (word if len(names) == len(keywords) else "SpreadCall", called, arguments, keywords)
 
 
 def attribute_of(state, node):
@@ -208,6 +212,8 @@ def starred_of(state, node):
 
 def parameters_of(state, parameters):
     defaults = values_of(state, parameters[1])
+    if not parameters[3]:
+        return (defaults, (), [])
     given = [(name, value) for name, value in zip(parameters[3], parameters[4]) if value is not None]
     return (defaults, tuple([name for name, _ in given]), [value_of(state, value) for _, value in given])
 

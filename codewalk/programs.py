@@ -37,7 +37,8 @@ class Program(Plan):
     """
 
     def __init__(self, code):
-        Plan.__init__(self, code.name, code.path, code.flags, code.slots[:code.argcount + code.onlycount], code.argcount)
+        taken = code.slots[:code.argcount + code.onlycount]
+        Plan.__init__(self, code.name, code.path, code.flags, taken, code.argcount)
         self.code = code
         self.constants = []
         # Tuples: what an instruction does, its argument made ready, the line that it tells, or None, and the next one.
@@ -79,8 +80,8 @@ class Program(Plan):
 
     def is_silent(self, at):
         """Whether an exception that comes out of an instruction leaves no trace."""
-        number = self.code.code[2 * at]
-        return number == RERAISE or number == CLEANUP_THROW or number == RAISE_VARARGS and self.code.code[2 * at + 1] == 0
+        number, argument = self.code.code[2 * at:2 * at + 2]
+        return number == RERAISE or number == CLEANUP_THROW or (number == RAISE_VARARGS and argument == 0)
 
 
 def told_lines(code, lines):

@@ -20,12 +20,20 @@ def get_attribute(walker, frame, name):
 def make_function(walker, frame, part):
     """Make the function of a scope with so many defaults and keyword defaults for these names."""
     number, many, names = part
+    named = {name: value for name, value in zip(names, cut_off(frame.stack, len(names)))}
+    given = tuple(cut_off(frame.stack, many))
+    frame.stack.append(made_function(walker, frame, number, given, named))
+
+
+def made_function(walker, frame, number, given, named):
+    """The function of a scope with these defaults and keyword defaults."""
     outline = walker.outlines[number]
     function = Function(outline)
-    function.onlydefaults = {name: value for name, value in zip(names, cut_off(frame.stack, len(names)))}
-    function.defaults = tuple(cut_off(frame.stack, many))
-    function.cells = tuple([frame.cells[name] for name in outline.frees])
-    frame.stack.append(function)
+    function.defaults = given
+    function.onlydefaults = named
+    if outline.frees:
+        function.cells = tuple([frame.cells[name] for name in outline.frees])
+    return function
 
 
 def call_on_top(walker, frame, part):

@@ -16,8 +16,6 @@ def settled(tree):
     found = gathered(tree)
     for scope in found:
         set_kinds(scope)
-    for scope in found:
-        pass_frees(scope)
     return found
 
 
@@ -27,51 +25,54 @@ def told(scope):
 
 
 def set_kinds(scope):
-    """Set the kinds of the names that a scope binds, uses or declares; the scopes around have theirs already."""
-    for name in {**scope.shared, **scope.borrowed, **scope.bound, **scope.used}:
-        scope.kinds[name] = kind_of(name, scope)
+    """Set the kinds of the names that a scope binds, uses or declares; the scopes around have theirs already.
+
+    Those that are free in it become cells where they belong.
+    """
+    kinds = scope.kinds
+    for name in scope.shared:
+        kinds[name] = "global"
+    if scope.borrowed:
+        borrow(scope)
+    for name in scope.bound:
+        if name not in kinds:
+            kinds[name] = "local"
+    for name in scope.used:
+        if name not in kinds:
+            if is_owned(name, scope):
+                kinds[name] = "free"
+                pass_free(name, scope)
+            else:
+                kinds[name] = "implicit"
+
+
+def borrow(scope):
+    """Set the kinds of the names that a scope has of a scope around because it says so."""
     for name, line in scope.borrowed.items():
-        if owner(name, scope) is None:
+        if not is_owned(name, scope):
             raise NoProgram(line, "unbound")
+        if name not in scope.kinds:
+            scope.kinds[name] = "free"
+            pass_free(name, scope)
 
 
-def kind_of(name, scope):
-    """The kind of a name, as far as the scopes inside do not make it a cell."""
-    if name in scope.shared:
-        return "global"
-    if name in scope.borrowed:
-        return "free"
-    if name in scope.bound:
-        return "local"
-    return "implicit" if owner(name, scope) is None else "free"
-
-
-def owner(name, scope):
-    """The function scope around whose name this is if a scope only uses it, or None."""
+def is_owned(name, scope):
+    """Whether a function scope around has a name that a scope only uses."""
     around = scope.around
     while around is not None:
-        if around.is_function():
-            kind = around.kinds.get(name)
-            if kind == "global":
-                return None
-            if kind == "local":
-                return around
+        # What is free or implicit there has been looked for further around.
+        if around.function and name in around.kinds:
+            kind = around.kinds[name]
+            return kind == "local" or kind == "free" or kind == "cell"
         around = around.around
-    return None
-
-
-def pass_frees(scope):
-    """Make the free names of a scope cells where they belong, and free in all scopes between."""
-    free = [name for name, kind in scope.kinds.items() if kind == "free"]
-    for name in free:
-        pass_free(name, scope)
+    return False
 
 
 def pass_free(name, scope):
-    """Carry a free name outward, to the scope whose name it is; there is one, or it would be unbound."""
+    """Carry a free name outward, to the scope whose name it is, and make it free in all scopes between."""
     scope.frees[name] = True
     around = scope.around
-    while not (around.is_function() and around.kinds.get(name) in ("local", "cell")):
+    while not (around.function and around.kinds.get(name) in ("local", "cell")):
         around.frees[name] = True
         if name not in around.kinds:
             around.kinds[name] = "free"

@@ -6,7 +6,10 @@ def is_constant(node):
 
 
 def are_constants(row):
-    return all([node[0] == "Constant" for node in row])
+    for node in row:
+        if node[0] != "Constant":
+            return False
+    return True
 
 
 def constants_of(row):
@@ -15,7 +18,17 @@ def constants_of(row):
 
 
 def has_stars(row):
-    return any([node[0] == "Starred" for node in row])
+    for node in row:
+        if node[0] == "Starred":
+            return True
+    return False
+
+
+def are_names(row):
+    for node in row:
+        if node[0] != "Name":
+            return False
+    return True
 
 
 def has_slice(subscript):

@@ -3,14 +3,15 @@
 from codewalk.assigning import assign
 from codewalk.blocks import Block, end_block
 from codewalk.comparing import put_pair
+from codewalk.direct import value_of
 from codewalk.encoding import GENERATOR
 from codewalk.evaluating import all_of, test, to
-from codewalk.executing import body_of, give_back
+from codewalk.executing import give_back, push_body
 from codewalk.going import iterator_of, next_of
 from codewalk.names import special
-from codewalk.outlines import load_name, push
+from codewalk.outlines import push
 from codewalk.results import give
-from codewalk.stacks import cut_off, pop_top, put_value
+from codewalk.stacks import cut_off, pop_top
 from codewalk.values import Dict, List
 
 
@@ -31,28 +32,44 @@ class Clause(Block):
 def begin(walker, frame):
     """Put the tasks of the scope of a frame there."""
     scope = frame.plan.scope
-    tasks = []
+    tasks = frame.tasks
+    word = scope.word
+    if word == "lambda":
+        tasks.append((execute_lambda, scope.content))
+    elif word == "function" or word == "program" or word == "class":
+        tasks.append((end_body, None))
+        push_body(frame, scope.content)
+        if word == "class":
+            tasks.append((store_class_names, None))
+    else:
+        push(frame, [(tell_begin, None), (begin_comprehension, word), (give_back, None)])
     if frame.plan.flags & GENERATOR:
         # What is sent first.
         tasks.append((pop_top, None))
-    if scope.word == "lambda":
-        tasks.extend([(tell_begin, None), to(scope.content), (give_back, None)])
-    elif scope.is_comprehension():
-        tasks.extend([(tell_begin, None), (begin_comprehension, scope.word), (give_back, None)])
-    else:
-        if scope.word == "class":
-            tasks.extend([(tell_begin, None), (store_class_names, None)])
-        tasks.extend([*body_of(scope.content), (put_value, None), (give_back, None)])
-    push(frame, tasks)
 
 
 def tell_begin(walker, frame, part):
     walker.tell(frame, frame.line)
 
 
+def execute_lambda(walker, frame, node):
+    walker.tell(frame, frame.line)
+    if frame.plan.yields:
+        push(frame, [to(node), (give_back, None)])
+    else:
+        walker.finish(frame, value_of(walker, frame, node))
+
+
+def end_body(walker, frame, part):
+    walker.finish(frame, None)
+
+
 def store_class_names(walker, frame, part):
-    frame.names[special("module")] = load_name(walker, frame, special("name"))
-    frame.names[special("qualname")] = frame.path
+    walker.tell(frame, frame.line)
+    names = frame.names
+    named = special("name")
+    names[special("module")] = names[named] if named in names else walker.global_of(named)
+    names[special("qualname")] = frame.path
 
 
 def begin_comprehension(walker, frame, word):

@@ -8,7 +8,7 @@ from codewalk.plain import plain
 from codewalk.preparing import prepare
 from codewalk.scopes import settled
 from codewalk.turning import begin
-from codewalk.values import ENDED, NEW, RUNS, Raised
+from codewalk.values import ENDED, Function, NEW, RUNS, Raised
 from codewalk.world import World, is_limit
 
 
@@ -19,7 +19,7 @@ def walk(tree, most):
     if not is_limit(most):
         raise NoNumber(most)
     walker = Walker(most, scopes)
-    return walker.whole(walker.framed(walker.outlines[0], [], walker.shared, ()))
+    return walker.whole(walker.frame_of(Function(walker.outlines[0]), [], walker.shared))
 
 
 class Walker(World):
@@ -29,13 +29,10 @@ class Walker(World):
         World.__init__(self, most)
         self.outlines = [Outline(scope) for scope in scopes]
 
-    def framed(self, outline, values, names, cells):
-        frame = Activation(outline, values, names, cells)
+    def frame_of(self, function, values, names):
+        frame = Activation(function.plan, values, names, function.cells)
         begin(self, frame)
         return frame
-
-    def frame_of(self, function, values, names):
-        return self.framed(function.plan, values, names, function.cells)
 
     def delegate_of(self, frame):
         _, part = frame.tasks[-1]
