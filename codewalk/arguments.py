@@ -5,10 +5,7 @@ from codewalk.encoding import COMPARISONS, OPERATORS, TRUTH
 
 
 class Draft:
-    """The bytes of a code so far, as long as no jump needs an EXTENDED_ARG, and the tables of the code.
-
-    A place is told by two numbers: the index of a byte, and how many jumps stand ahead of it.
-    """
+    """The bytes of a code so far, as long as no jump needs an EXTENDED_ARG, and the tables of the code."""
 
     def __init__(self, slots, codes):
         self.data = []
@@ -19,10 +16,10 @@ class Draft:
         self.slots = slots
         # What LOAD_CODE loads, by the numbers of scopes.
         self.codes = codes
-        # The place of each label, and for each jump where it stands, its label, and where it ends.
+        # Where each label leads, and for each jump where it stands, its label, and where it ends.
         self.labels = {}
         self.jumps = []
-        # The places where another line or another handler begins, each with this.
+        # The stretches (begin, end, what they have) that have one line, and that have one handler.
         self.lines = []
         self.handlers = []
 

@@ -7,11 +7,11 @@ from codewalk.encoding import (
 )
 from codewalk.flow import flowed
 from codewalk.generate import cells_of, is_generator, rows_of
-from codewalk.layout import Layout, extension_of
+from codewalk.layout import extension_of, put_distances
 from codewalk.preparing import prepare
 from codewalk.scopes import settled
 from codewalk.slots import numbers_of, parameters_of
-from codewalk.stack import stack_size
+from codewalk.stack import size_in_order, stack_size
 from codewalk.tables import exception_bytes, line_entries
 
 
@@ -64,11 +64,13 @@ def assembled(rows, head, codes=()):
     if word == "function" or word == "lambda":
         of_constant(draft, None)
     draw(draft, rows)
-    layout = Layout(draft)
-    lines = line_entries(layout.stretches(draft.lines), line)
-    handlers = exception_bytes(exception_rows_of(draft, layout))
+    if draft.jumps:
+        put_distances(draft)
+    lines = line_entries(draft.lines, line)
+    handlers = exception_bytes(exception_rows_of(draft)) if draft.handlers else []
+    size = stack_size(rows) if draft.labels else size_in_order(rows)
     return Code(
-        len(parameters[0]), len(parameters[1]), stack_size(rows), flags, Known(layout.data), draft.constants,
+        len(parameters[0]), len(parameters[1]), size, flags, Known(draft.data), draft.constants,
         list(draft.names), list(slots), Known(kinds_of(slots, head)), name, path, line, Known(lines), Known(handlers),
     )
 
@@ -76,20 +78,23 @@ def assembled(rows, head, codes=()):
 def draw(draft, rows):
     """Put the instructions of rows into a draft."""
     data = draft.data
-    jumps = draft.jumps
-    # No row has this line.
-    told = ()
-    guard = None
+    told = guard = None
+    # Where the lines and the handlers begin that are there now.
+    begin = entered = 0
     for word, argument, line, handler in rows:
         if word == "LABEL":
-            draft.labels[argument] = (len(data), len(jumps))
+            draft.labels[argument] = len(data)
             continue
         if line != told:
+            if len(data) > begin:
+                draft.lines.append((begin, len(data), told))
+            begin = len(data)
             told = line
-            draft.lines.append((len(data), len(jumps), line))
         if handler != guard:
+            if guard is not None:
+                draft.handlers.append((entered, len(data), guard))
+            entered = len(data)
             guard = handler
-            draft.handlers.append((len(data), len(jumps), handler))
         number, tail, action = FORMS[word]
         if action is not None:
             argument = action(draft, argument)
@@ -97,10 +102,14 @@ def draw(draft, rows):
             argument = 0
         if argument > 255:
             data.extend(extension_of(argument))
+            argument &= 255
         data.append(number)
-        data.append(argument & 255)
+        data.append(argument)
         if tail:
             data.extend(tail)
+    draft.lines.append((begin, len(data), told))
+    if guard is not None:
+        draft.handlers.append((entered, len(data), guard))
 
 
 def kinds_of(slots, head):
@@ -117,13 +126,6 @@ def kinds_of(slots, head):
     return [kinds.get(name, PLAIN) for name in slots]
 
 
-def exception_rows_of(draft, layout):
+def exception_rows_of(draft):
     """The rows (begin, end, target, depth, bool) of the exception table, in bytes, one for each stretch."""
-    found = []
-    if not draft.handlers:
-        return found
-    for begin, end, handler in layout.stretches(draft.handlers):
-        if handler is not None:
-            label, depth, wanted = handler
-            found.append((begin, end, layout.target(label), depth, wanted))
-    return found
+    return [(begin, end, draft.labels[label], depth, wanted) for begin, end, (label, depth, wanted) in draft.handlers]

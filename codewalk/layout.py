@@ -1,4 +1,4 @@
-"""Where the instructions of a code stand. How places are told, `arguments.py` says."""
+"""Where the instructions of a code stand, when its jumps have their distances."""
 
 from codewalk.encoding import EXTENDED_ARG
 
@@ -18,20 +18,42 @@ def extension_of(argument):
     return found
 
 
+def put_distances(draft):
+    """Put the distances of its jumps into a draft, and what these need."""
+    far = False
+    for at, label, end in draft.jumps:
+        distance = abs(draft.labels[label] - end) // 2
+        draft.data[at + 1] = distance
+        far = far or distance > 255
+    if far:
+        Layout(draft).spread_out(draft)
+
+
 class Layout:
-    """The bytes of a draft with the distances of its jumps, as these have grown so far."""
+    """Where the bytes of a draft stand, as its jumps have grown so far."""
 
     def __init__(self, draft):
-        self.labels = draft.labels
         self.jumps = draft.jumps
-        self.end = (len(draft.data), len(draft.jumps), None)
+        self.places = [at for at, _, _ in self.jumps]
+        # Where the labels lead in the draft, and how many jumps stand ahead of there.
+        self.labels = {label: (at, self.jumps_ahead(at)) for label, at in draft.labels.items()}
         # The distance of each jump, how many EXTENDED_ARG it has, and how many bytes of these stand ahead of it.
         self.distances = [0] * len(self.jumps)
         self.extras = [0] * len(self.jumps)
         self.shifts = [0] * (len(self.jumps) + 1)
         while self.grow():
             pass
-        self.data = self.written(draft.data) if self.jumps else draft.data
+
+    def jumps_ahead(self, at):
+        """How many jumps stand ahead of a byte."""
+        low, high = 0, len(self.places)
+        while low < high:
+            middle = (low + high) // 2
+            if self.places[middle] < at:
+                low = middle + 1
+            else:
+                high = middle
+        return low
 
     def grow(self):
         """Measure the jumps, and give those that do not fit what they need now; whether there are some."""
@@ -52,29 +74,24 @@ class Layout:
                 shifts[jump + 1] = total
         return grown
 
-    def written(self, data):
-        """The bytes of the draft with the distances in them."""
-        found = []
+    def spread_out(self, draft):
+        """Give the draft the bytes with all EXTENDED_ARG in them, and tell it where things stand there."""
+        data = []
         done = 0
-        for (at, _, _), distance in zip(self.jumps, self.distances):
-            found.extend(data[done:at])
-            if distance > 255:
-                found.extend(extension_of(distance))
-            found.append(data[at])
-            found.append(distance & 255)
+        for at, distance in zip(self.places, self.distances):
+            data.extend(draft.data[done:at])
+            data.extend([*extension_of(distance), draft.data[at], distance & 255])
             done = at + 2
-        found.extend(data[done:])
-        return found
+        data.extend(draft.data[done:])
+        draft.data = data
+        draft.labels = {label: at + self.shifts[ahead] for label, (at, ahead) in self.labels.items()}
+        draft.lines = self.moved(draft.lines)
+        draft.handlers = self.moved(draft.handlers)
 
-    def stretches(self, marks):
-        """What begins at places that are marked, one behind the other, as rows (begin, end, it), in bytes."""
+    def moved(self, stretches):
+        """Stretches of the draft where they stand now."""
         shifts = self.shifts
         return [
-            (at + shifts[ahead], end + shifts[behind], begun)
-            for (at, ahead, begun), (end, behind, _) in zip(marks, [*marks[1:], self.end])
+            (begin + shifts[self.jumps_ahead(begin)], end + shifts[self.jumps_ahead(end)], held)
+            for begin, end, held in stretches
         ]
-
-    def target(self, label):
-        """Where a label leads."""
-        at, ahead = self.labels[label]
-        return at + self.shifts[ahead]

@@ -1,6 +1,6 @@
 """The locals of a code, in the order of their numbers."""
 
-from codewalk.words import LOCAL, LOCAL_PAIRS
+from codewalk.words import LOCAL
 
 
 def parameters_of(head):
@@ -15,15 +15,10 @@ def parameters_of(head):
 
 def numbers_of(rows, head):
     """The number of each local: parameters, other names in the order of the rows, cells, free names."""
-    cells, frees = head[5], head[6]
+    shared = [*head[5], *head[6]]
+    apart = {name: True for name in shared}
     numbers = {}
-    for name in parameters_of(head):
-        numbers[name] = len(numbers)
-    shared = {name: True for name in [*cells, *frees]}
-    for name in locals_in(rows):
-        if name not in numbers and name not in shared:
-            numbers[name] = len(numbers)
-    for name in shared:
+    for name in [*parameters_of(head), *[name for name in locals_in(rows) if name not in apart], *shared]:
         if name not in numbers:
             numbers[name] = len(numbers)
     return numbers
@@ -32,9 +27,9 @@ def numbers_of(rows, head):
 def locals_in(rows):
     """The locals that rows name, as often as they do."""
     found = []
-    for row in rows:
-        if row[0] in LOCAL:
-            found.append(row[1])
-        elif row[0] in LOCAL_PAIRS:
-            found.extend(row[1])
+    for named in [row[1] for row in rows if row[0] in LOCAL]:
+        if isinstance(named, tuple):
+            found.extend(named)
+        else:
+            found.append(named)
     return found

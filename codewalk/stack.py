@@ -33,6 +33,20 @@ def stack_size(rows):
     return greatest
 
 
+def size_in_order(rows):
+    """The same for rows without labels, of which none leads elsewhere than to the next one."""
+    greatest = 1
+    depth = 0
+    for row in rows:
+        word = row[0]
+        depth += EFFECTS[word] if word in EFFECTS else effect_of(word, row[1])
+        if depth > greatest:
+            greatest = depth
+        if word in LEAVING:
+            break
+    return greatest
+
+
 def size_along_ways(rows):
     """The same, way by way, for rows of which some are led to from further on alone."""
     places = places_of(rows)

@@ -61,20 +61,16 @@ QUIET = {
     "SWAP": True, "UNARY_NOT": True,
 }
 
-# The words whose argument is a local, and those whose argument are two of them.
+# The words whose argument is a local, or a tuple of two of them.
 LOCAL = {
     "DELETE_DEREF": True, "DELETE_FAST": True, "LOAD_CLOSURE": True, "LOAD_DEREF": True, "LOAD_FAST": True,
     "LOAD_FAST_CHECK": True, "LOAD_FROM_DICT_OR_DEREF": True, "MAKE_CELL": True, "STORE_DEREF": True,
-    "STORE_FAST": True,
+    "STORE_FAST": True, "LOAD_FAST_LOAD_FAST": True, "STORE_FAST_LOAD_FAST": True, "STORE_FAST_STORE_FAST": True,
 }
-LOCAL_PAIRS = {"LOAD_FAST_LOAD_FAST": True, "STORE_FAST_LOAD_FAST": True, "STORE_FAST_STORE_FAST": True}
 
 
 def effect_of(word, argument):
-    """How many entries more there are on the stack behind a row."""
-    plain = EFFECTS.get(word)
-    if plain is not None:
-        return plain
+    """How many entries more there are on the stack behind a row with one of the words that EFFECTS does not tell."""
     if word in COUNTED_EFFECTS:
         plain, each = COUNTED_EFFECTS[word]
         return plain + each * argument
