@@ -2,11 +2,9 @@
 
 from codewalk.arguments import Draft, FORMS, of_constant
 from codewalk.codes import Code, Known
-from codewalk.encoding import (
-    CELL, FREE, FUNCTION, GENERATOR, NESTED, PARAMETER_CELL, PLAIN, WITH_MORE, WITH_REST,
-)
+from codewalk.encoding import CELL, FREE, PARAMETER_CELL, PLAIN
 from codewalk.flow import flowed
-from codewalk.generate import cells_of, is_generator, rows_of
+from codewalk.generate import rows_of
 from codewalk.layout import extension_of, put_distances
 from codewalk.preparing import prepare
 from codewalk.scopes import settled
@@ -38,21 +36,7 @@ def head_of(scope):
     """The head of the code of a scope."""
     cells = tuple(sorted(scope.cells))
     frees = tuple(sorted(scope.frees))
-    return (scope.word, scope.name, scope.path, scope.line, scope.taken, cells, frees, flags_of(scope))
-
-
-def flags_of(scope):
-    if not scope.function:
-        return 0
-    _, _, rest, more = scope.taken
-    flags = FUNCTION
-    if rest is not None:
-        flags |= WITH_REST
-    if more is not None:
-        flags |= WITH_MORE
-    if scope.nested:
-        flags |= NESTED
-    return flags | GENERATOR if is_generator(scope) else flags
+    return (scope.word, scope.name, scope.path, scope.line, scope.taken, cells, frees, scope.flags)
 
 
 def assembled(rows, head, codes=()):

@@ -1,5 +1,6 @@
 """Scopes, and what binds and declares names in them. Where a tree is gone through, a Walk is told of it."""
 
+from codewalk.encoding import FUNCTION, GENERATOR, NESTED, WITH_MORE, WITH_REST
 from codewalk.errors import NoProgram
 
 FUNCTION_WORDS = ("function", "lambda", "list", "dict", "generator")
@@ -15,6 +16,8 @@ class Scope:
         # Whether it is a function scope, and whether one is around it.
         self.function = word in FUNCTION_WORDS
         self.nested = around is not None and (around.function or around.nested)
+        # The flags of its code, as far as is known.
+        self.flags = (FUNCTION | NESTED if self.nested else FUNCTION) if self.function else 0
         self.number = number
         self.around = around
         self.line = line
@@ -42,6 +45,11 @@ class Scope:
 
     def is_comprehension(self):
         return self.word in COMPREHENSION_WORDS
+
+    def rest(self):
+        """Tell that its code is that of a generator."""
+        if self.function:
+            self.flags |= GENERATOR
 
 
 class Walk:
@@ -79,6 +87,10 @@ def take_parameters(walk, parameters):
     if not names and not only and rest is None and more is None:
         return
     scope.taken = (tuple(names), tuple(only), rest, more)
+    if rest is not None:
+        scope.flags |= WITH_REST
+    if more is not None:
+        scope.flags |= WITH_MORE
     for name in [*names, *only, rest, more]:
         if name in scope.parameters:
             raise NoProgram(walk.line, "again")

@@ -118,6 +118,7 @@ def visit_yield(walk, node):
     if scope.is_comprehension():
         raise NoProgram(walk.line, "inside")
     scope.yields = True
+    scope.rest()
     visit_optional(walk, node[1])
 
 
@@ -143,6 +144,8 @@ def visit_comprehension(walk, node):
     scope.taken = ((".0",), (), None, None)
     scope.parameters[".0"] = True
     scope.bound[".0"] = True
+    if word == "generator":
+        scope.rest()
     for clause in clauses:
         for turned in names_of(clause[0]):
             scope.turned[turned] = True

@@ -1,5 +1,6 @@
 """The rows of all codes of a program."""
 
+from codewalk.encoding import GENERATOR
 from codewalk.expressions import write, write_target, write_test
 from codewalk.names import special
 from codewalk.preparing import prepare
@@ -19,7 +20,7 @@ def rows_of(scope, scopes):
     out = Writer(scope, scopes)
     if scope.word != "program":
         out.line = scope.line
-    generator = is_generator(scope)
+    generator = scope.flags & GENERATOR != 0
     write_begin(out, generator)
     if scope.word == "lambda":
         write(out, scope.content)
@@ -38,10 +39,6 @@ def rows_of(scope, scopes):
         out.put_bare("CALL_INTRINSIC_1", 3)
         out.put_bare("RERAISE", 1)
     return out.rows
-
-
-def is_generator(scope):
-    return scope.word == "generator" or scope.yields
 
 
 def write_begin(out, generator):

@@ -7,6 +7,7 @@ OPERATORS = {
     "|": True, "^": True,
 }
 SIGNS = {"-": True, "~": True, "not": True}
+NO_PARAMETERS = ((), (), None, (), (), None)
 COMPARISONS = {
     "==": True, "!=": True, "<": True, "<=": True, ">": True, ">=": True, "is": True, "is not": True, "in": True,
     "not in": True,
@@ -221,6 +222,8 @@ def look_at_lambda(node, look, room):
 
 def look_at_parameters(parameters, look, room):
     """Look at the parameters of a Lambda or a Function, a tuple of their length."""
+    if parameters == NO_PARAMETERS:
+        return None
     names, defaults, rest, only, onlydefaults, more = parameters
     if not has_names(names, look) or not has_names(only, look):
         return []

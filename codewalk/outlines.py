@@ -4,7 +4,6 @@ A TASK is a tuple of what is done, a function that takes the walker, the frame a
 a frame are a stack, the next one last.
 """
 
-from codewalk.assembly import flags_of
 from codewalk.generate import cells_of
 from codewalk.values import Cell, NEW, Nothing, Plan
 from codewalk.writing import FUNCTION_ENDINGS, OTHER_ENDINGS
@@ -15,7 +14,7 @@ class Outline(Plan):
 
     def __init__(self, scope):
         names, only, _, _ = scope.taken
-        Plan.__init__(self, scope.name, scope.path, flags_of(scope), names + only, len(names))
+        Plan.__init__(self, scope.name, scope.path, scope.flags, names + only, len(names))
         self.scope = scope
         # All parameters, with rest and more.
         self.parameters = scope.parameters
