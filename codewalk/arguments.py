@@ -11,7 +11,7 @@ class Draft:
         self.data = []
         # The constants, with the number of each by its key; the numbers of names, and those of locals so far.
         self.constants = []
-        self.keys = {}
+        self.numbers = {}
         self.names = {}
         self.slots = slots
         # What LOAD_CODE loads, by the numbers of scopes.
@@ -31,8 +31,8 @@ def of_constant(draft, value):
         return kept(draft, ("bool", value), value)
     if isinstance(value, tuple):
         return kept(draft, ("tuple", told_constants((value,))), value)
-    keys = draft.keys
-    return keys[value] if value in keys else kept(draft, value, value)
+    numbers = draft.numbers
+    return numbers[value] if value in numbers else kept(draft, value, value)
 
 
 def of_code(draft, number):
@@ -41,11 +41,11 @@ def of_code(draft, number):
 
 def kept(draft, key, constant):
     """The number of the constant that has this key."""
-    keys = draft.keys
-    if key not in keys:
-        keys[key] = len(keys)
+    numbers = draft.numbers
+    if key not in numbers:
+        numbers[key] = len(numbers)
         draft.constants.append(constant)
-    return keys[key]
+    return numbers[key]
 
 
 def of_name(draft, name):

@@ -1,14 +1,16 @@
 """Calls of values, with values by position and a dict of values by name."""
 
 from codewalk.comparing import put_pair
-from codewalk.encoding import WITH_MORE, WITH_REST
-from codewalk.values import Builtin, Class, Dict, Fault, Function, Instance, Method, Nothing
+from codewalk.encoding import GENERATOR, WITH_MORE, WITH_REST
+from codewalk.values import Builtin, Class, Dict, Fault, Function, Generator, Instance, Method, Nothing
 
 
 def call_value(world, called, values, keywords):
     """The result of a call."""
     if isinstance(called, Function):
-        return world.call_function(called, bound(world, called, values, keywords))
+        plan = called.plan
+        frame = world.frame_of(called, bound(world, called, values, keywords), None if plan.flags else {})
+        return Generator(frame, plan.path) if plan.flags & GENERATOR else world.run_frame(frame)
     if isinstance(called, Builtin):
         if keywords:
             world.fail("TypeError")

@@ -43,12 +43,12 @@ class Code:
         self.line = number_of(line, "line")
         self.lines = bytes_of(lines, "lines")
         self.handlers = bytes_of(handlers, "handlers")
-        self.mark = Mark()
+        self.identity = Mark()
 
     def __eq__(self, other):
         return isinstance(other, Code) and are_equal(self, other)
 
-    def parts(self):
+    def parts_alike(self):
         """What two codes have alike that are equal, but for their constants."""
         return (
             self.argcount, self.onlycount, self.stacksize, self.flags, self.code, self.names, self.slots, self.kinds,
@@ -62,9 +62,9 @@ def are_equal(one, other):
     while waiting:
         one, other = waiting.pop()
         # One object is equal to itself.
-        if one.mark == other.mark:
+        if one.identity == other.identity:
             continue
-        if one.parts() != other.parts() or len(one.constants) != len(other.constants):
+        if one.parts_alike() != other.parts_alike() or len(one.constants) != len(other.constants):
             return False
         for mine, its in zip(one.constants, other.constants):
             if isinstance(mine, Code) and isinstance(its, Code):

@@ -11,7 +11,7 @@ from codewalk.direct import function_at_once, run_down, truth_of, value_of, valu
 from codewalk.evaluating import all_of, function_of, test, to
 from codewalk.going import iterator_of, next_of
 from codewalk.outlines import load, push, store
-from codewalk.results import call_on_top, make_function, made_function, store_name
+from codewalk.results import call_on_top, make_function, store_name
 from codewalk.shapes import are_names, is_constant
 from codewalk.stacks import copy_entry, cut_off, get_iterator, pop_top
 

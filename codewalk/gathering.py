@@ -98,7 +98,8 @@ def visit_choice(walk, node):
 
 def visit_call(walk, node):
     visit(walk, node[1])
-    visit_row(walk, node[2])
+    for argument in node[2]:
+        visit(walk, argument)
     for _, value in node[3]:
         visit(walk, value)
 

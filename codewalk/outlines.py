@@ -63,7 +63,10 @@ def load(walker, frame, name):
             if name not in frame.locals:
                 walker.fail("UnboundLocalError")
             return frame.locals[name]
-        return walker.global_of(name) if kind == "implicit" or kind == "global" else content_of(walker, frame, name)
+        if kind == "implicit" or kind == "global":
+            return walker.global_of(name)
+        value = frame.cells[name].content
+        return content_of(walker, frame, name) if isinstance(value, Nothing) else value
     # A class may have a name that is free in it by itself.
     if kind != "global" and name in names:
         return names[name]

@@ -66,9 +66,7 @@ def sources_at_labels(rows, behind):
     leads = leads_of(rows)
     sources = {}
     for at, (labels, ways) in behind.items():
-        for label in labels:
-            if label in leads:
-                ways.extend(leads[label])
+        ways = ways + [source for label in labels for source in leads.get(label, ())]
         if len(ways) == 1 and ways[0] >= 0:
             sources[at] = ways[0]
     if sources:

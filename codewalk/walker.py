@@ -8,7 +8,7 @@ from codewalk.plain import plain
 from codewalk.preparing import prepare
 from codewalk.scopes import settled
 from codewalk.turning import begin
-from codewalk.values import ENDED, Function, NEW, RUNS, Raised
+from codewalk.values import ENDED, Function, NEW, RUNS, Raised, Stopped
 from codewalk.world import World, is_limit
 
 
@@ -43,7 +43,9 @@ class Walker(World):
         frame.line = line
         if line != frame.told:
             frame.told = line
-            self.put(("line", line))
+            self.log.append(("line", line))
+            if len(self.log) == self.most:
+                raise Stopped()
 
     def execute(self, frame, fault):
         begun = frame.state != NEW

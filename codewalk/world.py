@@ -1,11 +1,10 @@
 """What a run of a program has, whoever executes its frames: the log, the globals, the builtins, what is handled."""
 
 from codewalk.calling import call_value, make_class
-from codewalk.encoding import GENERATOR
 from codewalk.names import special
 from codewalk.natives import CLASSES, FUNCTIONS
 from codewalk.plain import plain_row
-from codewalk.values import Builtin, Class, Fault, Function, Generator, Handled, Instance, Method, Raised, Stopped
+from codewalk.values import Builtin, Class, Fault, Function, Handled, Instance, Method, Raised, Stopped
 
 MOST_FRAMES = 16
 MOST_ENTRIES = 100000
@@ -76,12 +75,6 @@ class World:
 
     def call(self, called, values):
         return call_value(self, called, values, {})
-
-    def call_function(self, function, values):
-        """Call a function with what its parameters get."""
-        plan = function.plan
-        frame = self.frame_of(function, values, None if plan.flags else {})
-        return Generator(frame, plan.path) if plan.flags & GENERATOR else self.run_frame(frame)
 
     def run_body(self, function, names):
         """Run the body of a class with the dict of its names."""
