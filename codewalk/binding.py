@@ -46,8 +46,8 @@ class Scope:
     def is_comprehension(self):
         return self.word in COMPREHENSION_WORDS
 
-    def rest(self):
-        """Tell that its code is that of a generator."""
+    def become_generator(self):
+        """Tell that its code rests, if it is that of a function."""
         if self.function:
             self.flags |= GENERATOR
 

@@ -119,7 +119,7 @@ def visit_yield(walk, node):
     if scope.is_comprehension():
         raise NoProgram(walk.line, "inside")
     scope.yields = True
-    scope.rest()
+    scope.become_generator()
     visit_optional(walk, node[1])
 
 
@@ -146,7 +146,7 @@ def visit_comprehension(walk, node):
     scope.parameters[".0"] = True
     scope.bound[".0"] = True
     if word == "generator":
-        scope.rest()
+        scope.become_generator()
     for clause in clauses:
         for turned in names_of(clause[0]):
             scope.turned[turned] = True

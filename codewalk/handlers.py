@@ -37,8 +37,8 @@ def first_rows(rows):
 
 
 def reached_rows(rows, go_through):
-    """The same for rows with labels, those that nothing names left out."""
-    # What is known of labels to which a row that is reached leads: the entries on the stack, and what is open.
+    """The same for rows with labels, those that nothing names left out; one of the two functions below goes through."""
+    # What is known of labels to which a row that is reached leads: the entries on the stack, and what is open there.
     told = {}
     found, unknown = go_through(rows, told)
     while any([label in told and not live for label, live in unknown.items()]):

@@ -27,7 +27,7 @@ def with_lines_on_ways(rows, bare):
 
 
 def lines_along(sources, rows):
-    """For each row with a source the line of the first row along the sources that has none."""
+    """For each row with a source the line of the row with which its sources begin."""
     lines = {}
     for at in sources:
         path = {}

@@ -18,9 +18,8 @@ def reached(rows, named, exceptions):
 
     The labels to which rows lead that are reached are put into the dict.
     """
-    missed = True
-    while missed:
-        missed = False
+    again = True
+    while again:
         found = []
         live = True
         unknown = []
@@ -39,7 +38,7 @@ def reached(rows, named, exceptions):
                 if word in LEAVING:
                     live = False
         # A row further on may lead to a label that was passed by.
-        missed = any([label in named for label in unknown])
+        again = any([label in named for label in unknown])
     return found
 
 

@@ -204,6 +204,23 @@ class EqualityTests(unittest.TestCase):
         self.unlike(code_with(constants=[one, true]), code_with(constants=[true, one]))
         self.unlike(codes(99), codes(100))
 
+    def test_codes_that_are_there_many_times(self):
+        """They are gone into once where they are one object."""
+        found = code_with()
+        for _ in range(60):
+            found = code_with(constants=[found, 1, found])
+        self.assertEqual(found, found)
+        self.assertEqual(code_with(constants=[found, found]), code_with(constants=[found, found]))
+        self.unlike(code_with(constants=[found, found]), code_with(constants=[found, True]))
+        self.unlike(code_with(constants=[found, 1]), code_with(constants=[found, True]))
+
+    def test_codes_as_deep_as_may_be(self):
+        self.assertEqual(codes(100), codes(100))
+        inner = code_with(constants=["other"])
+        for _ in range(99):
+            inner = code_with(constants=[inner, 1])
+        self.unlike(codes(100), inner)
+
     def test_objects_of_other_classes(self):
         for thing in [*junk(), None, 0, "code", (), tuple(VALUES.values()), VALUES]:
             self.unlike(code_with(), thing)

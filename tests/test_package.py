@@ -269,16 +269,19 @@ class InsideTests(unittest.TestCase):
             self.assertEqual(repr(told(self, f"{setup}with Once(), Once():\n{indented(source)}")), repr(told(self, source)))
 
 
+def calls(action, *given):
+    """How many functions are called, those of Python itself counted."""
+    found = []
+    sys.setprofile(lambda frame, event, _: found.append(event) if event in ("call", "c_call") else None)
+    try:
+        action(*given)
+    finally:
+        sys.setprofile(None)
+    return len(found)
+
+
 class CostTests(unittest.TestCase):
     def test_a_step_costs_the_same_however_long_the_code_is(self):
-        def calls(action, tree):
-            found = []
-            sys.setprofile(lambda frame, event, _: found.append(event) if event in ("call", "c_call") else None)
-            try:
-                action(tree)
-            finally:
-                sys.setprofile(None)
-            return len(found)
         loop = "for i in range(200):\n    x = i\n"
         for action in (lambda tree: run(compiled(tree), 5000), lambda tree: walk(tree, 5000)):
             plain = calls(action, tree_of(loop))
@@ -286,6 +289,42 @@ class CostTests(unittest.TestCase):
             long = calls(action, tree_of("x = 0\nif x:\n" + behind.split("\n", 1)[1] + loop))
             once = calls(action, tree_of("x = 0\nif x:\n" + behind.split("\n", 1)[1]))
             self.assertLess(abs(long - once - plain), 0.2 * plain)
+
+    def test_functions_in_one_another(self):
+        """Thirteen functions, each with a lambda in it and the next one."""
+        source = ""
+        for depth in range(13):
+            lines = [f"x = {depth}", "tell(x + 1, x)", "tell((lambda: x)())", "def f():" if depth < 12 else "pass"]
+            source += "".join([f"{'    ' * depth}{line}\n" for line in lines])
+        for depth in range(11, -1, -1):
+            source += f"{'    ' * depth}f()\n"
+        tree = tree_of(source)
+        code = compiled(tree)
+        self.assertEqual(len(run_tree(self, tree)[0]), 155)
+        for action, most in (
+            (lambda: compiled(tree), 14000), (lambda: compiled(tree, False), 12500), (lambda: run(code, 5000), 4200), (lambda: walk(tree, 5000), 6500),
+        ):
+            self.assertLess(calls(action), most)
+
+    def test_a_flat_program(self):
+        tree = tree_of("x = 3\n" + "".join([f"if x < {at}:\n    y = x + {at}\nelse:\n    tell(x)\n" for at in range(16)]))
+        code = compiled(tree)
+        for action, most in (
+            (lambda: compiled(tree), 7800), (lambda: compiled(tree, False), 7000), (lambda: run(code, 5000), 1600), (lambda: walk(tree, 5000), 3800),
+        ):
+            self.assertLess(calls(action), most)
+
+    def test_long_rows(self):
+        rows = []
+        for label in range(5):
+            rows += [("LOAD_NAME", "x", 1, None), ("TO_BOOL", None, 1, None), ("POP_JUMP_IF_FALSE", label, 1, None)]
+            rows += [("NOP", None, 1, None)] * 6550 + [("LABEL", label, None, None)]
+        rows.append(("RETURN_CONST", None, 1, None))
+        head = ("program", "<module>", "<module>", 1, ((), (), None, None), (), (), 0)
+        code = assembled(rows, head)
+        # Some calls for each row, not some tens.
+        self.assertLess(calls(assembled, rows, head), 3 * len(rows))
+        self.assertLess(calls(instructions, code), 6 * len(rows))
 
 
 if __name__ == "__main__":
