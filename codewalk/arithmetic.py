@@ -6,6 +6,9 @@ from codewalk.values import Dict, List
 
 def operate(world, op, left, right):
     """The result of a binary operation; an operator with = at its end changes a list or a dict in its place."""
+    if isinstance(left, int) and isinstance(right, int):
+        action = ACTIONS[op]
+        return action(world, left, right)
     if op[-1] == "=":
         if isinstance(left, List) and op in LIST_CHANGES:
             change = LIST_CHANGES[op]
@@ -13,10 +16,7 @@ def operate(world, op, left, right):
         if isinstance(left, Dict) and op == "|=":
             return merged(world, left, right)
         op = op[:-1]
-    if not isinstance(left, int) or not isinstance(right, int):
-        return operate_on_rows(world, op, left, right)
-    action = ACTIONS[op]
-    return action(world, left, right)
+    return operate_on_rows(world, op, left, right)
 
 
 def operate_on_rows(world, op, left, right):
@@ -146,7 +146,8 @@ def unlike(world, left, right):
 
 ACTIONS = {
     "+": plus, "-": minus, "*": times, "//": quotient, "mod": remainder, "**": power, "<<": shifted_up,
-    ">>": shifted_down, "&": both, "|": either, "^": unlike,
+    ">>": shifted_down, "&": both, "|": either, "^": unlike, "+=": plus, "-=": minus, "*=": times, "//=": quotient,
+    "mod=": remainder, "**=": power, "<<=": shifted_up, ">>=": shifted_down, "&=": both, "|=": either, "^=": unlike,
 }
 
 

@@ -27,6 +27,10 @@ def truth(world, value):
 
 def equal(one, other):
     """Whether two values are equal; they may be nested deeper than calls."""
+    if one == other:
+        return True
+    if isinstance(one, int) or isinstance(one, str):
+        return False
     waiting = [(one, other)]
     while waiting:
         one, other = waiting.pop()
@@ -106,7 +110,11 @@ def comparison(world, op, one, other):
     """The result of a comparison by equality or order."""
     if op == "==":
         return equal(one, other)
-    return not equal(one, other) if op == "!=" else ordered(world, op, one, other)
+    if op == "!=":
+        return not equal(one, other)
+    if isinstance(one, int) and isinstance(other, int):
+        return compared(op, one, other)
+    return ordered(world, op, one, other)
 
 
 def key_of(world, value):

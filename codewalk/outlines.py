@@ -6,7 +6,6 @@ a frame are a stack, the next one last.
 
 from codewalk.generate import cells_of
 from codewalk.values import Cell, NEW, Nothing, Plan
-from codewalk.writing import FUNCTION_ENDINGS, OTHER_ENDINGS
 
 
 class Outline(Plan):
@@ -81,34 +80,30 @@ def content_of(walker, frame, name):
     return value
 
 
-def ending_of(frame, name):
-    """How a name is stored and deleted."""
-    kind = frame.kinds[name]
-    return FUNCTION_ENDINGS[kind] if frame.names is None else OTHER_ENDINGS[kind]
-
-
 def store(walker, frame, name, value):
-    ending = ending_of(frame, name)
-    if ending == "FAST":
-        frame.locals[name] = value
-    elif ending == "DEREF":
+    # A name that is stored or deleted is never implicit.
+    kind = frame.kinds[name]
+    if kind == "local":
+        names = frame.locals if frame.names is None else frame.names
+        names[name] = value
+    elif kind == "global":
+        walker.shared[name] = value
+    else:
         cell = frame.cells[name]
         cell.content = value
-    elif ending == "NAME":
-        frame.names[name] = value
-    else:
-        walker.shared[name] = value
 
 
 def delete(walker, frame, name):
-    ending = ending_of(frame, name)
-    if ending == "FAST":
-        if name not in frame.locals:
-            walker.fail("UnboundLocalError")
-        del frame.locals[name]
-    elif ending == "DEREF":
+    kind = frame.kinds[name]
+    if kind == "global":
+        walker.delete_from(walker.shared, name)
+    elif kind != "local":
         content_of(walker, frame, name)
         cell = frame.cells[name]
         cell.content = Nothing()
+    elif frame.names is not None:
+        walker.delete_from(frame.names, name)
     else:
-        walker.delete_from(frame.names if ending == "NAME" else walker.shared, name)
+        if name not in frame.locals:
+            walker.fail("UnboundLocalError")
+        del frame.locals[name]
